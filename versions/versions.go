@@ -3,7 +3,10 @@ package versions
 
 import (
 	"versions/api"
+	"versions/catalog"
 	"versions/chunk"
+	"versions/journal"
+	"versions/spare"
 )
 
 // Cuts tells the lengths of a content's chunks (P3).
@@ -15,50 +18,182 @@ func Cuts(data []byte) []int {
 	return lengths
 }
 
-// Archive has versions of files.
-type Archive struct{}
+// spares is how many buffers are in use at one time: one for a change, and one for a chunk that is held against it.
+const spares = 2
+
+// Archive has versions of files. One that is closed has nothing.
+type Archive struct {
+	log     *journal.Journal
+	catalog *catalog.Catalog
+	spare   spare.Buffers
+	quota   int
+}
 
 // Open opens an archive (P4).
-func Open(d *api.Device, quota int) (*Archive, error) { return nil, nil }
+func Open(d *api.Device, quota int) (*Archive, error) {
+	if d == nil || d.Sectors() < api.MinSectors {
+		return nil, api.ErrDevice
+	}
+	c := catalog.New()
+	log, err := journal.Open(d, c.Apply)
+	if err != nil {
+		return nil, err
+	}
+	return &Archive{log: log, catalog: c, spare: spare.New(spares), quota: max(quota, 0)}, nil
+}
+
+// usable answers ErrClosed of an archive that is closed.
+func (a *Archive) usable() error {
+	if a.log == nil {
+		return api.ErrClosed
+	}
+	return nil
+}
+
+// usableAt is what the calls that are given a path ask first.
+func (a *Archive) usableAt(path string) error {
+	if err := a.usable(); err != nil {
+		return err
+	}
+	if !catalog.IsPath(path) {
+		return api.ErrPath
+	}
+	return nil
+}
 
 // Put adds a version (P5).
-func (a *Archive) Put(path string, content []byte) (int, error) { return 0, nil }
+func (a *Archive) Put(path string, content []byte) (int, error) {
+	if err := a.usableAt(path); err != nil {
+		return 0, err
+	}
+	if len(content) > api.MaxContent {
+		return 0, api.ErrSize
+	}
+	if len(content) > a.quota-a.catalog.Bytes() {
+		return 0, api.ErrQuota
+	}
+	number := a.catalog.Latest(path) + 1
+	if err := a.add(path, number, content); err != nil {
+		return 0, err
+	}
+	return number, nil
+}
+
+// add writes a version to the device, and takes it into the catalog.
+func (a *Archive) add(path string, number int, content []byte) error {
+	if number > catalog.MaxNumber {
+		return api.ErrFull
+	}
+	change, err := a.draft(a.spare.Take(), path, number, content)
+	defer a.spare.Give(change)
+	if err != nil {
+		return err
+	}
+	place, err := a.log.Append(change)
+	if err != nil {
+		return err
+	}
+	return a.catalog.Apply(place, change)
+}
 
 // Get tells a version's content (P6).
-func (a *Archive) Get(path string, version int) ([]byte, error) { return nil, nil }
+func (a *Archive) Get(path string, version int) ([]byte, error) {
+	v, err := a.find(path, version)
+	if err != nil {
+		return nil, err
+	}
+	return a.read(v, 0, v.Size)
+}
 
 // ReadAt tells some of it (P6).
-func (a *Archive) ReadAt(path string, version, at, n int) ([]byte, error) { return nil, nil }
+func (a *Archive) ReadAt(path string, version, at, n int) ([]byte, error) {
+	v, err := a.find(path, version)
+	if err != nil {
+		return nil, err
+	}
+	if at < 0 || n < 0 || at > v.Size {
+		return nil, api.ErrRange
+	}
+	return a.read(v, at, min(n, v.Size-at))
+}
+
+// find finds a version; 0 stands for the latest one.
+func (a *Archive) find(path string, version int) (catalog.Version, error) {
+	if err := a.usableAt(path); err != nil {
+		return catalog.Version{}, err
+	}
+	return a.catalog.Find(path, version)
+}
+
+// read reads n bytes of a version, which are there, from the chunks that have them.
+func (a *Archive) read(v catalog.Version, at, n int) ([]byte, error) {
+	content := make([]byte, n)
+	rest := content
+	for piece := range a.catalog.Pieces(v) {
+		if at >= piece.Size {
+			at -= piece.Size
+			continue
+		}
+		part := rest[:min(piece.Size-at, len(rest))]
+		if err := a.log.Read(piece.Place+at, part); err != nil {
+			return nil, err
+		}
+		rest, at = rest[len(part):], 0
+	}
+	return content, nil
+}
 
 // Versions tells the numbers of a path's versions (P7).
-func (a *Archive) Versions(path string) ([]int, error) { return nil, nil }
+func (a *Archive) Versions(path string) ([]int, error) {
+	if err := a.usableAt(path); err != nil {
+		return nil, err
+	}
+	return a.catalog.Numbers(path)
+}
 
 // List tells the paths (P7).
-func (a *Archive) List(prefix string) ([]api.Entry, error) { return nil, nil }
+func (a *Archive) List(prefix string) ([]api.Entry, error) {
+	if err := a.usable(); err != nil {
+		return nil, err
+	}
+	return a.catalog.List(prefix), nil
+}
 
 // Delete removes a version (P8).
-func (a *Archive) Delete(path string, version int) error { return nil }
+func (a *Archive) Delete(path string, version int) error { return a.usable() }
 
 // Prune keeps the latest versions of a path (P8).
-func (a *Archive) Prune(path string, keep int) (int, error) { return 0, nil }
+func (a *Archive) Prune(path string, keep int) (int, error) { return 0, a.usable() }
 
 // Tag holds a version by a name (P9).
-func (a *Archive) Tag(name, path string, version int) error { return nil }
+func (a *Archive) Tag(name, path string, version int) error { return a.usable() }
 
 // Untag lets it go (P9).
-func (a *Archive) Untag(name string) error { return nil }
+func (a *Archive) Untag(name string) error { return a.usable() }
 
 // Tags tells all tags (P9).
-func (a *Archive) Tags() ([]api.Pin, error) { return nil, nil }
+func (a *Archive) Tags() ([]api.Pin, error) { return nil, a.usable() }
 
-// Collect frees what no version has (P10).
-func (a *Archive) Collect() error { return nil }
+// Collect frees what no version has (P10): as long as none is deleted, that is nothing.
+func (a *Archive) Collect() error { return a.Sync() }
 
 // Stored tells what the device has (P10).
-func (a *Archive) Stored() (api.Stored, error) { return api.Stored{}, nil }
+func (a *Archive) Stored() (api.Stored, error) { return api.Stored{}, a.usable() }
 
 // Sync makes all that was done safe (P11).
-func (a *Archive) Sync() error { return nil }
+func (a *Archive) Sync() error {
+	if err := a.usable(); err != nil {
+		return err
+	}
+	return a.log.Sync()
+}
 
 // Close ends it (P11).
-func (a *Archive) Close() error { return nil }
+func (a *Archive) Close() error {
+	if err := a.usable(); err != nil {
+		return err
+	}
+	err := a.log.Sync()
+	*a = Archive{}
+	return err
+}
