@@ -109,6 +109,19 @@ func TestApplyOfWhatCannotBe(t *testing.T) {
 		"a chunk that comes later":    append(version("p", 1, 0), long...),
 		"a content that is too long":  append(long, version("p", 1, ids...)...),
 		"a kind of record that isn't": {99, 0, 0},
+		"no version to delete":        record.AppendDelete(nil, "p", 1),
+		"another version to delete":   record.AppendDelete(bytes.Clone(first), "p", 2),
+		"the version 0 to delete":     record.AppendDelete(bytes.Clone(first), "p", 0),
+		"a held version to delete":    record.AppendDelete(record.AppendTag(bytes.Clone(first), "t", "p", 3), "p", 3),
+		"no version to prune":         record.AppendPrune(nil, "p", 0),
+		"no old version to prune":     record.AppendPrune(bytes.Clone(first), "p", 1),
+		"no version to tag":           record.AppendTag(nil, "t", "p", 1),
+		"another version to tag":      record.AppendTag(bytes.Clone(first), "t", "p", 2),
+		"the version 0 to tag":        record.AppendTag(bytes.Clone(first), "t", "p", 0),
+		"a name that is none":         record.AppendTag(bytes.Clone(first), "T", "p", 3),
+		"a tag twice":                 record.AppendTag(record.AppendTag(bytes.Clone(first), "t", "p", 3), "t", "p", 3),
+		"no tag to let go":            record.AppendUntag(bytes.Clone(first), "t"),
+		"no name to let go":           record.AppendUntag(bytes.Clone(first), ""),
 	} {
 		if err := New().Apply(0, change); !errors.Is(err, api.ErrCorrupt) {
 			t.Errorf("%s: %v", what, err)
@@ -118,7 +131,13 @@ func TestApplyOfWhatCannotBe(t *testing.T) {
 
 func FuzzApply(f *testing.F) {
 	change := record.AppendChunk(nil, []byte("abc"))
-	f.Add(record.AppendVersion(change, "p", 1, []uint32{0, 0}))
+	change = record.AppendVersion(change, "p", 1, []uint32{0, 0})
+	f.Add(change)
+	change = record.AppendVersion(change, "p", 2, nil)
+	change = record.AppendTag(change, "t", "p", 1)
+	change = record.AppendPrune(change, "p", 0)
+	f.Add(change)
+	f.Add(record.AppendDelete(record.AppendUntag(change, "t"), "p", 1))
 	f.Fuzz(func(t *testing.T, change []byte) {
 		c := New()
 		if err := c.Apply(0, change); err != nil {
@@ -135,5 +154,6 @@ func FuzzApply(f *testing.F) {
 				}
 			}
 		}
+		expectSameBehindImage(t, c, change)
 	})
 }

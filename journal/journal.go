@@ -1,6 +1,6 @@
 // Package journal keeps changes on a device, one behind the other: behind a crash the first so many of them are there, and none by half.
 //
-// The first two sectors are slots, for marks; behind them come the changes, each of which begins at a sector of its own. Each sector has a sum, and a stamp: the turn of the mark that was the newest one when it was written. A journal writes a mark, and makes it safe, ahead of its first change: so no two journals write with the same stamp, and what a crash has left behind the last whole change is told from what is written there later.
+// The first two sectors are slots, for marks; the others are parted into halves, one of which has the changes, each of which begins at a sector of its own. The newest mark tells which half it is: so the changes can be written anew to the other one, and none is lost while that goes on. Each sector has a sum, and a stamp: the turn of the mark that was the newest one when it was written. A journal writes a mark, and makes it safe, ahead of its first change: so no two journals write with the same stamp, and what a crash has left behind the last whole change is told from what is written there later.
 package journal
 
 import (
@@ -14,6 +14,7 @@ import (
 type Journal struct {
 	device *api.Device
 	mark   mark  // the newest one
+	fresh  int   // the first sector that was written behind that mark, or end
 	end    int   // the sector behind the last change
 	begun  bool  // whether the newest mark is this journal's own
 	fault  error // how the device failed
@@ -39,6 +40,7 @@ func Open(d *api.Device, each func(place int, change []byte) error) (*Journal, e
 			return nil, located(err, c.place/room)
 		}
 	}
+	j.fresh = j.end
 	return j, nil
 }
 
@@ -51,6 +53,15 @@ func located(err error, at int) error {
 	return err
 }
 
+// size is how many sectors a half has.
+func (j *Journal) size() int { return (j.device.Sectors() - slots) / halves }
+
+// begin is the first sector of a half.
+func (j *Journal) begin(half int) int { return slots + half*j.size() }
+
+// limit is the sector behind the half that has the changes.
+func (j *Journal) limit() int { return j.begin(j.mark.half) + j.size() }
+
 // findMark reads the slots. A crash leaves each of them as it was, or as it was written: so one that is no mark is corrupt.
 func (j *Journal) findMark() error {
 	var marks [slots]mark
@@ -59,8 +70,8 @@ func (j *Journal) findMark() error {
 		if err != nil {
 			return err
 		}
-		m, ok := markOf(at, s, j.device.Sectors())
-		if !ok {
+		m, ok := markOf(at, s)
+		if !ok || !j.isWithin(m) {
 			return located(api.ErrCorrupt, at)
 		}
 		marks[at] = m
@@ -73,12 +84,18 @@ func (j *Journal) findMark() error {
 	return nil
 }
 
+// isWithin tells whether what a mark tells is on the device.
+func (j *Journal) isWithin(m mark) bool {
+	begin := j.begin(m.half)
+	return m.half < halves && m.safe >= begin && m.safe <= begin+j.size()
+}
+
 // changes goes through all whole changes, and finds the end. At an error it ends.
 func (j *Journal) changes() iter.Seq2[change, error] {
 	return func(yield func(change, error) bool) {
 		var buffer []byte
 		stamp := uint64(1)
-		for j.end = slots; ; {
+		for j.end = j.begin(j.mark.half); ; {
 			data, last, err := j.next(buffer[:0], stamp)
 			if err != nil {
 				yield(change{}, err)
@@ -90,14 +107,14 @@ func (j *Journal) changes() iter.Seq2[change, error] {
 			if !yield(change{j.end * room, data}, nil) {
 				return
 			}
-			buffer, stamp, j.end = data, last, j.end+len(data)/room
+			buffer, stamp, j.end = data, last, j.end+sectorsOf(data)
 		}
 	}
 }
 
-// next reads the change at the end, into a buffer, and tells its stamp; there is none, if it is not whole. The stamps of changes do not fall, and those of one change are the same: else a sector is one that an earlier crash left.
+// next reads the change at the end, into a buffer, and tells its stamp; there is none, if it is not whole. The stamps of changes do not fall, and those of one change are the same: else a sector is one that an earlier crash left, or that was there before the half was taken.
 func (j *Journal) next(buffer []byte, least uint64) ([]byte, uint64, error) {
-	for at := j.end; at < j.device.Sectors(); at++ {
+	for at := j.end; at < j.limit(); at++ {
 		s, err := j.read(at)
 		if err != nil {
 			return nil, 0, err
@@ -113,7 +130,7 @@ func (j *Journal) next(buffer []byte, least uint64) ([]byte, uint64, error) {
 			return buffer, least, nil
 		}
 	}
-	return j.broken(j.device.Sectors() - 1)
+	return j.broken(j.limit() - 1)
 }
 
 // broken tells what a change is that breaks off at a sector: where it was safe, the device does not have what was written; else a crash came.
@@ -122,32 +139,6 @@ func (j *Journal) broken(at int) ([]byte, uint64, error) {
 		return nil, 0, located(api.ErrCorrupt, at)
 	}
 	return nil, 0, nil
-}
-
-// Append writes a change behind all others, and tells the place where it begins.
-func (j *Journal) Append(data []byte) (int, error) {
-	if j.fault != nil {
-		return 0, j.fault
-	}
-	n := (len(data) + room - 1) / room
-	if n > j.device.Sectors()-j.end {
-		return 0, api.ErrFull
-	}
-	if !j.begun {
-		if err := j.settle(); err != nil {
-			return 0, err
-		}
-	}
-	for at := j.end; at < j.end+n; at++ {
-		l := leaf{stamp: j.mark.turn, more: at < j.end+n-1}
-		data = data[copy(l.data[:], data):]
-		if err := j.write(at, l.sector(at)); err != nil {
-			return 0, err
-		}
-	}
-	place := j.end * room
-	j.end += n
-	return place, nil
 }
 
 // Read fills a piece of memory with the bytes from a place on.
@@ -168,52 +159,8 @@ func (j *Journal) Read(place int, into []byte) error {
 	return nil
 }
 
-// Sync makes all changes safe.
-func (j *Journal) Sync() error {
-	if j.fault != nil {
-		return j.fault
-	}
-	if j.mark.safe == j.end {
-		return j.flush()
-	}
-	return j.settle()
-}
-
-// settle makes all changes safe, and writes a mark that says so. The mark comes behind them, for it must not be there without them.
-func (j *Journal) settle() error {
-	if err := j.verify(); err != nil {
-		return err
-	}
-	if err := j.flush(); err != nil {
-		return err
-	}
-	m := mark{turn: j.mark.turn + 1, safe: j.end}
-	if err := j.write(m.slot(), m.sector()); err != nil {
-		return err
-	}
-	if err := j.flush(); err != nil {
-		return err
-	}
-	j.mark, j.begun = m, true
-	return nil
-}
-
-// verify reads again what this journal wrote since its newest mark: the next one must not say of what a crash took away meanwhile that it is safe.
-func (j *Journal) verify() error {
-	if !j.begun {
-		return nil
-	}
-	for at := j.mark.safe; at < j.end; at++ {
-		s, err := j.read(at)
-		if err != nil {
-			return err
-		}
-		if l, ok := leafOf(at, s); !ok || l.stamp != j.mark.turn {
-			return j.note(located(api.ErrCorrupt, at))
-		}
-	}
-	return nil
-}
+// Fault tells how the device failed: nothing can be changed behind that.
+func (j *Journal) Fault() error { return j.fault }
 
 func (j *Journal) read(at int) (api.Sector, error) {
 	s, err := j.device.Read(at)

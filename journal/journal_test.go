@@ -36,7 +36,7 @@ func opened(t *testing.T, d *api.Device) *Journal {
 func appended(t *testing.T, j *Journal, changes ...[]byte) {
 	t.Helper()
 	for _, c := range changes {
-		if _, err := j.Append(c); err != nil {
+		if _, err := j.Append(c, 0); err != nil {
 			t.Fatal(err)
 		}
 	}
@@ -55,7 +55,7 @@ func TestAppendAndOpen(t *testing.T) {
 	lengths := []int{1, room - 1, room, room + 1, 2 * room, 2*room + 1, 5*room - 3}
 	var places []int
 	for i, n := range lengths {
-		place, err := j.Append(filled(byte('a'+i), n))
+		place, err := j.Append(filled(byte('a'+i), n), 0)
 		if err != nil {
 			t.Fatal(err)
 		}
@@ -97,25 +97,49 @@ func TestOpenWritesNothing(t *testing.T) {
 	}
 }
 
+// A half of 16 sectors less the slots is 7.
 func TestFull(t *testing.T) {
-	d := api.NewDevice(16)
-	j := opened(t, d)
-	appended(t, j, filled('a', 10*room))
-	for _, n := range []int{4*room + 1, 100 * room} {
-		if place, err := j.Append(filled('b', n)); place != 0 || err != api.ErrFull {
-			t.Errorf("%d bytes too many: %d, %v", n, place, err)
+	for _, sectors := range []int{16, 17} {
+		d := api.NewDevice(sectors)
+		j := opened(t, d)
+		appended(t, j, filled('a', 4*room))
+		for _, n := range []int{3*room + 1, 100 * room} {
+			if place, err := j.Append(filled('b', n), 0); place != 0 || err != api.ErrFull {
+				t.Errorf("%d bytes too many: %d, %v", n, place, err)
+			}
+		}
+		appended(t, j, filled('c', 2*room+1))
+		if _, err := j.Append([]byte{'d'}, 0); err != api.ErrFull {
+			t.Errorf("no sector left: %v", err)
+		}
+		if err := j.Sync(); err != nil {
+			t.Errorf("a full device cannot be synced: %v", err)
+		}
+		expectNames(t, d, "ac")
+		j = opened(t, d)
+		if _, err := j.Append([]byte{'d'}, 0); err != api.ErrFull {
+			t.Errorf("no sector left, behind Open: %v", err)
+		}
+		if place, err := j.Replace(filled('e', 7*room+1)); place != 0 || err != api.ErrFull {
+			t.Errorf("Replace by what is too long: %d, %v", place, err)
+		}
+		expectNames(t, d, "ac")
+	}
+}
+
+// Sectors that must be left free.
+func TestAppendLeavesSectorsFree(t *testing.T) {
+	j := opened(t, api.NewDevice(16))
+	appended(t, j, filled('a', 4*room))
+	for leave, n := range []int{3, 2, 1, 0} {
+		if place, err := j.Append(filled('b', n*room+1), leave); place != 0 || err != api.ErrFull {
+			t.Errorf("%d sectors, and %d left free: %d, %v", n+1, leave, place, err)
 		}
 	}
-	appended(t, j, filled('c', 3*room+1))
-	if _, err := j.Append([]byte{'d'}); err != api.ErrFull {
-		t.Errorf("no sector left: %v", err)
-	}
-	if err := j.Sync(); err != nil {
-		t.Errorf("a full device cannot be synced: %v", err)
-	}
-	expectNames(t, d, "ac")
-	if _, err := opened(t, d).Append([]byte{'d'}); err != api.ErrFull {
-		t.Errorf("no sector left, behind Open: %v", err)
+	for _, leave := range []int{2, 1, 0} {
+		if _, err := j.Append(filled('b', room), leave); err != nil {
+			t.Errorf("%d left free: %v", leave, err)
+		}
 	}
 }
 
@@ -138,7 +162,7 @@ func TestOpenLocatesErrors(t *testing.T) {
 // play appends changes of some lengths, each named by the next letter, and syncs behind every other one. It tells how many were appended, and how many of them are safe.
 func play(j *Journal, from byte, lengths []int) (done, safe int, err error) {
 	for i, n := range lengths {
-		if _, err := j.Append(filled(from+byte(i), n)); err != nil {
+		if _, err := j.Append(filled(from+byte(i), n), 0); err != nil {
 			return done, safe, err
 		}
 		done++
@@ -252,7 +276,7 @@ func TestPowerStaysCut(t *testing.T) {
 	}
 	d.Crash(1<<64 - 1)
 	for range 2 {
-		if place, err := j.Append(filled('b', 9)); place != 0 || !errors.Is(err, api.ErrPower) {
+		if place, err := j.Append(filled('b', 9), 0); place != 0 || !errors.Is(err, api.ErrPower) {
 			t.Errorf("Append: %d, %v", place, err)
 		}
 		if err := j.Sync(); !errors.Is(err, api.ErrPower) {
@@ -328,22 +352,33 @@ func TestFlips(t *testing.T) {
 	}
 	appended(t, j, filled('c', 2*room))
 	const safe = slots + 4
-	for bit := range uint(16 * api.SectorSize * 8) {
+	expectFlips(t, d, func(at int) string {
+		switch {
+		case at < safe:
+			return corrupt
+		case at < j.end:
+			return "ab"
+		}
+		return "abc"
+	})
+}
+
+// corrupt stands for the error, where there would be names.
+const corrupt = "corrupt"
+
+// expectFlips turns each bit about once: what there is then hangs on the sector; where that is an error, it has the sector's number.
+func expectFlips(t *testing.T, d *api.Device, want func(at int) string) {
+	t.Helper()
+	for bit := range uint(d.Sectors() * api.SectorSize * 8) {
 		at := int(bit / 8 / api.SectorSize)
 		e := d.Copy()
 		e.Flip(bit)
 		got, _, err := names(e)
 		var where *api.SectorError
-		switch {
-		case at < safe:
-			if !errors.As(err, &where) || where.Sector != at || where.Err != api.ErrCorrupt {
-				t.Fatalf("bit %d of sector %d: %q, %v", bit, at, got, err)
-			}
-		case at < j.end:
-			if err != nil || got != "ab" {
-				t.Fatalf("bit %d of sector %d: %q, %v", bit, at, got, err)
-			}
-		case err != nil || got != "abc":
+		if errors.As(err, &where) && where.Sector == at && where.Err == api.ErrCorrupt {
+			got, err = corrupt, nil
+		}
+		if err != nil || got != want(at) {
 			t.Fatalf("bit %d of sector %d: %q, %v", bit, at, got, err)
 		}
 	}
@@ -372,9 +407,12 @@ func TestMarksThatCannotBe(t *testing.T) {
 		"one that is missing":    {{turn: 2, safe: slots}},
 		"two that do not follow": {{turn: 5, safe: slots}, {turn: 8, safe: slots}},
 		"safe within the slots":  {{turn: 1, safe: 1}},
-		"safe beyond the device": {{turn: 1, safe: 17}},
+		"safe beyond the half":   {{turn: 1, safe: slots + 8}},
+		"safe below the half":    {{turn: 1, half: 1, safe: slots + 6}},
+		"safe beyond the device": {{turn: 1, half: 1, safe: 17}},
 		"safe below 0":           {{turn: 1, safe: -1}},
-		"safe, and not there":    {{turn: 1, safe: 16}},
+		"safe, and not there":    {{turn: 1, safe: slots + 1}},
+		"a half that is none":    {{turn: 1, half: 2, safe: slots + 14}},
 	} {
 		d := api.NewDevice(16)
 		for _, m := range marks {
@@ -398,17 +436,20 @@ func TestMarksThatCannotBe(t *testing.T) {
 
 // P1: changes that no journal wrote: one that goes on beyond the device, and one with a stamp that is yet to come.
 func TestChangesThatCannotBe(t *testing.T) {
+	const last = slots + 6 // of the first half
 	d := api.NewDevice(16)
-	appended(t, opened(t, d), filled('a', 13*room))
+	appended(t, opened(t, d), filled('a', 6*room))
 	endless, early := leaf{stamp: 1, more: true}, leaf{stamp: 2}
 	for _, l := range []leaf{endless, early} {
-		d.Write(15, l.sector(15))
+		d.Write(last, l.sector(last))
+		d.Write(last+1, l.sector(last+1))
 		expectNames(t, d, "a")
 	}
 	right := leaf{stamp: 1, data: [room]byte{'b'}}
-	d.Write(15, right.sector(15))
+	d.Write(last, right.sector(last))
+	d.Write(last+1, right.sector(last+1))
 	expectNames(t, d, "ab")
-	d.Write(15, right.sector(14))
+	d.Write(last, right.sector(last-1))
 	expectNames(t, d, "a")
 }
 
@@ -418,7 +459,7 @@ func TestAppendLeavesDataAlone(t *testing.T) {
 	j := opened(t, d)
 	data := filled('a', 3*room)
 	before := slices.Clone(data)
-	place, err := j.Append(data[:room+1])
+	place, err := j.Append(data[:room+1], 0)
 	if err != nil || !slices.Equal(data, before) {
 		t.Fatalf("the data was written into, or %v", err)
 	}

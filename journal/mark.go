@@ -8,17 +8,22 @@ import (
 // slots are the first sectors. Marks are written to them by turns: so while one is written, the one ahead of it is there.
 const slots = 2
 
+// halves are what the sectors behind the slots are parted into. The changes are in one of them; the other one is there to write them anew.
+const halves = 2
+
 // What a slot has behind its sum.
 const (
 	turnAt  = pack.SumSize
-	safeAt  = turnAt + 8
+	halfAt  = turnAt + 8
+	safeAt  = halfAt + 1
 	safeEnd = safeAt + 8
 )
 
-// mark tells what is safe.
+// mark tells where the changes are, and which of them are safe.
 type mark struct {
 	turn uint64 // 0: none was written
-	safe int    // the sectors below it are safe
+	half int    // the half that has the changes
+	safe int    // the sectors of that half below this one are safe
 }
 
 // slot is where the mark stands.
@@ -27,22 +32,23 @@ func (m mark) slot() int { return int(m.turn % slots) }
 // sector is the mark as it stands on the device.
 func (m mark) sector() api.Sector {
 	var s api.Sector
-	pack.Put(s[turnAt:safeAt], m.turn)
+	pack.Put(s[turnAt:halfAt], m.turn)
+	pack.Put(s[halfAt:safeAt], uint64(m.half))
 	pack.Put(s[safeAt:safeEnd], uint64(m.safe))
 	return sealed(m.slot(), s)
 }
 
-// markOf is the mark that a slot has, on a device of so many sectors. It tells whether it is one.
-func markOf(slot int, s api.Sector, sectors int) (mark, bool) {
+// markOf is the mark that a slot has. It tells whether it is one.
+func markOf(slot int, s api.Sector) (mark, bool) {
 	if s == (api.Sector{}) {
-		return mark{turn: 0, safe: slots}, true
+		return mark{safe: slots}, true
 	}
-	safe := pack.Number(s[safeAt:safeEnd])
-	if !intact(slot, s) || safe < slots || safe > uint64(sectors) {
-		return mark{}, false
+	m := mark{
+		turn: pack.Number(s[turnAt:halfAt]),
+		half: int(pack.Number(s[halfAt:safeAt])),
+		safe: int(pack.Number(s[safeAt:safeEnd])),
 	}
-	m := mark{turn: pack.Number(s[turnAt:safeAt]), safe: int(safe)}
-	return m, m.turn > 0 && m.slot() == slot
+	return m, intact(slot, s) && m.turn > 0 && m.slot() == slot
 }
 
 // newest is the mark that was written last. It tells whether the two can have been written one behind the other.

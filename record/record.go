@@ -16,16 +16,19 @@ const (
 	kindNone kind = iota
 	kindChunk
 	kindVersion
+	kindDelete
+	kindPrune
+	kindTag
+	kindUntag
 )
 
 // Widths of numbers, in bytes.
 const (
-	kindWidth    = 1
-	sizeWidth    = 2
-	lengthWidth  = 1
-	versionWidth = 4
-	idWidth      = 4
-	headSize     = kindWidth + sizeWidth
+	kindWidth   = 1
+	sizeWidth   = 2
+	lengthWidth = 1
+	numberWidth = 4
+	headSize    = kindWidth + sizeWidth
 )
 
 // Head is what each record begins with.
@@ -36,12 +39,6 @@ type Head struct {
 
 // Length is how many bytes the record has, with its head.
 func (h Head) Length() int { return headSize + h.size }
-
-// appendTo appends the head.
-func (h Head) appendTo(b []byte) []byte {
-	b = pack.Append(b, uint64(h.kind), kindWidth)
-	return pack.Append(b, uint64(h.size), sizeWidth)
-}
 
 // Record is a record of any kind.
 type Record interface{ Length() int }
@@ -60,25 +57,87 @@ type Version struct {
 	Chunks []uint32
 }
 
+// Delete is a version that is there no more.
+type Delete struct {
+	Head
+	Path   string
+	Number int
+}
+
+// Prune tells that of a path's versions just the latest ones are there yet, and those that tags hold.
+type Prune struct {
+	Head
+	Path string
+	Keep int
+}
+
+// Tag is a tag, and the version that it holds.
+type Tag struct {
+	Head
+	Name, Path string
+	Number     int
+}
+
+// Untag is a tag that is there no more.
+type Untag struct {
+	Head
+	Name string
+}
+
 // AppendChunk appends a Chunk.
 func AppendChunk(b, data []byte) []byte {
-	b = Head{kindChunk, len(data)}.appendTo(b)
+	b = appendHead(b, kindChunk, len(data))
 	return append(b, data...)
 }
 
 // AppendVersion appends a Version.
 func AppendVersion(b []byte, path string, number int, chunks []uint32) []byte {
-	b = Head{kindVersion, lengthWidth + len(path) + versionWidth + idWidth*len(chunks)}.appendTo(b)
-	b = pack.Append(b, uint64(len(path)), lengthWidth)
-	b = append(b, path...)
-	b = pack.Append(b, uint64(number), versionWidth)
+	b = appendHead(b, kindVersion, textSize(path)+numberWidth+numberWidth*len(chunks))
+	b = appendText(b, path)
+	b = appendNumber(b, number)
 	for _, id := range chunks {
-		b = pack.Append(b, uint64(id), idWidth)
+		b = pack.Append(b, uint64(id), numberWidth)
 	}
 	return b
 }
 
-// All goes through the records of a change. A Chunk's data is a piece of the change. At an error it ends.
+// AppendDelete appends a Delete.
+func AppendDelete(b []byte, path string, number int) []byte {
+	b = appendHead(b, kindDelete, textSize(path)+numberWidth)
+	return appendNumber(appendText(b, path), number)
+}
+
+// AppendPrune appends a Prune.
+func AppendPrune(b []byte, path string, keep int) []byte {
+	b = appendHead(b, kindPrune, textSize(path)+numberWidth)
+	return appendNumber(appendText(b, path), keep)
+}
+
+// AppendTag appends a Tag.
+func AppendTag(b []byte, name, path string, number int) []byte {
+	b = appendHead(b, kindTag, textSize(name)+textSize(path)+numberWidth)
+	return appendNumber(appendText(appendText(b, name), path), number)
+}
+
+// AppendUntag appends an Untag.
+func AppendUntag(b []byte, name string) []byte {
+	return appendText(appendHead(b, kindUntag, textSize(name)), name)
+}
+
+func appendHead(b []byte, k kind, size int) []byte {
+	return pack.Append(pack.Append(b, uint64(k), kindWidth), uint64(size), sizeWidth)
+}
+
+func appendText(b []byte, s string) []byte {
+	return append(pack.Append(b, uint64(len(s)), lengthWidth), s...)
+}
+
+func appendNumber(b []byte, n int) []byte { return pack.Append(b, uint64(n), numberWidth) }
+
+// textSize is how many bytes a text has in a record.
+func textSize(s string) int { return lengthWidth + len(s) }
+
+// All goes through the records of a change. A Chunk's data is a piece of the change; all else is fresh. At an error it ends.
 func All(change []byte) iter.Seq2[Record, error] {
 	return func(yield func(Record, error) bool) {
 		for rest := change; len(rest) > 0 && kind(rest[0]) != kindNone; {
@@ -100,37 +159,29 @@ func first(b []byte) (Record, error) {
 	if len(b) < h.Length() {
 		return nil, api.ErrCorrupt
 	}
-	body := b[headSize:h.Length()]
-	switch h.kind {
-	case kindChunk:
-		return Chunk{h, body}, nil
-	case kindVersion:
-		return version(h, body)
-	}
-	return nil, api.ErrCorrupt
-}
-
-// version is the Version with that head.
-func version(h Head, body []byte) (Record, error) {
-	path, rest, ok := text(body)
-	if !ok || len(rest) < versionWidth || (len(rest)-versionWidth)%idWidth != 0 {
+	rest := body{rest: b[headSize:h.Length()]}
+	r := recordOf(h, &rest)
+	if r == nil || rest.short || len(rest.rest) > 0 {
 		return nil, api.ErrCorrupt
 	}
-	v := Version{Head: h, Path: path, Number: int(pack.Number(rest[:versionWidth]))}
-	for rest = rest[versionWidth:]; len(rest) > 0; rest = rest[idWidth:] {
-		v.Chunks = append(v.Chunks, uint32(pack.Number(rest[:idWidth])))
-	}
-	return v, nil
+	return r, nil
 }
 
-// text takes a text from the beginning of b.
-func text(b []byte) (string, []byte, bool) {
-	if len(b) < lengthWidth {
-		return "", nil, false
+// recordOf takes the record with that head from its body; nil, if there is none of that kind.
+func recordOf(h Head, b *body) Record {
+	switch h.kind {
+	case kindChunk:
+		return Chunk{h, b.take(h.size)}
+	case kindVersion:
+		return Version{h, b.text(), b.number(), b.numbers()}
+	case kindDelete:
+		return Delete{h, b.text(), b.number()}
+	case kindPrune:
+		return Prune{h, b.text(), b.number()}
+	case kindTag:
+		return Tag{h, b.text(), b.text(), b.number()}
+	case kindUntag:
+		return Untag{h, b.text()}
 	}
-	end := lengthWidth + int(b[0])
-	if len(b) < end {
-		return "", nil, false
-	}
-	return string(b[lengthWidth:end]), b[end:], true
+	return nil
 }

@@ -27,11 +27,19 @@ func sample() ([]byte, []Record) {
 	change = AppendChunk(change, long)
 	change = AppendVersion(change, "abcdefghij/klmnopqrs", 1<<31-1, []uint32{0, 1, 1<<32 - 1})
 	change = AppendVersion(change, "a", 1, nil)
+	change = AppendDelete(change, "a/b", 300)
+	change = AppendPrune(change, "a/b", 0)
+	change = AppendTag(change, "abcdefghij/klmnopqrs", "a", 1<<31-1)
+	change = AppendUntag(change, "t")
 	return change, []Record{
 		Chunk{Head{kindChunk, 1}, []byte("x")},
 		Chunk{Head{kindChunk, 256}, long},
 		Version{Head{kindVersion, 37}, "abcdefghij/klmnopqrs", 1<<31 - 1, []uint32{0, 1, 1<<32 - 1}},
 		Version{Head{kindVersion, 6}, "a", 1, nil},
+		Delete{Head{kindDelete, 8}, "a/b", 300},
+		Prune{Head{kindPrune, 8}, "a/b", 0},
+		Tag{Head{kindTag, 27}, "abcdefghij/klmnopqrs", "a", 1<<31 - 1},
+		Untag{Head{kindUntag, 2}, "t"},
 	}
 }
 
@@ -93,7 +101,7 @@ func TestAllOfWhatIsNoChange(t *testing.T) {
 			t.Errorf("the first %d bytes: %d of them read, %v", n, whole, err)
 		}
 	}
-	if len(records) != 4 {
+	if len(records) != 8 {
 		t.Fatal("the sample is another one")
 	}
 	for what, change := range map[string][]byte{
@@ -102,6 +110,15 @@ func TestAllOfWhatIsNoChange(t *testing.T) {
 		"a path that goes beyond it":  {byte(kindVersion), 3, 0, 200, 'a', 'b'},
 		"a version without a number":  {byte(kindVersion), 4, 0, 1, 'a', 1, 0},
 		"half the number of a chunk":  {byte(kindVersion), 8, 0, 1, 'a', 1, 0, 0, 0, 7, 7},
+		"a delete without a number":   {byte(kindDelete), 2, 0, 1, 'a'},
+		"a delete with more":          {byte(kindDelete), 7, 0, 1, 'a', 1, 0, 0, 0, 0},
+		"a prune without a number":    {byte(kindPrune), 5, 0, 1, 'a', 1, 0, 0},
+		"a prune with more":           {byte(kindPrune), 7, 0, 1, 'a', 1, 0, 0, 0, 0},
+		"a tag without a path":        {byte(kindTag), 2, 0, 1, 't'},
+		"a tag without a number":      {byte(kindTag), 4, 0, 1, 't', 1, 'a'},
+		"a tag with more":             {byte(kindTag), 9, 0, 1, 't', 1, 'a', 1, 0, 0, 0, 0},
+		"an untag without a name":     {byte(kindUntag), 0, 0},
+		"an untag with more":          {byte(kindUntag), 3, 0, 1, 't', 0},
 		"a record that is cut off":    {byte(kindChunk), 3, 0, 'a', 'b'},
 		"a head that is cut off":      {byte(kindChunk), 3},
 		"a length of the high byte 1": {byte(kindChunk), 0, 1, 'a'},
@@ -112,12 +129,13 @@ func TestAllOfWhatIsNoChange(t *testing.T) {
 	}
 }
 
-// A record's path and chunks are its own: the change is a buffer that is used again.
-func TestVersionIsFresh(t *testing.T) {
+// But for a Chunk's data all of a record is its own: the change is a buffer that is used again.
+func TestRecordsAreFresh(t *testing.T) {
 	change := AppendVersion(nil, "path", 2, []uint32{5})
+	change = AppendTag(change, "name", "path", 2)
 	got, err := read(change)
 	clear(change)
-	want := []Record{Version{Head{kindVersion, 13}, "path", 2, []uint32{5}}}
+	want := []Record{Version{Head{kindVersion, 13}, "path", 2, []uint32{5}}, Tag{Head{kindTag, 14}, "name", "path", 2}}
 	if err != nil || !reflect.DeepEqual(got, want) {
 		t.Errorf("%v, %v", got, err)
 	}

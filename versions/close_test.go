@@ -1,6 +1,7 @@
 package versions_test
 
 import (
+	"fmt"
 	"testing"
 
 	"versions/api"
@@ -52,6 +53,7 @@ func expectClosed(t *testing.T, a *versions.Archive) {
 func TestClosed(t *testing.T) {
 	a := fresh(t)
 	expectPut(t, a, "a", []byte("x"), 1)
+	expectTag(t, a, "a", "a", 1, api.OK)
 	expectError(t, "Close", a.Close(), api.OK)
 	expectClosed(t, a)
 	expectClosed(t, a)
@@ -85,12 +87,19 @@ func TestSafe(t *testing.T) {
 				expectError(t, what, a.Sync(), api.OK)
 			}
 			expectPut(t, a, "a", noise(2, 900), 2)
+			expectPut(t, a, "b", noise(2, 900), 1)
+			expectTag(t, a, "t", "a", 1, api.OK)
+			expectTag(t, a, "u", "a", 1, api.OK)
+			expectUntag(t, a, "t", api.OK)
+			expectDelete(t, a, "b", 1, api.OK)
 			expectError(t, what, makeSafe(a), api.OK)
 			d.Crash(0)
 			b := opened(t, d, plenty)
 			expectVersions(t, b, "a", 1, 2)
+			expectMissing(t, b, "b")
 			expectGet(t, b, "a", 1, noise(1, 900))
 			expectGet(t, b, "a", 2, noise(2, 900))
+			expectTags(t, b, api.Pin{Tag: "u", Path: "a", Version: 1})
 		}
 	}
 }
@@ -98,7 +107,7 @@ func TestSafe(t *testing.T) {
 // P11: an archive goes on where the one ahead of it was closed.
 func TestOpenAgainAndAgain(t *testing.T) {
 	d := api.NewDevice(400)
-	m := model{}
+	m := newModel()
 	for i := range 20 {
 		a := opened(t, d, plenty)
 		if got, want := tell(t, a), m.tell(); got != want {
@@ -106,6 +115,11 @@ func TestOpenAgainAndAgain(t *testing.T) {
 		}
 		content := append(noise(1, 400), byte(i))
 		expectPut(t, a, "a", content, m.put("a", content))
+		expectAnswer(t, "each session", a, m, op{call: "Tag", name: fmt.Sprint("t", i%7), path: "a"})
+		if i > 3 {
+			expectAnswer(t, "each session", a, m, op{call: "Untag", name: fmt.Sprint("t", (i-3)%7)})
+		}
+		expectAnswer(t, "each session", a, m, op{call: "Prune", path: "a", number: 2})
 		if i%2 == 0 {
 			expectError(t, "Sync", a.Sync(), api.OK)
 			expectError(t, "Sync of nothing", a.Sync(), api.OK)

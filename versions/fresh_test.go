@@ -24,14 +24,30 @@ func TestPutLeavesContentAlone(t *testing.T) {
 	expectGet(t, a, "a", 2, before[:2000])
 }
 
-// P2: a path that is handed in is not kept, not even its memory.
-func TestPutKeepsNoPath(t *testing.T) {
+// P2: a path or a name that is handed in is not kept, not even its memory.
+func TestPathsAndNamesAreNotKept(t *testing.T) {
 	a := fresh(t)
 	memory := []byte("path")
-	expectPut(t, a, unsafe.String(&memory[0], len(memory)), []byte("x"), 1)
+	text := unsafe.String(&memory[0], len(memory))
+	expectPut(t, a, text, []byte("x"), 1)
+	expectPut(t, a, text, []byte("y"), 2)
+	copy(memory, "name")
+	expectTag(t, a, text, "path", 1, api.OK)
+	copy(memory, "path")
+	expectTag(t, a, "tag", text, 2, api.OK)
 	copy(memory, "else")
 	expectGet(t, a, "path", 1, []byte("x"))
-	expectList(t, a, "", api.Entry{Path: "path", Latest: 1, Size: 1, Versions: 1})
+	expectList(t, a, "", api.Entry{Path: "path", Latest: 2, Size: 1, Versions: 2})
+	expectTags(t, a, api.Pin{Tag: "name", Path: "path", Version: 1}, api.Pin{Tag: "tag", Path: "path", Version: 2})
+	copy(memory, "name")
+	expectUntag(t, a, text, api.OK)
+	copy(memory, "path")
+	expectDelete(t, a, text, 1, api.OK)
+	copy(memory, "else")
+	expectPrune(t, a, "path", 0, 0)
+	expectTags(t, a, api.Pin{Tag: "tag", Path: "path", Version: 2})
+	collected(t, a)
+	expectVersions(t, a, "path", 2)
 }
 
 // P2: what comes out is fresh, with the room behind it.
@@ -40,6 +56,7 @@ func TestAnswersAreFresh(t *testing.T) {
 	content := noise(1, 500)
 	expectPut(t, a, "a", content, 1)
 	expectPut(t, a, "b", []byte("b"), 1)
+	expectTag(t, a, "t", "b", 1, api.OK)
 	for range 2 {
 		b, _ := a.Get("a", 1)
 		clear(b[:cap(b)])
@@ -49,7 +66,10 @@ func TestAnswersAreFresh(t *testing.T) {
 		clear(numbers[:cap(numbers)])
 		entries, _ := a.List("")
 		clear(entries[:cap(entries)])
+		pins, _ := a.Tags()
+		clear(pins[:cap(pins)])
 	}
+	expectTags(t, a, api.Pin{Tag: "t", Path: "b", Version: 1})
 	expectGet(t, a, "a", 1, content)
 	expectRead(t, a, "a", 1, 100, 100, string(content[100:200]))
 	expectVersions(t, a, "a", 1)
@@ -63,10 +83,19 @@ func TestAnswersStay(t *testing.T) {
 	one, _ := a.Get("a", 1)
 	numbers, _ := a.Versions("a")
 	entries, _ := a.List("")
+	expectTag(t, a, "t", "a", 1, api.OK)
+	pins, _ := a.Tags()
 	expectPut(t, a, "a", noise(2, 500), 2)
 	a.Get("a", 2)
+	expectUntag(t, a, "t", api.OK)
+	expectTag(t, a, "s", "a", 2, api.OK)
+	expectDelete(t, a, "a", 1, api.OK)
+	collected(t, a)
 	a.Close()
 	if !bytes.Equal(one, noise(1, 500)) || len(numbers) != 1 || numbers[0] != 1 || entries[0].Latest != 1 {
 		t.Errorf("an answer changed: %v, %v", numbers, entries)
+	}
+	if len(pins) != 1 || pins[0] != (api.Pin{Tag: "t", Path: "a", Version: 1}) {
+		t.Errorf("an answer changed: %v", pins)
 	}
 }

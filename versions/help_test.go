@@ -4,8 +4,6 @@ import (
 	"bytes"
 	"fmt"
 	"slices"
-	"strconv"
-	"strings"
 	"testing"
 
 	"versions/api"
@@ -83,53 +81,69 @@ func expectList(t testing.TB, a *versions.Archive, prefix string, want ...api.En
 	}
 }
 
-// model is what an archive has, as plainly as can be: the contents of each path, by their numbers less 1.
-type model map[string][]string
-
-// put adds a version and tells its number.
-func (m model) put(path string, content []byte) int {
-	m[path] = append(m[path], string(content))
-	return len(m[path])
-}
-
-// line tells a version.
-func line(path string, number, all int, content string) string {
-	return path + " " + strconv.Itoa(number) + " of " + strconv.Itoa(all) + ": " + content
-}
-
-// tell tells all that is there.
-func (m model) tell() string {
-	var lines []string
-	for path, contents := range m {
-		for i, c := range contents {
-			lines = append(lines, line(path, i+1, len(contents), c))
-		}
-	}
-	slices.Sort(lines)
-	return strings.Join(lines, "\n")
-}
-
-// tell tells all that an archive has, as model.tell does; and whether List, Versions, Get and ReadAt agree with one another.
-func tell(t testing.TB, a *versions.Archive) string {
+// expectMissing: a path has no versions.
+func expectMissing(t testing.TB, a *versions.Archive, path string) {
 	t.Helper()
-	var lines []string
-	entries, err := a.List("")
-	if err != nil {
-		t.Fatalf("List: %v", err)
+	numbers, err := a.Versions(path)
+	if len(numbers) != 0 {
+		t.Errorf("Versions(%q): %v beside %v", path, numbers, err)
 	}
-	for _, e := range entries {
-		numbers, err := a.Versions(e.Path)
-		if err != nil || len(numbers) != e.Versions || numbers[len(numbers)-1] != e.Latest {
-			t.Fatalf("%v, but Versions: %v, %v", e, numbers, err)
-		}
-		for _, n := range numbers {
-			b, err := a.Get(e.Path, n)
-			if err != nil || n == e.Latest && len(b) != e.Size {
-				t.Fatalf("%v, but Get of %d: %d bytes, %v", e, n, len(b), err)
-			}
-			lines = append(lines, line(e.Path, n, len(numbers), string(b)))
-		}
+	expectError(t, fmt.Sprintf("Versions(%q)", path), err, api.ErrMissing)
+}
+
+func expectDelete(t testing.TB, a *versions.Archive, path string, version int, want api.Errno) {
+	t.Helper()
+	expectError(t, fmt.Sprintf("Delete(%q, %d)", path, version), a.Delete(path, version), want)
+}
+
+func expectPrune(t testing.TB, a *versions.Archive, path string, keep, want int) {
+	t.Helper()
+	if n, err := a.Prune(path, keep); n != want || err != nil {
+		t.Errorf("Prune(%q, %d): %d, %v, want %d", path, keep, n, err, want)
 	}
-	slices.Sort(lines)
-	return strings.Join(lines, "\n")
+}
+
+func expectNoPrune(t testing.TB, a *versions.Archive, path string, keep int, want api.Errno) {
+	t.Helper()
+	n, err := a.Prune(path, keep)
+	if n != 0 {
+		t.Errorf("Prune(%q, %d): %d beside %v", path, keep, n, err)
+	}
+	expectError(t, fmt.Sprintf("Prune(%q, %d)", path, keep), err, want)
+}
+
+func expectTag(t testing.TB, a *versions.Archive, name, path string, version int, want api.Errno) {
+	t.Helper()
+	expectError(t, fmt.Sprintf("Tag(%q, %q, %d)", name, path, version), a.Tag(name, path, version), want)
+}
+
+func expectUntag(t testing.TB, a *versions.Archive, name string, want api.Errno) {
+	t.Helper()
+	expectError(t, fmt.Sprintf("Untag(%q)", name), a.Untag(name), want)
+}
+
+func expectTags(t testing.TB, a *versions.Archive, want ...api.Pin) {
+	t.Helper()
+	if got, err := a.Tags(); err != nil || !slices.Equal(got, want) {
+		t.Errorf("Tags: %v, %v, want %v", got, err, want)
+	}
+}
+
+func expectStored(t testing.TB, what string, a *versions.Archive, chunks, bytes int) {
+	t.Helper()
+	if got, err := a.Stored(); err != nil || got != (api.Stored{Chunks: chunks, Bytes: bytes}) {
+		t.Errorf("Stored, %s: %v, %v, want %d, %d", what, got, err, chunks, bytes)
+	}
+}
+
+func collected(t testing.TB, a *versions.Archive) {
+	t.Helper()
+	expectError(t, "Collect", a.Collect(), api.OK)
+}
+
+// reopened closes an archive, and opens one over the device again.
+func reopened(t testing.TB, a *versions.Archive, d *api.Device, quota int) *versions.Archive {
+	t.Helper()
+	expectError(t, "Close", a.Close(), api.OK)
+	return opened(t, d, quota)
 }

@@ -95,7 +95,17 @@ func useAll(a *versions.Archive) {
 			a.ReadAt(e.Path, n, 3, math.MaxInt)
 		}
 		a.Put(e.Path, noise(9, 700))
+		a.Tag("new", e.Path, 0)
+		a.Delete(e.Path, 0)
+		a.Prune(e.Path, 1)
 	}
+	a.Put("new", noise(9, 700))
+	pins, _ := a.Tags()
+	for _, pin := range pins {
+		a.Untag(pin.Tag)
+	}
+	a.Stored()
+	a.Collect()
 	a.Put("new", noise(9, 700))
 	a.Sync()
 	a.Close()
@@ -144,7 +154,12 @@ func TestOpenOfShuffledSectors(t *testing.T) {
 		if i%3 == 0 {
 			a.Sync()
 		}
+		if i == 3 {
+			expectTag(t, a, "t", "a", 2, api.OK)
+			collected(t, a)
+		}
 	}
+	expectPrune(t, a, "a", 2, 5)
 	a.Close()
 	r := rand.New(rand.NewSource(1))
 	for range 2000 {
@@ -173,7 +188,7 @@ func written(t testing.TB, change []byte) *api.Device {
 	if err != nil {
 		t.Fatal(err)
 	}
-	j.Append(change)
+	j.Append(change, 0)
 	j.Sync()
 	return d
 }
@@ -186,6 +201,10 @@ func FuzzOpen(f *testing.F) {
 	f.Add(record.AppendVersion(change, "p", math.MaxInt32, []uint32{0, 0}))
 	f.Add(record.AppendVersion(change, "p", 1, nil))
 	f.Add(noise(3, 100))
+	change = record.AppendTag(record.AppendVersion(change, "p", 2, nil), "t", "p", 1)
+	f.Add(change)
+	f.Add(record.AppendPrune(change, "p", 0))
+	f.Add(record.AppendDelete(record.AppendUntag(change, "t"), "p", 1))
 	f.Fuzz(func(t *testing.T, change []byte) {
 		expectOpenEnds(t, "any change", written(t, change))
 	})
@@ -204,19 +223,24 @@ func TestPutBehindTheGreatestNumber(t *testing.T) {
 func TestOpenOfACopy(t *testing.T) {
 	d := api.NewDevice(200)
 	a := opened(t, d, plenty)
-	m := model{}
+	m := newModel()
 	for i := range 12 {
 		content := noise(uint32(i%5), i*90)
 		expectPut(t, a, string(rune('a'+i%3)), content, m.put(string(rune('a'+i%3)), content))
 	}
+	for _, o := range []op{
+		{call: "Tag", name: "t", path: "a", number: 2}, {call: "Tag", name: "u", path: "b"}, {call: "Prune", path: "a", number: 1},
+		{call: "Delete", path: "c", number: 2}, {call: "Untag", name: "u"}, {call: "Tag", name: "v", path: "a", number: 2},
+	} {
+		expectAnswer(t, "ahead of a copy", a, m, o)
+	}
 	unsafe := d.Copy()
 	a.Close()
+	m.free()
 	for _, d := range []*api.Device{d, d.Copy(), unsafe, unsafe.Copy()} {
 		for range 2 {
 			a := opened(t, d, plenty)
-			if got, want := tell(t, a), m.tell(); got != want {
-				t.Errorf("%q\nwant\n%q", got, want)
-			}
+			expectSame(t, "a copy", a, m)
 			a.Close()
 		}
 	}

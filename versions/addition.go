@@ -10,14 +10,14 @@ import (
 	"versions/record"
 )
 
-// fresh is a chunk of the draft's content that is not on the device yet.
+// fresh is a chunk of the content that is not on the device yet.
 type fresh struct {
 	id   uint32
 	data []byte
 }
 
-// draft is a version that is to be put.
-type draft struct {
+// addition is a version that is to be put.
+type addition struct {
 	archive *Archive
 	change  []byte
 	ids     []uint32 // of the content's chunks
@@ -25,42 +25,44 @@ type draft struct {
 	next    uint32 // the number of the next fresh chunk
 }
 
-// draft makes the change that adds a version: its chunks that are not there, and the version itself. It is appended to a buffer, which is answered beside an error too.
-func (a *Archive) draft(buffer []byte, path string, number int, content []byte) ([]byte, error) {
-	d := draft{archive: a, change: buffer, fresh: map[pack.Sum][]fresh{}, next: a.catalog.NextChunk()}
-	for c := range chunk.All(content) {
-		if err := d.add(c); err != nil {
-			return d.change, err
+// adding drafts the change that adds a version: its chunks that are not there, and the version itself.
+func (a *Archive) adding(path string, number int, content []byte) draft {
+	return func(buffer []byte) ([]byte, error) {
+		n := addition{archive: a, change: buffer, fresh: map[pack.Sum][]fresh{}, next: a.catalog.NextChunk()}
+		for c := range chunk.All(content) {
+			if err := n.add(c); err != nil {
+				return n.change, err
+			}
 		}
+		return record.AppendVersion(n.change, path, number, n.ids), nil
 	}
-	return record.AppendVersion(d.change, path, number, d.ids), nil
 }
 
 // add adds a chunk to the version, and to the change, if it is in neither the device nor the change.
-func (d *draft) add(data []byte) error {
+func (n *addition) add(data []byte) error {
 	sum := catalog.SumOf(data)
-	id, found, err := d.archive.stored(sum, data)
+	id, found, err := n.archive.stored(sum, data)
 	if err != nil {
 		return err
 	}
 	if !found {
-		id = d.take(sum, data)
+		id = n.take(sum, data)
 	}
-	d.ids = append(d.ids, id)
+	n.ids = append(n.ids, id)
 	return nil
 }
 
 // take is the number of a fresh chunk: the same chunk may be in the content more than once.
-func (d *draft) take(sum pack.Sum, data []byte) uint32 {
-	for _, f := range d.fresh[sum] {
+func (n *addition) take(sum pack.Sum, data []byte) uint32 {
+	for _, f := range n.fresh[sum] {
 		if bytes.Equal(f.data, data) {
 			return f.id
 		}
 	}
-	f := fresh{d.next, data}
-	d.next++
-	d.fresh[sum] = append(d.fresh[sum], f)
-	d.change = record.AppendChunk(d.change, data)
+	f := fresh{n.next, data}
+	n.next++
+	n.fresh[sum] = append(n.fresh[sum], f)
+	n.change = record.AppendChunk(n.change, data)
 	return f.id
 }
 
