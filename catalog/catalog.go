@@ -1,55 +1,62 @@
-// Package catalog knows what there is: which versions the paths have, which tags hold them, which chunks they have, and where these are. It has none of their bytes.
+// Package catalog knows what there is: which versions the paths have, which tags hold them, which chunks they have, and where the records of all that stand. It has none of the chunks' bytes.
 package catalog
 
 import (
 	"versions/api"
 	"versions/pack"
 	"versions/record"
+	"versions/store"
 )
 
 // Catalog has all versions of all paths.
 type Catalog struct {
-	files  map[string][]Version // by their numbers, rising; no list is empty
-	tags   map[string]api.Pin   // by their names
-	pieces []Piece              // of the chunks, by their numbers
-	known  map[pack.Sum][]uint32
-	bytes  int // of all versions together
+	files    map[string][]*Version // by their numbers, rising; no list is empty
+	tags     map[string]*Tag       // by their names
+	chunks   map[uint32]*chunk     // by their numbers
+	known    map[pack.Sum][]uint32 // those chunks that new versions may have
+	ids      map[uint32]*Version   // by the numbers of their records; with those that are gone
+	prunes   []store.Span          // where the records of prunes stand
+	bytes    int                   // of all versions together
+	tagBytes int                   // of all records of tags together
 }
 
 // New makes a catalog that has nothing.
 func New() *Catalog {
-	return &Catalog{files: map[string][]Version{}, tags: map[string]api.Pin{}, known: map[pack.Sum][]uint32{}}
+	return &Catalog{
+		files:  map[string][]*Version{},
+		tags:   map[string]*Tag{},
+		chunks: map[uint32]*chunk{},
+		known:  map[pack.Sum][]uint32{},
+		ids:    map[uint32]*Version{},
+	}
 }
 
-// Apply takes in a change that stands at that place. At an error the catalog is of no use any more.
-func (c *Catalog) Apply(place int, change []byte) error {
-	for r, err := range record.All(change) {
+// Apply takes in records that stand at that place, behind all others. At an error the catalog is of no use any more.
+func (c *Catalog) Apply(place int, records []byte) error {
+	for r, err := range record.All(records) {
 		if err != nil {
 			return err
 		}
-		if !c.take(place, r) {
+		span := store.Span{Place: place, Size: r.Length()}
+		if !c.take(span, r) {
 			return api.ErrCorrupt
 		}
-		place += r.Length()
+		place = span.End()
 	}
 	return nil
 }
 
-// take takes in a record that stands at that place. It tells whether there can be such a one.
-func (c *Catalog) take(place int, r record.Record) bool {
+// take takes in a record that stands there. It tells whether there can be such a one.
+func (c *Catalog) take(at store.Span, r record.Record) bool {
 	switch r := r.(type) {
 	case record.Chunk:
-		return c.addChunk(place+r.Length()-len(r.Data), r.Data)
+		return c.addChunk(at, r)
 	case record.Version:
-		return c.addVersion(r)
-	case record.Delete:
-		return c.remove(r)
-	case record.Prune:
-		return c.prune(r)
+		return c.addVersion(at, r)
 	case record.Tag:
-		return c.addTag(r)
-	case record.Untag:
-		return c.removeTag(r)
+		return c.addTag(at, r)
+	case record.Prune:
+		return c.prune(at, r)
 	}
 	return false
 }

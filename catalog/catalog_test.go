@@ -3,53 +3,64 @@ package catalog
 import (
 	"bytes"
 	"errors"
+	"math"
 	"slices"
 	"strings"
 	"testing"
 
 	"versions/api"
 	"versions/record"
+	"versions/store"
 )
 
 func chunkOf(n int) []byte { return bytes.Repeat([]byte{7}, n) }
 
-// made is a catalog that has taken in these changes, from place 1000 on.
-func made(t *testing.T, changes ...[]byte) *Catalog {
+// made is a catalog that has taken in records, from place 1000 on.
+func made(t *testing.T, records []byte) *Catalog {
 	t.Helper()
 	c := New()
-	for _, change := range changes {
-		if err := c.Apply(1000, change); err != nil {
-			t.Fatal(err)
-		}
+	if err := c.Apply(1000, records); err != nil {
+		t.Fatal(err)
 	}
 	return c
 }
 
+// applied takes in records more, behind those that were handed in first.
+func applied(t *testing.T, c *Catalog, place int, records []byte) {
+	t.Helper()
+	if err := c.Apply(place, records); err != nil {
+		t.Fatal(err)
+	}
+}
+
 func TestApply(t *testing.T) {
-	change := record.AppendChunk(nil, []byte("abc"))
-	change = record.AppendChunk(change, []byte("de"))
-	change = record.AppendVersion(change, "p", 1, []uint32{1, 0, 1})
-	change = record.AppendVersion(change, "p", 4, nil)
-	c := made(t, append(change, 0, 0))
+	records := record.AppendChunk(nil, 5, []byte("abc"))
+	records = record.AppendChunk(records, 0, []byte("de"))
+	records = record.AppendVersion(records, 9, "p", 1, []uint32{0, 5, 0})
+	records = record.AppendVersion(records, 0, "p", 4, nil)
+	c := made(t, records)
 	v, err := c.Find("p", 1)
-	if err != nil || v.Number != 1 || v.Size != 7 {
+	if err != nil || v.Number != 1 || v.Size != 7 || v.ID != 9 || v.At != (store.Span{Place: 1009, Size: 8}) {
 		t.Fatalf("%v, %v", v, err)
 	}
-	want := []Piece{{1009, 2}, {1003, 3}, {1009, 2}}
+	want := []store.Span{{Place: 1007, Size: 2}, {Place: 1002, Size: 3}, {Place: 1007, Size: 2}}
 	if got := slices.Collect(c.Pieces(v)); !slices.Equal(got, want) {
 		t.Errorf("pieces %v, want %v", got, want)
 	}
-	if c.Latest("p") != 4 || c.Bytes() != 7 || c.NextChunk() != 2 {
-		t.Errorf("latest %d, %d bytes, next chunk %d", c.Latest("p"), c.Bytes(), c.NextChunk())
+	if c.Latest("p") != 4 || c.Bytes() != 7 || c.Versions() != 2 {
+		t.Errorf("latest %d, %d bytes, %d versions", c.Latest("p"), c.Bytes(), c.Versions())
+	}
+	if c.FreeVersion() != 1 || c.FreeChunk(0) != 1 || c.FreeChunk(5) != 6 || c.FreeChunk(7) != 7 {
+		t.Errorf("free numbers: a version %d, chunks %d, %d, %d", c.FreeVersion(), c.FreeChunk(0), c.FreeChunk(5), c.FreeChunk(7))
 	}
 }
 
 // Chunks with one sum are all found.
 func TestKnown(t *testing.T) {
-	change := record.AppendChunk(nil, []byte("same"))
-	change = record.AppendChunk(change, []byte("other"))
-	change = record.AppendChunk(change, []byte("same"))
-	c := made(t, change)
+	records := record.AppendChunk(nil, 3, []byte("same"))
+	records = record.AppendChunk(records, 1, []byte("other"))
+	records = record.AppendChunk(records, 2, []byte("same"))
+	c := made(t, records)
 	var ids []uint32
 	for id, piece := range c.Known(SumOf([]byte("same"))) {
 		if piece.Size != 4 {
@@ -57,7 +68,7 @@ func TestKnown(t *testing.T) {
 		}
 		ids = append(ids, id)
 	}
-	if !slices.Equal(ids, []uint32{0, 2}) {
+	if !slices.Equal(ids, []uint32{3, 2}) {
 		t.Errorf("%v", ids)
 	}
 	for range c.Known(SumOf([]byte("none"))) {
@@ -66,9 +77,8 @@ func TestKnown(t *testing.T) {
 }
 
 func TestFind(t *testing.T) {
-	change := record.AppendVersion(nil, "p", 2, nil)
-	change = record.AppendVersion(change, "p", 5, nil)
-	c := made(t, change)
+	records := record.AppendVersion(nil, 0, "p", 2, nil)
+	c := made(t, record.AppendVersion(records, 1, "p", 5, nil))
 	for _, ask := range []struct{ number, want int }{{0, 5}, {2, 2}, {5, 5}} {
 		if v, err := c.Find("p", ask.number); err != nil || v.Number != ask.want {
 			t.Errorf("version %d: %v, %v", ask.number, v, err)
@@ -88,59 +98,54 @@ func TestFind(t *testing.T) {
 
 // P1: records that are well formed, but that no archive wrote.
 func TestApplyOfWhatCannotBe(t *testing.T) {
-	version := func(path string, number int, chunks ...uint32) []byte {
-		return record.AppendVersion(nil, path, number, chunks)
+	version := func(id uint32, path string, number int, chunks ...uint32) []byte {
+		return record.AppendVersion(nil, id, path, number, chunks)
 	}
-	first := version("p", 3)
-	long := record.AppendChunk(nil, chunkOf(api.MaxChunk))
+	first := version(0, "p", 3)
+	long := record.AppendChunk(nil, 0, chunkOf(api.MaxChunk))
 	ids := make([]uint32, api.MaxContent/api.MaxChunk+1)
-	for what, change := range map[string][]byte{
-		"an empty chunk":              record.AppendChunk(nil, nil),
-		"a chunk that is too long":    record.AppendChunk(nil, chunkOf(api.MaxChunk+1)),
-		"a path that is none":         version("P", 1),
-		"an empty path":               version("", 1),
-		"a path that is too long":     version(strings.Repeat("a", 21), 1),
-		"the number 0":                version("p", 0),
-		"a number twice":              append(bytes.Clone(first), first...),
-		"a number that falls":         append(bytes.Clone(first), version("p", 2)...),
-		"a number that is too great":  version("p", 1<<31),
-		"a chunk that is not there":   version("p", 1, 0),
-		"a chunk far beyond":          version("p", 1, 1<<32-1),
-		"a chunk that comes later":    append(version("p", 1, 0), long...),
-		"a content that is too long":  append(long, version("p", 1, ids...)...),
-		"a kind of record that isn't": {99, 0, 0},
-		"no version to delete":        record.AppendDelete(nil, "p", 1),
-		"another version to delete":   record.AppendDelete(bytes.Clone(first), "p", 2),
-		"the version 0 to delete":     record.AppendDelete(bytes.Clone(first), "p", 0),
-		"a held version to delete":    record.AppendDelete(record.AppendTag(bytes.Clone(first), "t", "p", 3), "p", 3),
-		"no version to prune":         record.AppendPrune(nil, "p", 0),
-		"no old version to prune":     record.AppendPrune(bytes.Clone(first), "p", 1),
-		"no version to tag":           record.AppendTag(nil, "t", "p", 1),
-		"another version to tag":      record.AppendTag(bytes.Clone(first), "t", "p", 2),
-		"the version 0 to tag":        record.AppendTag(bytes.Clone(first), "t", "p", 0),
-		"a name that is none":         record.AppendTag(bytes.Clone(first), "T", "p", 3),
-		"a tag twice":                 record.AppendTag(record.AppendTag(bytes.Clone(first), "t", "p", 3), "t", "p", 3),
-		"no tag to let go":            record.AppendUntag(bytes.Clone(first), "t"),
-		"no name to let go":           record.AppendUntag(bytes.Clone(first), ""),
+	tag := func(name string, id uint32) []byte { return record.AppendTag(bytes.Clone(first), name, id) }
+	for what, records := range map[string][]byte{
+		"an empty chunk":             record.AppendChunk(nil, 0, nil),
+		"a chunk that is too long":   record.AppendChunk(nil, 0, chunkOf(api.MaxChunk+1)),
+		"two chunks of one number":   record.AppendChunk(record.AppendChunk(nil, 4, chunkOf(1)), 4, chunkOf(2)),
+		"a path that is none":        version(0, "a/", 1),
+		"an empty path":              version(0, "", 1),
+		"the number 0":               version(0, "p", 0),
+		"a number twice":             append(bytes.Clone(first), version(1, "p", 3)...),
+		"a number that falls":        append(bytes.Clone(first), version(1, "p", 2)...),
+		"two records of one number":  append(bytes.Clone(first), version(0, "q", 1)...),
+		"a number that is too great": version(0, "p", math.MaxInt32+1),
+		"a chunk that is not there":  version(0, "p", 1, 0),
+		"a chunk far beyond":         version(0, "p", 1, math.MaxInt32),
+		"a chunk that comes later":   append(version(0, "p", 1, 0), long...),
+		"a content that is too long": append(long, version(0, "p", 1, ids...)...),
+		"a record that is none":      {99},
+		"no version to tag":          record.AppendTag(nil, "t", 0),
+		"another version to tag":     tag("t", 1),
+		"a version that is gone":     record.AppendTag(record.AppendPrune(bytes.Clone(first), "p", 0), "t", 0),
+		"a name that is none":        tag("/", 0),
+		"an empty name":              tag("", 0),
+		"a tag twice":                record.AppendTag(tag("t", 0), "t", 0),
 	} {
-		if err := New().Apply(0, change); !errors.Is(err, api.ErrCorrupt) {
+		if err := New().Apply(0, records); !errors.Is(err, api.ErrCorrupt) {
 			t.Errorf("%s: %v", what, err)
 		}
 	}
 }
 
 func FuzzApply(f *testing.F) {
-	change := record.AppendChunk(nil, []byte("abc"))
-	change = record.AppendVersion(change, "p", 1, []uint32{0, 0})
-	f.Add(change)
-	change = record.AppendVersion(change, "p", 2, nil)
-	change = record.AppendTag(change, "t", "p", 1)
-	change = record.AppendPrune(change, "p", 0)
-	f.Add(change)
-	f.Add(record.AppendDelete(record.AppendUntag(change, "t"), "p", 1))
-	f.Fuzz(func(t *testing.T, change []byte) {
+	records := record.AppendChunk(nil, 1, []byte("abc"))
+	records = record.AppendVersion(records, 0, "p", 1, []uint32{1, 1})
+	f.Add(slices.Clone(records))
+	records = record.AppendVersion(records, 1, "p", 2, nil)
+	records = record.AppendTag(records, "t", 0)
+	f.Add(slices.Clone(records))
+	records = record.AppendPrune(records, "p", 0)
+	f.Add(records)
+	f.Fuzz(func(t *testing.T, records []byte) {
 		c := New()
-		if err := c.Apply(0, change); err != nil {
+		if err := c.Apply(0, records); err != nil {
 			return
 		}
 		for _, e := range c.List("") {
@@ -149,11 +154,54 @@ func FuzzApply(f *testing.F) {
 				t.Errorf("%v: %v, %v", e, v, err)
 			}
 			for p := range c.Pieces(v) {
-				if p.Place < 0 || p.Place+p.Size > len(change) {
+				if p.Place < 0 || p.End() > len(records) {
 					t.Errorf("%v: a piece outside, %v", e, p)
 				}
 			}
 		}
-		expectSameBehindImage(t, c, change)
+		expectSameWithoutUnused(t, c, records)
 	})
+}
+
+// summary tells all that can be read of a catalog whose records stand in memory.
+func summary(c *Catalog, memory []byte) string {
+	var all strings.Builder
+	for _, e := range c.List("") {
+		numbers, _ := c.Numbers(e.Path)
+		for _, n := range numbers {
+			v, _ := c.Find(e.Path, n)
+			tell(&all, e, n, v.Held())
+			for p := range c.Pieces(v) {
+				all.Write(memory[p.Place:p.End()])
+			}
+		}
+	}
+	tell(&all, c.Tags(), c.Bytes(), c.Versions())
+	return all.String()
+}
+
+// expectSameWithoutUnused: when the records that nothing needs are cut out, all is as it was; and so it is in a catalog that takes in what is left.
+func expectSameWithoutUnused(t *testing.T, c *Catalog, memory []byte) {
+	t.Helper()
+	want := summary(c, memory)
+	for _, list := range []func() []store.Span{c.Forgotten, c.Unused, c.Prunes} {
+		cuts := list()
+		for _, at := range slices.Backward(cuts) {
+			memory = slices.Concat(memory[:at.Place], memory[at.End():])
+		}
+		c.Cut(cuts)
+		if got := summary(c, memory); got != want {
+			t.Errorf("without %v: %q\nwant\n%q", cuts, got, want)
+		}
+		again := New()
+		if err := again.Apply(0, memory); err != nil {
+			t.Fatalf("without %v: %v", cuts, err)
+		}
+		if got := summary(again, memory); got != want {
+			t.Errorf("without %v, taken in again: %q\nwant\n%q", cuts, got, want)
+		}
+	}
+	if len(c.Unused())+len(c.Forgotten())+len(c.Prunes()) > 0 {
+		t.Errorf("unused yet: %v, %v, %v", c.Unused(), c.Forgotten(), c.Prunes())
+	}
 }

@@ -2,48 +2,67 @@ package catalog
 
 import (
 	"iter"
-	"maps"
 	"slices"
 
 	"versions/api"
 	"versions/pack"
+	"versions/record"
+	"versions/store"
 )
 
-// Piece tells where a chunk is, and how many bytes it has.
-type Piece struct{ Place, Size int }
+// chunk tells where the record of a chunk stands, and how many bytes the chunk has.
+type chunk struct {
+	at    store.Span
+	sum   pack.Sum
+	bytes int
+}
+
+// piece is where the chunk itself is: at the end of its record.
+func (k *chunk) piece() store.Span { return store.Span{Place: k.at.End() - k.bytes, Size: k.bytes} }
 
 // SumOf is the sum by which a chunk is known.
 func SumOf(chunk []byte) pack.Sum { return pack.SumOf(0, chunk) }
 
-func (c *Catalog) addChunk(place int, data []byte) bool {
-	if len(data) == 0 || len(data) > api.MaxChunk {
+func (c *Catalog) addChunk(at store.Span, r record.Chunk) bool {
+	if _, ok := c.chunks[r.ID]; ok || len(r.Data) == 0 || len(r.Data) > api.MaxChunk {
 		return false
 	}
-	sum := SumOf(data)
-	c.known[sum] = append(c.known[sum], c.NextChunk())
-	c.pieces = append(c.pieces, Piece{place, len(data)})
+	sum := SumOf(r.Data)
+	c.chunks[r.ID] = &chunk{at, sum, len(r.Data)}
+	c.known[sum] = append(c.known[sum], r.ID)
 	return true
 }
 
-// NextChunk is the number that the next chunk will have.
-func (c *Catalog) NextChunk() uint32 { return uint32(len(c.pieces)) }
+// removeChunk takes away a chunk that is there.
+func (c *Catalog) removeChunk(id uint32) {
+	c.forget(id)
+	delete(c.chunks, id)
+}
+
+// FreeChunk is the first number from that one on that no chunk has.
+func (c *Catalog) FreeChunk(from uint32) uint32 {
+	for c.chunks[from] != nil {
+		from++
+	}
+	return from
+}
 
 // Known goes through all chunks with that sum: their numbers, and where they are.
-func (c *Catalog) Known(sum pack.Sum) iter.Seq2[uint32, Piece] {
-	return func(yield func(uint32, Piece) bool) {
+func (c *Catalog) Known(sum pack.Sum) iter.Seq2[uint32, store.Span] {
+	return func(yield func(uint32, store.Span) bool) {
 		for _, id := range c.known[sum] {
-			if !yield(id, c.pieces[id]) {
+			if !yield(id, c.chunks[id].piece()) {
 				return
 			}
 		}
 	}
 }
 
-// Pieces goes through the chunks of a version.
-func (c *Catalog) Pieces(v Version) iter.Seq[Piece] {
-	return func(yield func(Piece) bool) {
+// Pieces goes through the chunks of a version: where they are.
+func (c *Catalog) Pieces(v *Version) iter.Seq[store.Span] {
+	return func(yield func(store.Span) bool) {
 		for _, id := range v.chunks {
-			if !yield(c.pieces[id]) {
+			if !yield(c.chunks[id].piece()) {
 				return
 			}
 		}
@@ -53,50 +72,50 @@ func (c *Catalog) Pieces(v Version) iter.Seq[Piece] {
 // Stored tells how many chunks are known, and their bytes together.
 func (c *Catalog) Stored() api.Stored {
 	var all api.Stored
-	for _, id := range c.Chunks() {
-		all.Chunks++
-		all.Bytes += c.pieces[id].Size
+	for _, ids := range c.known {
+		for _, id := range ids {
+			all.Chunks++
+			all.Bytes += c.chunks[id].bytes
+		}
 	}
 	return all
 }
 
-// Chunks are the numbers of all chunks that are known, rising.
-func (c *Catalog) Chunks() []uint32 {
-	var ids []uint32
-	for _, same := range c.known {
-		ids = append(ids, same...)
-	}
-	slices.Sort(ids)
-	return ids
-}
-
-// Live are the numbers of the chunks that versions have, rising.
-func (c *Catalog) Live() []uint32 { return slices.Sorted(maps.Keys(c.live())) }
-
-func (c *Catalog) live() map[uint32]struct{} {
-	live := map[uint32]struct{}{}
-	for _, list := range c.files {
-		for _, v := range list {
-			for _, id := range v.chunks {
-				live[id] = struct{}{}
-			}
-		}
-	}
-	return live
-}
+// isKnown tells whether new versions may have a chunk.
+func (c *Catalog) isKnown(id uint32) bool { return slices.Contains(c.known[c.chunks[id].sum], id) }
 
 // Forget forgets the chunks that no version has: then no version can get them any more.
 func (c *Catalog) Forget() {
-	live := c.live()
-	for sum, ids := range c.known {
-		ids = slices.DeleteFunc(ids, func(id uint32) bool {
-			_, ok := live[id]
-			return !ok
-		})
-		if len(ids) == 0 {
-			delete(c.known, sum)
-		} else {
-			c.known[sum] = ids
+	for id := range c.unused() {
+		c.forget(id)
+	}
+}
+
+func (c *Catalog) forget(id uint32) {
+	sum := c.chunks[id].sum
+	left := slices.DeleteFunc(c.known[sum], func(k uint32) bool { return k == id })
+	if len(left) == 0 {
+		delete(c.known, sum)
+	} else {
+		c.known[sum] = left
+	}
+}
+
+// unused goes through the chunks that no version has.
+func (c *Catalog) unused() iter.Seq2[uint32, *chunk] {
+	used := map[uint32]struct{}{}
+	for _, list := range c.files {
+		for _, v := range list {
+			for _, id := range v.chunks {
+				used[id] = struct{}{}
+			}
+		}
+	}
+	return func(yield func(uint32, *chunk) bool) {
+		for id, k := range c.chunks {
+			if _, ok := used[id]; !ok && !yield(id, k) {
+				return
+			}
 		}
 	}
 }

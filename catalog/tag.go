@@ -6,41 +6,52 @@ import (
 
 	"versions/api"
 	"versions/record"
+	"versions/store"
 )
 
-func (c *Catalog) addTag(r record.Tag) bool {
-	v, ok := c.version(r.Path, r.Number)
-	if !ok || !IsPath(r.Name) || c.HasTag(r.Name) {
+// Tag is a tag.
+type Tag struct {
+	At      store.Span // where its record stands now
+	version *Version   // that it holds
+}
+
+func (c *Catalog) addTag(at store.Span, r record.Tag) bool {
+	v := c.ids[r.Version]
+	if v == nil || v.gone || !IsPath(r.Name) || c.tags[r.Name] != nil {
 		return false
 	}
 	v.tags++
-	c.tags[r.Name] = api.Pin{Tag: r.Name, Path: r.Path, Version: r.Number}
+	c.tags[r.Name] = &Tag{at, v}
+	c.tagBytes += at.Size
 	return true
 }
 
-func (c *Catalog) removeTag(r record.Untag) bool {
-	pin := c.tags[r.Name]
-	v, ok := c.version(pin.Path, pin.Version)
-	if !ok {
-		return false
+// removeTag takes away a tag that is there.
+func (c *Catalog) removeTag(name string) {
+	t := c.tags[name]
+	t.version.tags--
+	c.tagBytes -= t.At.Size
+	delete(c.tags, name)
+}
+
+// FindTag finds a tag.
+func (c *Catalog) FindTag(name string) (*Tag, error) {
+	t := c.tags[name]
+	if t == nil {
+		return nil, api.ErrMissing
 	}
-	v.tags--
-	delete(c.tags, r.Name)
-	return true
-}
-
-// HasTag tells whether there is a tag of that name.
-func (c *Catalog) HasTag(name string) bool {
-	_, ok := c.tags[name]
-	return ok
+	return t, nil
 }
 
 // Tags are all tags, by their names.
 func (c *Catalog) Tags() []api.Pin {
 	var pins []api.Pin
-	for _, pin := range c.tags {
-		pins = append(pins, pin)
+	for name, t := range c.tags {
+		pins = append(pins, api.Pin{Tag: name, Path: t.version.path, Version: t.version.Number})
 	}
 	slices.SortFunc(pins, func(a, b api.Pin) int { return cmp.Compare(a.Tag, b.Tag) })
 	return pins
 }
+
+// TagBytes is how many bytes the records of all tags have together.
+func (c *Catalog) TagBytes() int { return c.tagBytes }

@@ -8,6 +8,7 @@ import (
 
 	"versions/api"
 	"versions/record"
+	"versions/store"
 )
 
 // MaxNumber is the greatest number that a version can have: the records have no room for more.
@@ -15,87 +16,99 @@ const MaxNumber = math.MaxInt32
 
 // Version is a version of a path.
 type Version struct {
+	At           store.Span // where its record stands now
+	ID           uint32     // the record's number
 	Number, Size int
+	path         string
 	chunks       []uint32
-	tags         int // how many hold it
+	tags         int  // how many hold it
+	gone         bool // whether just the record is there yet
 }
 
 // Held tells whether a tag holds the version.
-func (v Version) Held() bool { return v.tags > 0 }
+func (v *Version) Held() bool { return v.tags > 0 }
 
-func (c *Catalog) addVersion(r record.Version) bool {
+func (c *Catalog) addVersion(at store.Span, r record.Version) bool {
 	size := 0
 	for _, id := range r.Chunks {
-		if id >= c.NextChunk() {
+		k, ok := c.chunks[id]
+		if !ok {
 			return false
 		}
-		size += c.pieces[id].Size
+		size += k.bytes
 	}
-	if !IsPath(r.Path) || r.Number <= c.Latest(r.Path) || r.Number > MaxNumber || size > api.MaxContent {
+	if !IsPath(r.Path) || c.ids[r.ID] != nil || r.Number <= c.Latest(r.Path) || size > api.MaxContent {
 		return false
 	}
-	c.files[r.Path] = append(c.files[r.Path], Version{Number: r.Number, Size: size, chunks: r.Chunks})
+	v := &Version{At: at, ID: r.ID, Number: r.Number, Size: size, path: r.Path, chunks: r.Chunks}
+	c.files[r.Path] = append(c.files[r.Path], v)
+	c.ids[r.ID] = v
 	c.bytes += size
 	return true
 }
 
-func (c *Catalog) remove(r record.Delete) bool {
-	v, ok := c.version(r.Path, r.Number)
-	if !ok || v.Held() {
-		return false
+// removeVersion takes away a version whose record is there.
+func (c *Catalog) removeVersion(id uint32) {
+	c.drop(c.ids[id])
+	delete(c.ids, id)
+}
+
+// FreeVersion is the first number that no version's record has.
+func (c *Catalog) FreeVersion() uint32 {
+	var id uint32
+	for c.ids[id] != nil {
+		id++
 	}
-	c.drop(r.Path, func(v Version) bool { return v.Number == r.Number })
+	return id
+}
+
+// prune drops old versions. Their records are there yet.
+func (c *Catalog) prune(at store.Span, r record.Prune) bool {
+	for _, v := range c.Prunable(r.Path, r.Keep) {
+		c.drop(v)
+	}
+	c.prunes = append(c.prunes, at)
 	return true
 }
 
-func (c *Catalog) prune(r record.Prune) bool {
-	old := c.old(r.Path, r.Keep)
-	if len(old) == 0 {
-		return false
+// drop takes a version away from its path. A path without versions goes too: it is as one that never was.
+func (c *Catalog) drop(v *Version) {
+	if v.gone {
+		return
 	}
-	last := old[len(old)-1].Number
-	c.drop(r.Path, func(v Version) bool { return v.Number <= last && !v.Held() })
-	return true
-}
-
-// drop takes away those versions of a path of which gone says so. A path without versions goes too: it is as one that never was.
-func (c *Catalog) drop(path string, gone func(Version) bool) {
-	left := slices.DeleteFunc(c.files[path], func(v Version) bool {
-		if !gone(v) {
-			return false
-		}
-		c.bytes -= v.Size
-		return true
-	})
+	v.gone = true
+	c.bytes -= v.Size
+	left := slices.DeleteFunc(c.files[v.path], func(other *Version) bool { return other == v })
 	if len(left) == 0 {
-		delete(c.files, path)
+		delete(c.files, v.path)
 	} else {
-		c.files[path] = left
+		c.files[v.path] = left
 	}
 }
 
-// old are all versions of a path but the latest ones, of which keep are kept.
-func (c *Catalog) old(path string, keep int) []Version {
+// Prunable are those versions of a path that go, if the latest ones are kept, and those that tags hold.
+func (c *Catalog) Prunable(path string, keep int) []*Version {
 	list := c.files[path]
-	return list[:len(list)-min(max(keep, 0), len(list))]
-}
-
-// Prunable is how many versions of a path go, if the latest ones are kept, and those that tags hold.
-func (c *Catalog) Prunable(path string, keep int) (int, error) {
-	if c.Latest(path) == 0 {
-		return 0, api.ErrMissing
-	}
-	n := 0
-	for _, v := range c.old(path, keep) {
+	var old []*Version
+	for _, v := range list[:len(list)-min(max(keep, 0), len(list))] {
 		if !v.Held() {
-			n++
+			old = append(old, v)
 		}
 	}
-	return n, nil
+	return old
 }
 
 // Bytes is how many bytes all versions together have.
 func (c *Catalog) Bytes() int { return c.bytes }
+
+// Versions is how many there are.
+func (c *Catalog) Versions() int {
+	n := 0
+	for _, list := range c.files {
+		n += len(list)
+	}
+	return n
+}
 
 // Latest is the number of a path's latest version; 0, if there is none.
 func (c *Catalog) Latest(path string) int {
@@ -107,28 +120,19 @@ func (c *Catalog) Latest(path string) int {
 }
 
 // Find finds a version of a path; 0 stands for the latest one.
-func (c *Catalog) Find(path string, number int) (Version, error) {
+func (c *Catalog) Find(path string, number int) (*Version, error) {
+	list := c.files[path]
 	switch number {
 	case 0:
 		number = c.Latest(path)
 		fallthrough
 	default:
-		v, ok := c.version(path, number)
+		i, ok := slices.BinarySearchFunc(list, number, func(v *Version, n int) int { return cmp.Compare(v.Number, n) })
 		if !ok {
-			return Version{}, api.ErrMissing
+			return nil, api.ErrMissing
 		}
-		return *v, nil
+		return list[i], nil
 	}
-}
-
-// version finds the version of that very number.
-func (c *Catalog) version(path string, number int) (*Version, bool) {
-	list := c.files[path]
-	i, ok := slices.BinarySearchFunc(list, number, func(v Version, n int) int { return cmp.Compare(v.Number, n) })
-	if !ok {
-		return nil, false
-	}
-	return &list[i], true
 }
 
 // Numbers are the numbers of a path's versions, rising.

@@ -11,15 +11,6 @@ func Put(b []byte, n uint64) {
 	}
 }
 
-// Append appends a number of so many bytes.
-func Append(b []byte, n uint64, width int) []byte {
-	for range width {
-		b = append(b, byte(n))
-		n >>= 8
-	}
-	return b
-}
-
 // Number is the number that b is filled with.
 func Number(b []byte) uint64 {
 	var n uint64
@@ -27,6 +18,46 @@ func Number(b []byte) uint64 {
 		n = n<<8 | uint64(x)
 	}
 	return n
+}
+
+// A short number has 7 bits in each byte, the lowest ones first; all its bytes but the last one have the mark that there are more.
+const (
+	shortBits = 7
+	more      = 1 << shortBits
+	maxShort  = 5 // bytes
+)
+
+// AppendShort appends a number below 1<<35, in as few bytes as it needs.
+func AppendShort(b []byte, n uint64) []byte {
+	for ; n >= more; n >>= shortBits {
+		b = append(b, byte(n)|more)
+	}
+	return append(b, byte(n))
+}
+
+// ShortSize is how many bytes a number has, if it is appended so.
+func ShortSize(n uint64) int {
+	size := 1
+	for ; n >= more; n >>= shortBits {
+		size++
+	}
+	return size
+}
+
+// Short is the number that b begins with, and how many bytes it has there: 0, if there is none that AppendShort appends.
+func Short(b []byte) (uint64, int) {
+	var n uint64
+	for i, x := range b[:min(len(b), maxShort)] {
+		n |= uint64(x&^more) << (i * shortBits)
+		if x >= more {
+			continue
+		}
+		if ShortSize(n) != i+1 {
+			break
+		}
+		return n, i + 1
+	}
+	return 0, 0
 }
 
 // SumSize is how many bytes a sum has.

@@ -19,10 +19,6 @@ func TestNumbers(t *testing.T) {
 		{1<<64 - 1, 8, bytes.Repeat([]byte{255}, 8)},
 		{7, 0, nil},
 	} {
-		appended := Append([]byte("ahead"), c.n, c.width)
-		if !bytes.Equal(appended, append([]byte("ahead"), c.want...)) {
-			t.Errorf("Append of %d in %d bytes: %v, want %v behind ahead", c.n, c.width, appended, c.want)
-		}
 		filled := make([]byte, c.width)
 		Put(filled, c.n)
 		if !bytes.Equal(filled, c.want) {
@@ -34,6 +30,50 @@ func TestNumbers(t *testing.T) {
 		}
 		if got := Number(c.want); got != fits {
 			t.Errorf("Number of %v: %d, want %d", c.want, got, fits)
+		}
+	}
+}
+
+func TestShortNumbers(t *testing.T) {
+	for _, c := range []struct {
+		n    uint64
+		want []byte
+	}{
+		{0, []byte{0}},
+		{1, []byte{1}},
+		{127, []byte{127}},
+		{128, []byte{128, 1}},
+		{300, []byte{172, 2}},
+		{1<<14 - 1, []byte{255, 127}},
+		{1 << 14, []byte{128, 128, 1}},
+		{1<<21 - 1, []byte{255, 255, 127}},
+		{1<<31 - 1, []byte{255, 255, 255, 255, 7}},
+		{1<<35 - 1, []byte{255, 255, 255, 255, 127}},
+	} {
+		if got := AppendShort([]byte("ahead"), c.n); !bytes.Equal(got, append([]byte("ahead"), c.want...)) {
+			t.Errorf("AppendShort of %d: %v, want %v behind ahead", c.n, got, c.want)
+		}
+		if got := ShortSize(c.n); got != len(c.want) {
+			t.Errorf("ShortSize of %d: %d, want %d", c.n, got, len(c.want))
+		}
+		for _, behind := range [][]byte{nil, {0}, {1, 200}} {
+			if n, size := Short(append(bytes.Clone(c.want), behind...)); n != c.n || size != len(c.want) {
+				t.Errorf("Short of %v: %d, %d bytes, want %d", c.want, n, size, c.n)
+			}
+		}
+		if n, size := Short(c.want[:len(c.want)-1]); n != 0 || size != 0 {
+			t.Errorf("Short of %v, but for the last byte: %d, %d bytes", c.want, n, size)
+		}
+	}
+}
+
+// What is not as short as can be is none: so a number tells how many bytes it has.
+func TestShortOfWhatIsNone(t *testing.T) {
+	for _, b := range [][]byte{
+		nil, {}, {128}, {128, 0}, {128, 0, 1}, {255, 0}, {129, 128, 0}, {128, 128, 128, 128, 0}, {128, 128, 128, 128, 128, 1}, {255, 255, 255, 255, 255}, bytes.Repeat([]byte{255}, 99),
+	} {
+		if n, size := Short(b); n != 0 || size != 0 {
+			t.Errorf("Short of %v: %d, %d bytes", b, n, size)
 		}
 	}
 }

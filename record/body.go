@@ -1,33 +1,41 @@
 package record
 
-import "versions/pack"
+import (
+	"math"
+
+	"versions/pack"
+)
 
 // body is what stands behind a head, and is taken from it piece by piece.
 type body struct {
 	rest  []byte
-	short bool // whether more was asked for than there was
+	wrong bool // whether something was asked for that is not there
 }
 
-// take takes the next n bytes; none, if there are fewer.
-func (b *body) take(n int) []byte {
-	if n > len(b.rest) {
-		b.short = true
-		return nil
+func (b *body) number() int {
+	n, size := pack.Short(b.rest)
+	if size == 0 || n > math.MaxInt32 {
+		b.wrong = true
+		return 0
 	}
-	taken := b.rest[:n]
-	b.rest = b.rest[n:]
-	return taken
+	b.rest = b.rest[size:]
+	return int(n)
 }
 
-func (b *body) text() string { return string(b.take(int(pack.Number(b.take(lengthWidth))))) }
+func (b *body) id() uint32 { return uint32(b.number()) }
 
-func (b *body) number() int { return int(pack.Number(b.take(numberWidth))) }
-
-// numbers takes all that is left.
-func (b *body) numbers() []uint32 {
+// ids takes numbers, ahead of which stands how many there are.
+func (b *body) ids() []uint32 {
 	var all []uint32
-	for len(b.rest) > 0 && !b.short {
-		all = append(all, uint32(b.number()))
+	for n := b.number(); n > 0 && !b.wrong; n-- {
+		all = append(all, b.id())
 	}
 	return all
+}
+
+// text takes all that is left.
+func (b *body) text() string {
+	s, ok := textOf(b.rest)
+	b.wrong = b.wrong || !ok
+	return s
 }

@@ -1,4 +1,4 @@
-// Package record has the forms of what stands on the device: a change is some records, one behind the other.
+// Package record has the forms of what stands on the device: records, one behind the other.
 package record
 
 import (
@@ -12,135 +12,93 @@ import (
 type kind byte
 
 const (
-	// A change is filled up with bytes 0: so there is no record behind one of this kind.
-	kindNone kind = iota
-	kindChunk
+	kindChunk kind = iota
 	kindVersion
-	kindDelete
-	kindPrune
 	kindTag
-	kindUntag
+	kindPrune
+	kinds
 )
 
-// Widths of numbers, in bytes.
-const (
-	kindWidth   = 1
-	sizeWidth   = 2
-	lengthWidth = 1
-	numberWidth = 4
-	headSize    = kindWidth + sizeWidth
-)
-
-// Head is what each record begins with.
+// Head is what each record begins with: one short number.
 type Head struct {
 	kind kind
 	size int // how many bytes are behind the head
 }
 
+// code is the number that the head is.
+func (h Head) code() uint64 { return uint64(h.size)*uint64(kinds) + uint64(h.kind) }
+
 // Length is how many bytes the record has, with its head.
-func (h Head) Length() int { return headSize + h.size }
+func (h Head) Length() int { return pack.ShortSize(h.code()) + h.size }
 
 // Record is a record of any kind.
 type Record interface{ Length() int }
 
-// Chunk is a chunk that was not there before. Chunks are numbered from 0 on, as they come.
+// Chunk is a chunk. No two that are there at the same time have the same number; so it is with versions.
 type Chunk struct {
 	Head
+	ID   uint32
 	Data []byte
 }
 
 // Version is a version of a path, and the numbers of its chunks.
 type Version struct {
 	Head
-	Path   string
+	ID     uint32
 	Number int
 	Chunks []uint32
-}
-
-// Delete is a version that is there no more.
-type Delete struct {
-	Head
 	Path   string
-	Number int
-}
-
-// Prune tells that of a path's versions just the latest ones are there yet, and those that tags hold.
-type Prune struct {
-	Head
-	Path string
-	Keep int
 }
 
 // Tag is a tag, and the version that it holds.
 type Tag struct {
 	Head
-	Name, Path string
-	Number     int
+	Version uint32
+	Name    string
 }
 
-// Untag is a tag that is there no more.
-type Untag struct {
+// Prune tells that of the versions of a path that stand ahead of it just the latest ones are there yet, and those that tags hold.
+type Prune struct {
 	Head
-	Name string
+	Keep int
+	Path string
 }
 
 // AppendChunk appends a Chunk.
-func AppendChunk(b, data []byte) []byte {
-	b = appendHead(b, kindChunk, len(data))
-	return append(b, data...)
+func AppendChunk(b []byte, id uint32, data []byte) []byte {
+	return appendRecord(b, kindChunk, append(short(id), data...))
 }
 
 // AppendVersion appends a Version.
-func AppendVersion(b []byte, path string, number int, chunks []uint32) []byte {
-	b = appendHead(b, kindVersion, textSize(path)+numberWidth+numberWidth*len(chunks))
-	b = appendText(b, path)
-	b = appendNumber(b, number)
-	for _, id := range chunks {
-		b = pack.Append(b, uint64(id), numberWidth)
+func AppendVersion(b []byte, id uint32, path string, number int, chunks []uint32) []byte {
+	body := pack.AppendShort(short(id), uint64(number))
+	body = pack.AppendShort(body, uint64(len(chunks)))
+	for _, c := range chunks {
+		body = pack.AppendShort(body, uint64(c))
 	}
-	return b
+	return appendRecord(b, kindVersion, appendText(body, path))
 }
 
-// AppendDelete appends a Delete.
-func AppendDelete(b []byte, path string, number int) []byte {
-	b = appendHead(b, kindDelete, textSize(path)+numberWidth)
-	return appendNumber(appendText(b, path), number)
+// AppendTag appends a Tag.
+func AppendTag(b []byte, name string, version uint32) []byte {
+	return appendRecord(b, kindTag, appendText(short(version), name))
 }
 
 // AppendPrune appends a Prune.
 func AppendPrune(b []byte, path string, keep int) []byte {
-	b = appendHead(b, kindPrune, textSize(path)+numberWidth)
-	return appendNumber(appendText(b, path), keep)
+	return appendRecord(b, kindPrune, appendText(pack.AppendShort(nil, uint64(keep)), path))
 }
 
-// AppendTag appends a Tag.
-func AppendTag(b []byte, name, path string, number int) []byte {
-	b = appendHead(b, kindTag, textSize(name)+textSize(path)+numberWidth)
-	return appendNumber(appendText(appendText(b, name), path), number)
+func short(id uint32) []byte { return pack.AppendShort(nil, uint64(id)) }
+
+func appendRecord(b []byte, k kind, body []byte) []byte {
+	return append(pack.AppendShort(b, Head{k, len(body)}.code()), body...)
 }
 
-// AppendUntag appends an Untag.
-func AppendUntag(b []byte, name string) []byte {
-	return appendText(appendHead(b, kindUntag, textSize(name)), name)
-}
-
-func appendHead(b []byte, k kind, size int) []byte {
-	return pack.Append(pack.Append(b, uint64(k), kindWidth), uint64(size), sizeWidth)
-}
-
-func appendText(b []byte, s string) []byte {
-	return append(pack.Append(b, uint64(len(s)), lengthWidth), s...)
-}
-
-func appendNumber(b []byte, n int) []byte { return pack.Append(b, uint64(n), numberWidth) }
-
-// textSize is how many bytes a text has in a record.
-func textSize(s string) int { return lengthWidth + len(s) }
-
-// All goes through the records of a change. A Chunk's data is a piece of the change; all else is fresh. At an error it ends.
-func All(change []byte) iter.Seq2[Record, error] {
+// All goes through records. A Chunk's data is a piece of b; all else is fresh. At an error it ends.
+func All(b []byte) iter.Seq2[Record, error] {
 	return func(yield func(Record, error) bool) {
-		for rest := change; len(rest) > 0 && kind(rest[0]) != kindNone; {
+		for rest := b; len(rest) > 0; {
 			r, err := first(rest)
 			if !yield(r, err) || err != nil {
 				return
@@ -152,36 +110,30 @@ func All(change []byte) iter.Seq2[Record, error] {
 
 // first is the first record of b.
 func first(b []byte) (Record, error) {
-	if len(b) < headSize {
+	code, n := pack.Short(b)
+	h := Head{kind(code % uint64(kinds)), int(code / uint64(kinds))}
+	if n == 0 || len(b) < h.Length() {
 		return nil, api.ErrCorrupt
 	}
-	h := Head{kind(b[0]), int(pack.Number(b[kindWidth:headSize]))}
-	if len(b) < h.Length() {
-		return nil, api.ErrCorrupt
-	}
-	rest := body{rest: b[headSize:h.Length()]}
+	rest := body{rest: b[n:h.Length()]}
 	r := recordOf(h, &rest)
-	if r == nil || rest.short || len(rest.rest) > 0 {
+	if r == nil || rest.wrong {
 		return nil, api.ErrCorrupt
 	}
 	return r, nil
 }
 
-// recordOf takes the record with that head from its body; nil, if there is none of that kind.
+// recordOf takes the record with that head from its body; what comes last in it is all that is left.
 func recordOf(h Head, b *body) Record {
 	switch h.kind {
 	case kindChunk:
-		return Chunk{h, b.take(h.size)}
+		return Chunk{h, b.id(), b.rest}
 	case kindVersion:
-		return Version{h, b.text(), b.number(), b.numbers()}
-	case kindDelete:
-		return Delete{h, b.text(), b.number()}
-	case kindPrune:
-		return Prune{h, b.text(), b.number()}
+		return Version{h, b.id(), b.number(), b.ids(), b.text()}
 	case kindTag:
-		return Tag{h, b.text(), b.text(), b.number()}
-	case kindUntag:
-		return Untag{h, b.text()}
+		return Tag{h, b.id(), b.text()}
+	case kindPrune:
+		return Prune{h, b.number(), b.text()}
 	}
 	return nil
 }

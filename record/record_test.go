@@ -9,9 +9,9 @@ import (
 	"versions/api"
 )
 
-// read goes through a change to its end.
-func read(change []byte) (records []Record, err error) {
-	for r, e := range All(change) {
+// read goes through records to their end.
+func read(b []byte) (records []Record, err error) {
+	for r, e := range All(b) {
 		if e != nil {
 			return records, e
 		}
@@ -20,68 +20,68 @@ func read(change []byte) (records []Record, err error) {
 	return records, nil
 }
 
-// sample is a change with records of all kinds, and these records.
+// sample is records of all kinds, as bytes and as they are.
 func sample() ([]byte, []Record) {
 	long := bytes.Repeat([]byte{0, 1}, api.MaxChunk/2)
-	change := AppendChunk(nil, []byte("x"))
-	change = AppendChunk(change, long)
-	change = AppendVersion(change, "abcdefghij/klmnopqrs", 1<<31-1, []uint32{0, 1, 1<<32 - 1})
-	change = AppendVersion(change, "a", 1, nil)
-	change = AppendDelete(change, "a/b", 300)
-	change = AppendPrune(change, "a/b", 0)
-	change = AppendTag(change, "abcdefghij/klmnopqrs", "a", 1<<31-1)
-	change = AppendUntag(change, "t")
-	return change, []Record{
-		Chunk{Head{kindChunk, 1}, []byte("x")},
-		Chunk{Head{kindChunk, 256}, long},
-		Version{Head{kindVersion, 37}, "abcdefghij/klmnopqrs", 1<<31 - 1, []uint32{0, 1, 1<<32 - 1}},
-		Version{Head{kindVersion, 6}, "a", 1, nil},
-		Delete{Head{kindDelete, 8}, "a/b", 300},
-		Prune{Head{kindPrune, 8}, "a/b", 0},
-		Tag{Head{kindTag, 27}, "abcdefghij/klmnopqrs", "a", 1<<31 - 1},
-		Untag{Head{kindUntag, 2}, "t"},
+	b := AppendChunk(nil, 0, []byte("x"))
+	b = AppendChunk(b, 1<<31-1, long)
+	b = AppendVersion(b, 300, "abcdefghij/klmnopqrs", 1<<31-1, []uint32{0, 128, 1<<31 - 1})
+	b = AppendVersion(b, 0, "a", 1, nil)
+	b = AppendTag(b, "abcdefghij/klmnopqrs", 300)
+	b = AppendTag(b, "t", 0)
+	b = AppendPrune(b, "a/b", 0)
+	b = AppendPrune(b, "_", 1<<31-1)
+	return b, []Record{
+		Chunk{Head{kindChunk, 2}, 0, []byte("x")},
+		Chunk{Head{kindChunk, 261}, 1<<31 - 1, long},
+		Version{Head{kindVersion, 29}, 300, 1<<31 - 1, []uint32{0, 128, 1<<31 - 1}, "abcdefghij/klmnopqrs"},
+		Version{Head{kindVersion, 4}, 0, 1, nil, "a"},
+		Tag{Head{kindTag, 15}, 300, "abcdefghij/klmnopqrs"},
+		Tag{Head{kindTag, 2}, 0, "t"},
+		Prune{Head{kindPrune, 3}, 0, "a/b"},
+		Prune{Head{kindPrune, 6}, 1<<31 - 1, "_"},
 	}
 }
 
 func TestAllIsWhatWasAppended(t *testing.T) {
-	change, want := sample()
-	got, err := read(change)
+	b, want := sample()
+	got, err := read(b)
 	if err != nil || !reflect.DeepEqual(got, want) {
 		t.Errorf("%v, %v; want %v", got, err, want)
 	}
-}
-
-// The head's method is each record's own.
-func TestLengths(t *testing.T) {
-	change, records := sample()
-	sum := 0
-	for _, r := range records {
-		sum += r.Length()
-	}
-	if sum != len(change) {
-		t.Errorf("the records have %d bytes together, the change %d", sum, len(change))
-	}
-}
-
-func TestAllEndsAtBytes0(t *testing.T) {
-	change, want := sample()
-	for _, n := range []int{1, 2, 3, 200} {
-		got, err := read(append(bytes.Clone(change), make([]byte, n)...))
-		if err != nil || !reflect.DeepEqual(got, want) {
-			t.Errorf("with %d bytes 0 behind it: %v, %v", n, got, err)
-		}
-	}
-	for _, none := range [][]byte{nil, {}, {0}, make([]byte, 115)} {
+	for _, none := range [][]byte{nil, {}} {
 		if got, err := read(none); got != nil || err != nil {
 			t.Errorf("nothing: %v, %v", got, err)
 		}
 	}
 }
 
+// The head's method is each record's own.
+func TestLengths(t *testing.T) {
+	b, records := sample()
+	sum := 0
+	for _, r := range records {
+		sum += r.Length()
+	}
+	if sum != len(b) {
+		t.Errorf("the records have %d bytes together, want %d", sum, len(b))
+	}
+}
+
+// P12 leans on it: a small chunk has little beside its bytes, and a tag's record is far shorter than its name and its path.
+func TestSizes(t *testing.T) {
+	if n := len(AppendChunk(nil, 1<<14-1, make([]byte, api.MinChunk))); n != api.MinChunk+3 {
+		t.Errorf("a chunk of %d bytes has %d", api.MinChunk, n)
+	}
+	if n := len(AppendTag(nil, "////////////////////", 1<<14-1)); n != 17 {
+		t.Errorf("a tag has %d bytes", n)
+	}
+}
+
 func TestAllCanBeLeft(t *testing.T) {
-	change, _ := sample()
-	for r, err := range All(change) {
-		if r.Length() != 4 || err != nil {
+	b, _ := sample()
+	for r, err := range All(b) {
+		if r.Length() != 3 || err != nil {
 			t.Errorf("the first record has %d bytes, %v", r.Length(), err)
 		}
 		break
@@ -89,10 +89,10 @@ func TestAllCanBeLeft(t *testing.T) {
 }
 
 // P1: what no archive wrote is told, not read.
-func TestAllOfWhatIsNoChange(t *testing.T) {
-	change, records := sample()
-	for n := range len(change) {
-		got, err := read(change[:n])
+func TestAllOfWhatIsNoRecord(t *testing.T) {
+	b, records := sample()
+	for n := range len(b) {
+		got, err := read(b[:n])
 		whole := 0
 		for _, r := range got {
 			whole += r.Length()
@@ -104,56 +104,78 @@ func TestAllOfWhatIsNoChange(t *testing.T) {
 	if len(records) != 8 {
 		t.Fatal("the sample is another one")
 	}
-	for what, change := range map[string][]byte{
-		"a kind that is none":         {99, 0, 0},
-		"a version without a path":    {byte(kindVersion), 0, 0},
-		"a path that goes beyond it":  {byte(kindVersion), 3, 0, 200, 'a', 'b'},
-		"a version without a number":  {byte(kindVersion), 4, 0, 1, 'a', 1, 0},
-		"half the number of a chunk":  {byte(kindVersion), 8, 0, 1, 'a', 1, 0, 0, 0, 7, 7},
-		"a delete without a number":   {byte(kindDelete), 2, 0, 1, 'a'},
-		"a delete with more":          {byte(kindDelete), 7, 0, 1, 'a', 1, 0, 0, 0, 0},
-		"a prune without a number":    {byte(kindPrune), 5, 0, 1, 'a', 1, 0, 0},
-		"a prune with more":           {byte(kindPrune), 7, 0, 1, 'a', 1, 0, 0, 0, 0},
-		"a tag without a path":        {byte(kindTag), 2, 0, 1, 't'},
-		"a tag without a number":      {byte(kindTag), 4, 0, 1, 't', 1, 'a'},
-		"a tag with more":             {byte(kindTag), 9, 0, 1, 't', 1, 'a', 1, 0, 0, 0, 0},
-		"an untag without a name":     {byte(kindUntag), 0, 0},
-		"an untag with more":          {byte(kindUntag), 3, 0, 1, 't', 0},
-		"a record that is cut off":    {byte(kindChunk), 3, 0, 'a', 'b'},
-		"a head that is cut off":      {byte(kindChunk), 3},
-		"a length of the high byte 1": {byte(kindChunk), 0, 1, 'a'},
+	head := func(k kind, body ...byte) []byte { return appendRecord(nil, k, body) }
+	for what, b := range map[string][]byte{
+		"a chunk without a number":             head(kindChunk),
+		"half the number of a chunk":           head(kindChunk, 128),
+		"a number that is longer than needed":  head(kindChunk, 129, 0, 'a'),
+		"a number that is too great":           head(kindChunk, 128, 128, 128, 128, 8, 'a'),
+		"a version without a number":           head(kindVersion),
+		"a version that has just one":          head(kindVersion, 1),
+		"a version without chunks":             head(kindVersion, 1, 1),
+		"fewer chunks than there ought to be":  head(kindVersion, 1, 1, 3, 7, 7),
+		"far fewer chunks":                     head(kindVersion, 1, 1, 255, 255, 255, 255, 7, 7),
+		"a version whose path ends with a 0":   head(kindVersion, 1, 1, 0, 1, 0),
+		"a tag without a version":              head(kindTag),
+		"a tag with a digit 0":                 head(kindTag, 1, byte(base)),
+		"a tag that is too long":               head(kindTag, append(make([]byte, 15), 1)...),
+		"a tag of more letters than there are": head(kindTag, append([]byte{1}, bytes.Repeat([]byte{255}, 14)...)...),
+		"a prune without a number":             head(kindPrune),
+		"a record that is cut off":             head(kindChunk, 1, 2, 3)[:3],
+		"a head that is cut off":               {128},
+		"a head that is longer than needed":    {132, 0, 1},
 	} {
-		if got, err := read(change); got != nil || !errors.Is(err, api.ErrCorrupt) {
+		if got, err := read(b); got != nil || !errors.Is(err, api.ErrCorrupt) {
 			t.Errorf("%s: %v, %v", what, got, err)
 		}
 	}
 }
 
-// But for a Chunk's data all of a record is its own: the change is a buffer that is used again.
+// But for a Chunk's data all of a record is its own: the bytes are those of a buffer that is used again.
 func TestRecordsAreFresh(t *testing.T) {
-	change := AppendVersion(nil, "path", 2, []uint32{5})
-	change = AppendTag(change, "name", "path", 2)
-	got, err := read(change)
-	clear(change)
-	want := []Record{Version{Head{kindVersion, 13}, "path", 2, []uint32{5}}, Tag{Head{kindTag, 14}, "name", "path", 2}}
+	b := AppendVersion(nil, 1, "path", 2, []uint32{5})
+	b = AppendTag(b, "name", 1)
+	got, err := read(b)
+	clear(b)
+	want := []Record{Version{Head{kindVersion, 7}, 1, 2, []uint32{5}, "path"}, Tag{Head{kindTag, 4}, 1, "name"}}
 	if err != nil || !reflect.DeepEqual(got, want) {
-		t.Errorf("%v, %v", got, err)
+		t.Errorf("%v, %v, want %v", got, err, want)
 	}
 }
 
 func FuzzAll(f *testing.F) {
-	change, _ := sample()
-	f.Add(change)
+	b, _ := sample()
+	f.Add(b)
 	f.Add([]byte{byte(kindVersion), 4, 0, 1, 'a', 1, 0})
-	f.Fuzz(func(t *testing.T, change []byte) {
-		records, err := read(change)
+	f.Fuzz(func(t *testing.T, b []byte) {
+		records, err := read(b)
 		whole := 0
 		for _, r := range records {
 			whole += r.Length()
 		}
-		rest := change[whole:]
-		if err == nil && len(rest) > 0 && rest[0] != 0 {
-			t.Errorf("%d bytes of %d read, and no error", whole, len(change))
+		if (err == nil) != (whole == len(b)) {
+			t.Errorf("%d bytes of %d read, %v", whole, len(b), err)
+		}
+		if again := appended(records); !bytes.Equal(again, b[:whole]) {
+			t.Errorf("%v, appended again: %v, want %v", records, again, b[:whole])
 		}
 	})
+}
+
+// appended appends records again.
+func appended(records []Record) []byte {
+	var b []byte
+	for _, r := range records {
+		switch r := r.(type) {
+		case Chunk:
+			b = AppendChunk(b, r.ID, r.Data)
+		case Version:
+			b = AppendVersion(b, r.ID, r.Path, r.Number, r.Chunks)
+		case Tag:
+			b = AppendTag(b, r.Name, r.Version)
+		case Prune:
+			b = AppendPrune(b, r.Path, r.Keep)
+		}
+	}
+	return b
 }

@@ -22,19 +22,19 @@ type addition struct {
 	change  []byte
 	ids     []uint32 // of the content's chunks
 	fresh   map[pack.Sum][]fresh
-	next    uint32 // the number of the next fresh chunk
+	next    uint32 // the first number that the next fresh chunk may have
 }
 
 // adding drafts the change that adds a version: its chunks that are not there, and the version itself.
 func (a *Archive) adding(path string, number int, content []byte) draft {
 	return func(buffer []byte) ([]byte, error) {
-		n := addition{archive: a, change: buffer, fresh: map[pack.Sum][]fresh{}, next: a.catalog.NextChunk()}
+		n := addition{archive: a, change: buffer, fresh: map[pack.Sum][]fresh{}}
 		for c := range chunk.All(content) {
 			if err := n.add(c); err != nil {
 				return n.change, err
 			}
 		}
-		return record.AppendVersion(n.change, path, number, n.ids), nil
+		return record.AppendVersion(n.change, a.catalog.FreeVersion(), path, number, n.ids), nil
 	}
 }
 
@@ -59,10 +59,10 @@ func (n *addition) take(sum pack.Sum, data []byte) uint32 {
 			return f.id
 		}
 	}
-	f := fresh{n.next, data}
-	n.next++
+	f := fresh{n.archive.catalog.FreeChunk(n.next), data}
+	n.next = f.id + 1
 	n.fresh[sum] = append(n.fresh[sum], f)
-	n.change = record.AppendChunk(n.change, data)
+	n.change = record.AppendChunk(n.change, f.id, data)
 	return f.id
 }
 
@@ -75,7 +75,7 @@ func (a *Archive) stored(sum pack.Sum, data []byte) (uint32, bool, error) {
 			continue
 		}
 		buffer = slices.Grow(buffer[:0], piece.Size)[:piece.Size]
-		if err := a.log.Read(piece.Place, buffer); err != nil {
+		if err := a.store.Read(piece.Place, buffer); err != nil {
 			return 0, false, err
 		}
 		if bytes.Equal(buffer, data) {

@@ -31,7 +31,7 @@ func script() []op {
 	}
 }
 
-// churn is a session that fills the half of a small device, so that what is there is written anew, more than once.
+// churn is a session that fills a small device, so that room must be made, more than once.
 func churn() []op {
 	var ops []op
 	for i := range 9 {
@@ -70,8 +70,8 @@ func play(a *versions.Archive, m *model, ops []op) (states []string, safe int, e
 
 var keeps = []uint64{0, 1<<64 - 1, 0x5555555555555555, 0xaaaaaaaaaaaaaaaa, 3, 0xfffffffffffffff0, 0x9249249249249249}
 
-// smallDevice has room for the script, but not for the churn behind it without writing anew.
-func smallDevice() *api.Device { return api.NewDevice(56) }
+// smallDevice has room for the script, but not for the churn behind it, unless room is made.
+func smallDevice() *api.Device { return api.NewDevice(28) }
 
 // cutAll plays over copies of a device, with the power cut at each operation, from the first one on by this step, and hands on what a crash leaves. The device has what the model has.
 func cutAll(t *testing.T, what string, before *api.Device, ops []op, first, step int, keeps []uint64, then func(what string, d *api.Device)) {
@@ -146,7 +146,7 @@ func TestCrashes(t *testing.T) {
 	cutAll(t, "script", smallDevice(), script(), 0, 1, keeps, ignore)
 }
 
-// P13: likewise while what is there is written anew.
+// P13: likewise while room is made.
 func TestCrashesOfChurn(t *testing.T) {
 	cutAll(t, "churn", played(t, smallDevice(), script()), churn(), 0, 1, keeps, ignore)
 }
@@ -325,11 +325,12 @@ func TestFlipWhileOpen(t *testing.T) {
 	d := api.NewDevice(60)
 	a := opened(t, d, plenty)
 	expectPut(t, a, "a", noise(1, 50), 1)
-	d.Flip(2*api.SectorSize*8 + 500)
+	d.Flip(4*api.SectorSize*8 + 100)
 	expectNoGet(t, a, "a", 1, api.ErrCorrupt)
 	expectNoRead(t, a, "a", 1, 0, 5, api.ErrCorrupt)
 	expectNoPut(t, a, "b", noise(1, 50), api.ErrCorrupt)
-	expectError(t, "Collect", a.Collect(), api.ErrCorrupt)
+	expectDelete(t, a, "a", 1, api.ErrCorrupt)
+	expectTag(t, a, "t", "a", 1, api.ErrCorrupt)
 	expectVersions(t, a, "a", 1)
 	expectStored(t, "as it was", a, 1, 50)
 }

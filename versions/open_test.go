@@ -3,11 +3,12 @@ package versions_test
 import (
 	"math"
 	"math/rand"
+	"slices"
 	"testing"
 
 	"versions/api"
-	"versions/journal"
 	"versions/record"
+	"versions/store"
 	"versions/versions"
 )
 
@@ -180,39 +181,39 @@ func TestOpenOfShuffledSectors(t *testing.T) {
 	}
 }
 
-// written is a device with a change of these bytes on it, whole and safe.
-func written(t testing.TB, change []byte) *api.Device {
+// written is a device with records of these bytes on it.
+func written(t testing.TB, records []byte) *api.Device {
 	t.Helper()
 	d := api.NewDevice(200)
-	j, err := journal.Open(d, func(int, []byte) error { return nil })
+	s, _, err := store.Open(d)
 	if err != nil {
 		t.Fatal(err)
 	}
-	j.Append(change, 0)
-	j.Sync()
+	s.Append(records, 0)
 	return d
 }
 
-// P1: changes that have their sums, but that no archive wrote.
+// P1: records that have their sums, but that no archive wrote.
 func FuzzOpen(f *testing.F) {
-	change := record.AppendChunk(nil, []byte("abc"))
-	change = record.AppendVersion(change, "p", 1, []uint32{0, 0})
-	f.Add(change)
-	f.Add(record.AppendVersion(change, "p", math.MaxInt32, []uint32{0, 0}))
-	f.Add(record.AppendVersion(change, "p", 1, nil))
+	records := record.AppendChunk(nil, 7, []byte("abc"))
+	records = record.AppendVersion(records, 0, "p", 1, []uint32{7, 7})
+	f.Add(slices.Clone(records))
+	f.Add(record.AppendVersion(slices.Clone(records), 3, "p", math.MaxInt32, []uint32{7}))
+	f.Add(record.AppendVersion(slices.Clone(records), 0, "p", 1, nil))
 	f.Add(noise(3, 100))
-	change = record.AppendTag(record.AppendVersion(change, "p", 2, nil), "t", "p", 1)
-	f.Add(change)
-	f.Add(record.AppendPrune(change, "p", 0))
-	f.Add(record.AppendDelete(record.AppendUntag(change, "t"), "p", 1))
-	f.Fuzz(func(t *testing.T, change []byte) {
-		expectOpenEnds(t, "any change", written(t, change))
+	records = record.AppendTag(record.AppendVersion(records, 2, "p", 2, nil), "t", 0)
+	f.Add(slices.Clone(records))
+	records = record.AppendPrune(records, "p", 0)
+	f.Add(slices.Clone(records))
+	f.Add(record.AppendPrune(record.AppendVersion(records, 1, "p", 3, nil), "p", 1))
+	f.Fuzz(func(t *testing.T, records []byte) {
+		expectOpenEnds(t, "any records", written(t, records))
 	})
 }
 
 // P1, P5: behind the greatest number that there is room for there is none.
 func TestPutBehindTheGreatestNumber(t *testing.T) {
-	a := opened(t, written(t, record.AppendVersion(nil, "p", math.MaxInt32-1, nil)), plenty)
+	a := opened(t, written(t, record.AppendVersion(nil, 0, "p", math.MaxInt32-1, nil)), plenty)
 	expectPut(t, a, "p", []byte("x"), math.MaxInt32)
 	expectNoPut(t, a, "p", []byte("x"), api.ErrFull)
 	expectVersions(t, a, "p", math.MaxInt32-1, math.MaxInt32)

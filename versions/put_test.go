@@ -124,6 +124,28 @@ func sameSum(t *testing.T) ([]byte, []byte) {
 	return nil, nil
 }
 
+// Chunks whose sums are the same may have other lengths too.
+func TestPutOfSameSumsOfOtherLengths(t *testing.T) {
+	shorter := map[[4]byte][]byte{}
+	for seed := range uint32(1 << 17) {
+		shorter[catalog.SumOf(noise(seed, 5))] = noise(seed, 5)
+	}
+	for seed := uint32(0); ; seed++ {
+		y := noise(seed, 6)
+		x, ok := shorter[catalog.SumOf(y)]
+		if !ok {
+			continue
+		}
+		a := fresh(t)
+		for i, c := range [][]byte{x, y, x, y} {
+			expectPut(t, a, "a", c, i+1)
+			expectGet(t, a, "a", i+1, c)
+		}
+		expectStored(t, "two chunks", a, 2, 11)
+		return
+	}
+}
+
 // Chunks whose sums are the same are told apart by their bytes: on the device, and within a content.
 func TestPutOfSameSums(t *testing.T) {
 	x, y := sameSum(t)

@@ -3,9 +3,12 @@ package versions_test
 import (
 	"fmt"
 	"math/rand"
+	"slices"
 	"testing"
 
 	"versions/api"
+	"versions/record"
+	"versions/store"
 	"versions/versions"
 )
 
@@ -82,6 +85,55 @@ func TestWithoutRoom(t *testing.T) {
 	}
 }
 
+// packed is a device that has no room at all, as no archive leaves one: two versions, of which a tag holds one, a chunk that no version has, and tags in all pages that there are.
+func packed(t testing.TB) *api.Device {
+	t.Helper()
+	d := api.NewDevice(16)
+	s, _, err := store.Open(d)
+	if err != nil {
+		t.Fatal(err)
+	}
+	records := record.AppendChunk(nil, 0, noise(1, 50))
+	records = record.AppendVersion(records, 0, "a", 1, []uint32{0})
+	records = record.AppendVersion(records, 1, "a", 2, []uint32{0, 0})
+	records = record.AppendTag(records, "t", 1)
+	for i := 0; ; i++ {
+		more := record.AppendTag(slices.Clone(records), tagName(i), 1)
+		if len(more) > s.Most(0) {
+			break
+		}
+		records = more
+	}
+	// The last bytes are those of a chunk.
+	records = record.AppendChunk(records, 1, noise(2, s.Most(0)-len(records)-2))
+	if err := s.Append(records, 0); err != nil || s.Size() != s.Most(0) {
+		t.Fatalf("%d bytes, %v", s.Size(), err)
+	}
+	return d
+}
+
+// P12: each call that P12 names answers ErrFull, behind which all is as it was.
+func TestWithoutAnyRoom(t *testing.T) {
+	d := packed(t)
+	a := opened(t, d, plenty)
+	was := beforeOf(t, a)
+	for _, o := range []op{
+		{call: "Put", path: "b"}, {call: "Tag", name: "u", path: "a"}, {call: "Untag", name: "t"}, {call: "Delete", path: "a", number: 1}, {call: "Prune", path: "a"}, {call: "Collect"},
+	} {
+		for range 2 {
+			n, err := o.on(a)
+			if n != 0 {
+				t.Errorf("%v: %d beside %v", o, n, err)
+			}
+			expectError(t, o.String(), err, api.ErrFull)
+			was.expect(t, o.String(), a)
+			was.expect(t, o.String()+", opened", opened(t, d.Copy(), plenty))
+		}
+	}
+	expectError(t, "Sync", a.Sync(), api.OK)
+	was.expect(t, "opened again", reopened(t, a, d, plenty))
+}
+
 // However full the device is, all can be taken away again; and then there is room.
 func TestTakingAwayFromAFullDevice(t *testing.T) {
 	for _, sectors := range []int{16, 17, 40, 100} {
@@ -113,7 +165,7 @@ func TestTakingAwayFromAFullDevice(t *testing.T) {
 
 // P10, P12: while there is no room, chunks that no version has stay, until Collect.
 func TestWithoutRoomNothingIsFreed(t *testing.T) {
-	d := api.NewDevice(100)
+	d := api.NewDevice(60)
 	a := opened(t, d, plenty)
 	for i := range 4 {
 		expectPut(t, a, "a", noise(uint32(i), 900), i+1)

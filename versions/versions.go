@@ -5,9 +5,9 @@ import (
 	"versions/api"
 	"versions/catalog"
 	"versions/chunk"
-	"versions/journal"
 	"versions/record"
 	"versions/spare"
+	"versions/store"
 )
 
 // Cuts tells the lengths of a content's chunks (P3).
@@ -24,9 +24,10 @@ const spares = 2
 
 // Archive has versions of files. One that is closed has nothing.
 type Archive struct {
-	log     *journal.Journal
+	store   *store.Store
 	catalog *catalog.Catalog
 	spare   spare.Buffers
+	account account
 	quota   int
 }
 
@@ -35,19 +36,24 @@ func Open(d *api.Device, quota int) (*Archive, error) {
 	if d == nil || d.Sectors() < api.MinSectors {
 		return nil, api.ErrDevice
 	}
-	c := catalog.New()
-	log, err := journal.Open(d, c.Apply)
+	s, records, err := store.Open(d)
 	if err != nil {
+		return nil, err
+	}
+	c := catalog.New()
+	if err := c.Apply(0, records); err != nil {
 		return nil, err
 	}
 	// What no version has is free from here on: it is not counted as what may be kept (P12).
 	c.Forget()
-	return &Archive{log: log, catalog: c, spare: spare.New(spares), quota: max(quota, 0)}, nil
+	a := &Archive{store: s, catalog: c, spare: spare.New(spares), account: accountOf(d), quota: max(quota, 0)}
+	a.account.begin(c)
+	return a, nil
 }
 
 // usable answers ErrClosed of an archive that is closed.
 func (a *Archive) usable() error {
-	if a.log == nil {
+	if a.store == nil {
 		return api.ErrClosed
 	}
 	return nil
@@ -66,6 +72,7 @@ func (a *Archive) usableAt(path string) error {
 
 // Put adds a version (P5).
 func (a *Archive) Put(path string, content []byte) (int, error) {
+	a.account.take(len(content))
 	if err := a.usableAt(path); err != nil {
 		return 0, err
 	}
@@ -79,7 +86,7 @@ func (a *Archive) Put(path string, content []byte) (int, error) {
 	if number > catalog.MaxNumber {
 		return 0, api.ErrFull
 	}
-	if err := a.grow(a.adding(path, number, content)); err != nil {
+	if err := a.append(a.adding(path, number, content), leaveGrown); err != nil {
 		return 0, err
 	}
 	return number, nil
@@ -107,15 +114,15 @@ func (a *Archive) ReadAt(path string, version, at, n int) ([]byte, error) {
 }
 
 // find finds a version; 0 stands for the latest one.
-func (a *Archive) find(path string, version int) (catalog.Version, error) {
+func (a *Archive) find(path string, version int) (*catalog.Version, error) {
 	if err := a.usableAt(path); err != nil {
-		return catalog.Version{}, err
+		return nil, err
 	}
 	return a.catalog.Find(path, version)
 }
 
 // read reads n bytes of a version, which are there, from the chunks that have them.
-func (a *Archive) read(v catalog.Version, at, n int) ([]byte, error) {
+func (a *Archive) read(v *catalog.Version, at, n int) ([]byte, error) {
 	content := make([]byte, n)
 	rest := content
 	for piece := range a.catalog.Pieces(v) {
@@ -124,7 +131,7 @@ func (a *Archive) read(v catalog.Version, at, n int) ([]byte, error) {
 			continue
 		}
 		part := rest[:min(piece.Size-at, len(rest))]
-		if err := a.log.Read(piece.Place+at, part); err != nil {
+		if err := a.store.Read(piece.Place+at, part); err != nil {
 			return nil, err
 		}
 		rest, at = rest[len(part):], 0
@@ -150,6 +157,7 @@ func (a *Archive) List(prefix string) ([]api.Entry, error) {
 
 // Delete removes a version (P8).
 func (a *Archive) Delete(path string, version int) error {
+	a.account.take(0)
 	v, err := a.find(path, version)
 	if err != nil {
 		return err
@@ -157,24 +165,26 @@ func (a *Archive) Delete(path string, version int) error {
 	if v.Held() {
 		return api.ErrPinned
 	}
-	return a.shrink(func(b []byte) ([]byte, error) { return record.AppendDelete(b, path, v.Number), nil })
+	return a.remove(&v.At)
 }
 
 // Prune keeps the latest versions of a path (P8).
 func (a *Archive) Prune(path string, keep int) (int, error) {
+	a.account.take(0)
 	if err := a.usableAt(path); err != nil {
 		return 0, err
 	}
-	keep = max(keep, 0)
-	n, err := a.catalog.Prunable(path, keep)
+	numbers, err := a.catalog.Numbers(path)
 	if err != nil {
 		return 0, err
 	}
+	keep = min(max(keep, 0), len(numbers))
+	n := len(a.catalog.Prunable(path, keep))
 	if n == 0 {
 		// Nothing is to be written; but without power that is refused too.
-		return 0, a.log.Fault()
+		return 0, a.store.Fault()
 	}
-	err = a.shrink(func(b []byte) ([]byte, error) { return record.AppendPrune(b, path, keep), nil })
+	err = a.append(func(b []byte) ([]byte, error) { return record.AppendPrune(b, path, keep), nil }, leavePruned)
 	if err != nil {
 		return 0, err
 	}
@@ -183,6 +193,7 @@ func (a *Archive) Prune(path string, keep int) (int, error) {
 
 // Tag holds a version by a name (P9).
 func (a *Archive) Tag(name, path string, version int) error {
+	a.account.take(0)
 	if err := a.usableAt(name); err != nil {
 		return err
 	}
@@ -190,21 +201,23 @@ func (a *Archive) Tag(name, path string, version int) error {
 	if err != nil {
 		return err
 	}
-	if a.catalog.HasTag(name) {
+	if _, err := a.catalog.FindTag(name); err == nil {
 		return api.ErrExists
 	}
-	return a.grow(func(b []byte) ([]byte, error) { return record.AppendTag(b, name, path, v.Number), nil })
+	return a.append(a.tagging(name, v.ID), leaveGrown)
 }
 
 // Untag lets it go (P9).
 func (a *Archive) Untag(name string) error {
+	a.account.take(0)
 	if err := a.usableAt(name); err != nil {
 		return err
 	}
-	if !a.catalog.HasTag(name) {
-		return api.ErrMissing
+	t, err := a.catalog.FindTag(name)
+	if err != nil {
+		return err
 	}
-	return a.shrink(func(b []byte) ([]byte, error) { return record.AppendUntag(b, name), nil })
+	return a.remove(&t.At)
 }
 
 // Tags tells all tags (P9).
@@ -217,17 +230,18 @@ func (a *Archive) Tags() ([]api.Pin, error) {
 
 // Collect frees what no version has (P10).
 func (a *Archive) Collect() error {
-	if err := a.usable(); err != nil {
+	a.account.take(0)
+	if err := a.ready(); err != nil {
 		return err
 	}
-	if err := a.log.Fault(); err != nil {
+	if err := a.cut(a.catalog.Unused()); err != nil {
 		return err
 	}
-	image, err := a.catalog.Image(a.catalog.Live(), a.log.Read)
-	if err != nil {
+	if err := a.store.Sync(); err != nil {
 		return err
 	}
-	return a.replace(image)
+	a.account.begin(a.catalog)
+	return nil
 }
 
 // Stored tells what the device has (P10).
@@ -240,10 +254,11 @@ func (a *Archive) Stored() (api.Stored, error) {
 
 // Sync makes all that was done safe (P11).
 func (a *Archive) Sync() error {
+	a.account.take(0)
 	if err := a.usable(); err != nil {
 		return err
 	}
-	return a.log.Sync()
+	return a.store.Sync()
 }
 
 // Close ends it (P11).
@@ -251,7 +266,7 @@ func (a *Archive) Close() error {
 	if err := a.usable(); err != nil {
 		return err
 	}
-	err := a.log.Sync()
+	err := a.store.Sync()
 	*a = Archive{}
 	return err
 }
