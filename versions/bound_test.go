@@ -246,7 +246,9 @@ func TestTagsAtTheBound(t *testing.T) {
 					t.Fatalf("%s: call %d is not promised", s.what, i)
 				}
 			}
-			for ; s.account.left >= 300; n++ {
+			// So that the last tag reaches the bound itself.
+			s.do(op{call: "Put", path: "A", content: noise(1, s.account.left%300)})
+			for ; s.account.left > 0; n++ {
 				s.do(op{call: "Tag", name: tagName(n), path: "held"})
 			}
 			expectTag(t, s.archive, tagName(n), "held", 0, api.ErrFull)

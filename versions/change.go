@@ -46,8 +46,8 @@ func (a *Archive) ready() error {
 	return a.cut(a.catalog.Prunes())
 }
 
-// append appends what is drafted to the records. If there is no room for it, room is made; so many sectors must be free behind it.
-func (a *Archive) append(d draft, leave int) error {
+// write appends what is drafted to the records. If there is no room for it, room is made; so many sectors must be free behind it.
+func (a *Archive) write(d draft, leave int) error {
 	if err := a.ready(); err != nil {
 		return err
 	}

@@ -73,7 +73,7 @@ var keeps = []uint64{0, 1<<64 - 1, 0x5555555555555555, 0xaaaaaaaaaaaaaaaa, 3, 0x
 // smallDevice has room for the script, but not for the churn behind it, unless room is made.
 func smallDevice() *api.Device { return api.NewDevice(28) }
 
-// cutAll plays over copies of a device, with the power cut at each operation, from the first one on by this step, and hands on what a crash leaves. The device has what the model has.
+// cutAll plays over copies of a device, and closes the archive, with the power cut at each operation, from the first one on by this step, and hands on what a crash leaves.
 func cutAll(t *testing.T, what string, before *api.Device, ops []op, first, step int, keeps []uint64, then func(what string, d *api.Device)) {
 	t.Helper()
 	there := copied(t, before)
@@ -84,11 +84,15 @@ func cutAll(t *testing.T, what string, before *api.Device, ops []op, first, step
 			a := opened(t, d, plenty)
 			d.Cut(cut)
 			states, safe, err := play(a, there(), ops)
-			if finished = err == nil; !finished {
+			if err != nil {
 				expectPowerless(t, a, err)
+			} else if err := a.Close(); err == nil {
+				finished, safe = true, len(states)-1
+			} else {
+				expectError(t, "Close", err, api.ErrPower)
 			}
 			d.Crash(keep)
-			if !finished {
+			if err != nil {
 				expectPowerless(t, a, err)
 			}
 			what := fmt.Sprintf("%s, cut %d, keep %x", what, cut, keep)
@@ -144,6 +148,24 @@ func ignore(string, *api.Device) {}
 // P13: the power is cut at each operation, and the crash leaves this or that.
 func TestCrashes(t *testing.T) {
 	cutAll(t, "script", smallDevice(), script(), 0, 1, keeps, ignore)
+}
+
+// P13: a crash leaves each choice of up to 8 sectors that are not safe.
+func TestCrashesThatLeaveAnySectors(t *testing.T) {
+	var all []uint64
+	for keep := range uint64(1 << 8) {
+		all = append(all, keep)
+	}
+	cutAll(t, "some calls", smallDevice(), []op{
+		{call: "Put", path: "a", content: noise(1, 200)},
+		{call: "Put", path: "a", content: noise(2, 300)},
+		{call: "Tag", name: "t", path: "a", number: 1},
+		{call: "Put", path: "a", content: noise(3, 10)},
+		{call: "Prune", path: "a", number: 1},
+		{call: "Untag", name: "t"},
+		{call: "Delete", path: "a", number: 1},
+		{call: "Collect"},
+	}, 0, 1, all, ignore)
 }
 
 // P13: likewise while room is made.

@@ -267,37 +267,29 @@ func expectAnswer(t testing.TB, what string, a *versions.Archive, m *model, o op
 	}
 }
 
-// P12: calls of all kinds, refused or not, in sessions one behind the other: as long as no more is asked for than is promised, none answers ErrFull.
+// P12: calls of all kinds, refused or not, in sessions one behind the other: as long as no more is asked for than is promised, none answers ErrFull; nor beside as many tags as there can be without that.
 func TestPromisedRoom(t *testing.T) {
 	calls := 0
 	for seed := range int64(60) {
 		r := rand.New(rand.NewSource(seed))
-		sectors := []int{75, 100, 130, 300, 1000}[seed%5]
-		d := api.NewDevice(sectors)
-		a, m, c := opened(t, d, plenty), newModel(), newAccount(sectors)
+		s := newSession(t, fmt.Sprint("seed ", seed), []int{75, 100, 130, 300, 1000}[seed%5])
+		if seed%3 == 2 {
+			s.do(op{call: "Put", path: "held"})
+			s.fillWithTags()
+			s.again(false)
+		}
 		for i := 0; i < 400; {
-			what := fmt.Sprintf("seed %d, %d sectors, call %d", seed, sectors, i)
-			o := randomOp(r, max(c.left/3, 40))
+			o := randomOp(r, max(s.account.left/3, 40))
 			// What begins anew needs room too: four paths are pruned for it, and a Collect made.
-			if c.left-300-len(o.content) > 5*300 && c.take(o) {
-				expectAnswer(t, what, a, m, o)
+			if s.account.left-300-len(o.content) > 5*300 && s.do(o) {
 				i++
 				calls++
 				continue
 			}
 			for _, path := range []string{longPath, "a", "abcdefghij/klmnopqr0", "b"} {
-				if o := (op{call: "Prune", path: path, number: r.Intn(3)}); c.take(o) {
-					expectAnswer(t, what, a, m, o)
-				}
+				s.do(op{call: "Prune", path: path, number: r.Intn(3)})
 			}
-			if o := (op{call: "Collect"}); r.Intn(2) == 0 && c.take(o) {
-				expectAnswer(t, what, a, m, o)
-			} else {
-				a = reopened(t, a, d, plenty)
-				m.free()
-			}
-			expectSame(t, what, a, m)
-			if c.begin(m); c.left < 6*300 {
+			if s.again(r.Intn(2) == 0); s.account.left < 6*300 {
 				break
 			}
 		}

@@ -86,7 +86,7 @@ func (a *Archive) Put(path string, content []byte) (int, error) {
 	if number > catalog.MaxNumber {
 		return 0, api.ErrFull
 	}
-	if err := a.append(a.adding(path, number, content), leaveGrown); err != nil {
+	if err := a.write(a.adding(path, number, content), leaveGrown); err != nil {
 		return 0, err
 	}
 	return number, nil
@@ -184,7 +184,7 @@ func (a *Archive) Prune(path string, keep int) (int, error) {
 		// Nothing is to be written; but without power that is refused too.
 		return 0, a.store.Fault()
 	}
-	err = a.append(func(b []byte) ([]byte, error) { return record.AppendPrune(b, path, keep), nil }, leavePruned)
+	err = a.write(func(b []byte) ([]byte, error) { return record.AppendPrune(b, path, keep), nil }, leavePruned)
 	if err != nil {
 		return 0, err
 	}
@@ -204,7 +204,7 @@ func (a *Archive) Tag(name, path string, version int) error {
 	if _, err := a.catalog.FindTag(name); err == nil {
 		return api.ErrExists
 	}
-	return a.append(a.tagging(name, v.ID), leaveGrown)
+	return a.write(a.tagging(name, v.ID), leaveGrown)
 }
 
 // Untag lets it go (P9).
