@@ -176,9 +176,9 @@ func TestCrashesOfChurn(t *testing.T) {
 // P13: a second crash behind the first one, and then a session that is closed.
 func TestCrashesTwice(t *testing.T) {
 	turn := 0
-	cutAll(t, "script", smallDevice(), script(), 0, 5, keeps[:4], func(what string, d *api.Device) {
+	cutAll(t, "script", smallDevice(), script(), 0, 5, keeps[:3], func(what string, d *api.Device) {
 		turn++
-		cutAll(t, what, d, churn(), turn%13, 13, keeps[:3], func(what string, d *api.Device) {
+		cutAll(t, what, d, churn(), turn%13, 13, keeps[:2], func(what string, d *api.Device) {
 			m := copied(t, d)()
 			a := opened(t, d, plenty)
 			for range 2 {
