@@ -15,10 +15,14 @@ type Catalog struct {
 	chunks   map[uint32]*chunk     // by their numbers
 	known    map[pack.Sum][]uint32 // those chunks that new versions may have
 	ids      map[uint32]*Version   // by the numbers of their records; with those that are gone
-	prunes   []store.Span          // where the records of prunes stand
-	bytes    int                   // of all versions together
-	tagBytes int                   // of all records of tags together
+	lowest   lowest
+	prunes   []store.Span // where the records of prunes stand
+	bytes    int          // of all versions together
+	tagBytes int          // of all records of tags together
 }
+
+// lowest are numbers below which none is free. Without them each search for a free one would go through all that are not.
+type lowest struct{ chunk, version uint32 }
 
 // New makes a catalog that has nothing.
 func New() *Catalog {

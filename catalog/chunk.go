@@ -15,6 +15,7 @@ type chunk struct {
 	at    store.Span
 	sum   pack.Sum
 	bytes int
+	known bool // whether new versions may have it
 }
 
 // piece is where the chunk itself is: at the end of its record.
@@ -28,19 +29,21 @@ func (c *Catalog) addChunk(at store.Span, r record.Chunk) bool {
 		return false
 	}
 	sum := SumOf(r.Data)
-	c.chunks[r.ID] = &chunk{at, sum, len(r.Data)}
+	c.chunks[r.ID] = &chunk{at, sum, len(r.Data), true}
 	c.known[sum] = append(c.known[sum], r.ID)
+	c.lowest.chunk = c.FreeChunk(c.lowest.chunk)
 	return true
 }
 
-// removeChunk takes away a chunk that is there.
+// removeChunk takes away a chunk that is there. The lists of those that are known must be sifted then.
 func (c *Catalog) removeChunk(id uint32) {
-	c.forget(id)
 	delete(c.chunks, id)
+	c.lowest.chunk = min(c.lowest.chunk, id)
 }
 
 // FreeChunk is the first number from that one on that no chunk has.
 func (c *Catalog) FreeChunk(from uint32) uint32 {
+	from = max(from, c.lowest.chunk)
 	for c.chunks[from] != nil {
 		from++
 	}
@@ -81,24 +84,24 @@ func (c *Catalog) Stored() api.Stored {
 	return all
 }
 
-// isKnown tells whether new versions may have a chunk.
-func (c *Catalog) isKnown(id uint32) bool { return slices.Contains(c.known[c.chunks[id].sum], id) }
-
 // Forget forgets the chunks that no version has: then no version can get them any more.
 func (c *Catalog) Forget() {
-	for id := range c.unused() {
-		c.forget(id)
+	for _, k := range c.unused() {
+		k.known = false
 	}
+	c.sift()
 }
 
-func (c *Catalog) forget(id uint32) {
-	sum := c.chunks[id].sum
-	left := slices.DeleteFunc(c.known[sum], func(k uint32) bool { return k == id })
-	if len(left) == 0 {
-		delete(c.known, sum)
-	} else {
-		c.known[sum] = left
+// sift leaves just those chunks in the lists that are known yet.
+func (c *Catalog) sift() {
+	known := map[pack.Sum][]uint32{}
+	for sum, ids := range c.known {
+		left := slices.DeleteFunc(ids, func(id uint32) bool { return c.chunks[id] == nil || !c.chunks[id].known })
+		if len(left) > 0 {
+			known[sum] = left
+		}
 	}
+	c.known = known
 }
 
 // unused goes through the chunks that no version has.

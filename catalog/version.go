@@ -44,6 +44,9 @@ func (c *Catalog) addVersion(at store.Span, r record.Version) bool {
 	c.files[r.Path] = append(c.files[r.Path], v)
 	c.ids[r.ID] = v
 	c.bytes += size
+	for c.ids[c.lowest.version] != nil {
+		c.lowest.version++
+	}
 	return true
 }
 
@@ -51,16 +54,11 @@ func (c *Catalog) addVersion(at store.Span, r record.Version) bool {
 func (c *Catalog) removeVersion(id uint32) {
 	c.drop(c.ids[id])
 	delete(c.ids, id)
+	c.lowest.version = min(c.lowest.version, id)
 }
 
 // FreeVersion is the first number that no version's record has.
-func (c *Catalog) FreeVersion() uint32 {
-	var id uint32
-	for c.ids[id] != nil {
-		id++
-	}
-	return id
-}
+func (c *Catalog) FreeVersion() uint32 { return c.lowest.version }
 
 // prune drops old versions. Their records are there yet.
 func (c *Catalog) prune(at store.Span, r record.Prune) bool {

@@ -111,10 +111,12 @@ func All(b []byte) iter.Seq2[Record, error] {
 // first is the first record of b.
 func first(b []byte) (Record, error) {
 	code, n := pack.Short(b)
-	h := Head{kind(code % uint64(kinds)), int(code / uint64(kinds))}
-	if n == 0 || len(b) < h.Length() {
+	size := code / uint64(kinds)
+	// An int need not have room for a size that is too great.
+	if n == 0 || size > uint64(len(b)-n) {
 		return nil, api.ErrCorrupt
 	}
+	h := Head{kind(code % uint64(kinds)), int(size)}
 	rest := body{rest: b[n:h.Length()]}
 	r := recordOf(h, &rest)
 	if r == nil || rest.wrong {

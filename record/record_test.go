@@ -123,6 +123,7 @@ func TestAllOfWhatIsNoRecord(t *testing.T) {
 		"a prune without a number":             head(kindPrune),
 		"a record that is cut off":             head(kindChunk, 1, 2, 3)[:3],
 		"a head that is cut off":               {128},
+		"a record that is far too long":        {255, 255, 255, 255, 127, 1, 2, 3},
 		"a head that is longer than needed":    {132, 0, 1},
 	} {
 		if got, err := read(b); got != nil || !errors.Is(err, api.ErrCorrupt) {

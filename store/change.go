@@ -14,6 +14,9 @@ type draft struct {
 	size  int      // of all pages so far
 }
 
+// draft has nothing yet, but the room for as many pages as there are.
+func (s *Store) draft() draft { return draft{pages: make([]page, 0, len(s.pages))} }
+
 // keep lets a page be as it is, but for its place.
 func (d *draft) keep(p page) {
 	d.add(p.sector, p.Size)
@@ -32,9 +35,9 @@ func (d *draft) add(sector, size int) {
 	d.size += size
 }
 
-// Append appends bytes to the string. So many sectors must be free behind that.
+// Append appends bytes to the string. So many sectors must be free behind that, beside the reserve.
 func (s *Store) Append(data []byte, leave int) error {
-	var d draft
+	d := s.draft()
 	kept := s.pages
 	if n := len(kept) - 1; n >= 0 && kept[n].Size < room {
 		kept = kept[:n]
@@ -52,7 +55,7 @@ func (s *Store) Append(data []byte, leave int) error {
 
 // Cut cuts pieces out of the string, which do not overlap, in their order.
 func (s *Store) Cut(cuts []Span) error {
-	var d draft
+	d := s.draft()
 	var left []byte // of the pages ahead that are cut
 	for _, p := range s.pages {
 		for len(cuts) > 0 && cuts[0].End() <= p.Place {
@@ -89,14 +92,14 @@ func appendLeft(b, data []byte, place int, cuts []Span) []byte {
 	return append(b, data[min(at-place, len(data)):]...)
 }
 
-// Tighten fills all pages up but the last one. It needs two free sectors.
+// Tighten fills all pages up but the last one.
 func (s *Store) Tighten() error {
-	for i := 0; i < len(s.pages)-1 && len(s.free) >= 2; {
+	for i := 0; i < len(s.pages)-1; {
 		if s.pages[i].Size == room {
 			i++
 			continue
 		}
-		var d draft
+		d := s.draft()
 		end := min(i+len(s.free), len(s.pages))
 		for _, p := range s.pages[:i] {
 			d.keep(p)
@@ -130,19 +133,19 @@ func (s *Store) take(d *draft, pages []page) ([]byte, error) {
 	return all, nil
 }
 
-// commit makes the pages what the draft says, if there is room for the new ones beside all that there are; then so many sectors must be free.
+// commit makes the pages what the draft says, if there is room for the new ones beside all that there are; then so many sectors must be free, beside the reserve.
 func (s *Store) commit(d draft, leave int) error {
 	if s.fault != nil {
 		return s.fault
 	}
 	left := len(s.free) - len(d.fresh)
-	if left < 0 || left+len(d.freed) < leave {
+	if left < 0 || left+len(d.freed) < reserve+leave {
 		return api.ErrFull
 	}
 	if err := s.writePages(d); err != nil {
 		return err
 	}
-	m := mark{s.mark.turn + 1, len(d.pages)}
+	m := mark{s.mark.next(), len(d.pages)}
 	if err := s.writeTable(m.turn, d.pages); err != nil {
 		return err
 	}

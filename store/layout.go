@@ -8,6 +8,9 @@ const slots = 2
 // tables are written by turns too, each by the turn of its mark.
 const tables = 2
 
+// reserve is how many sectors have no page, however full the device is: to cut one piece out takes so many, and so does filling pages up.
+const reserve = 2
+
 // layout tells what stands where on a device of so many sectors.
 type layout struct{ sectors int }
 
@@ -33,6 +36,9 @@ func (l layout) firstPage() int { return slots + tables*l.tableSize() }
 
 // pages is how many sectors may have one.
 func (l layout) pages() int { return l.sectors - l.firstPage() }
+
+// mostPages is how many of them have one at the most: some are free always.
+func (l layout) mostPages() int { return l.pages() - reserve }
 
 // ceil is how many times n must be taken, until that is a.
 func ceil(a, n int) int { return (a + n - 1) / n }

@@ -1,6 +1,7 @@
 package store
 
 import (
+	"math"
 	"slices"
 
 	"versions/api"
@@ -50,12 +51,20 @@ func markOf(slot int, s api.Sector) (mark, bool) {
 	return m, intact(slot, s) && m.turn > 0 && m.slot() == slot
 }
 
+// next is the turn behind this one. Turns wrap round; but 0 is none, so the one that has its slot too comes in its stead.
+func (m mark) next() uint64 {
+	if m.turn == math.MaxUint64 {
+		return slots
+	}
+	return m.turn + 1
+}
+
 // newest is the mark that was written last. It tells whether the two can have been written one behind the other.
 func newest(a, b mark) (mark, bool) {
-	if a.turn < b.turn {
+	if b.turn == a.next() {
 		a, b = b, a
 	}
-	return a, a.turn == b.turn+1 || a.turn == 0
+	return a, a.turn == b.next() || a == b
 }
 
 // pageSector is a page as it stands in a sector.

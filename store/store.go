@@ -58,7 +58,7 @@ func (s *Store) findMark() error {
 			return err
 		}
 		m, ok := markOf(at, sector)
-		if !ok || m.pages > s.layout.pages() {
+		if !ok || m.pages > s.layout.mostPages() {
 			return located(api.ErrCorrupt, at)
 		}
 		marks[at] = m
@@ -100,8 +100,8 @@ func (s *Store) Size() int {
 	return s.pages[len(s.pages)-1].End()
 }
 
-// Most is how many bytes the string can have, if so many sectors are left free.
-func (s *Store) Most(leave int) int { return max(s.layout.pages()-leave, 0) * room }
+// Most is how many bytes the string can have, if so many sectors are left free beside the reserve.
+func (s *Store) Most(leave int) int { return max(s.layout.mostPages()-leave, 0) * room }
 
 // Read fills a piece of memory with the bytes from a place on, which are there.
 func (s *Store) Read(place int, into []byte) error {

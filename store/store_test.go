@@ -4,6 +4,7 @@ import (
 	"bytes"
 	"errors"
 	"fmt"
+	"math"
 	"math/rand"
 	"slices"
 	"testing"
@@ -93,8 +94,8 @@ func expectPages(t testing.TB, what string, s *Store) {
 			t.Fatalf("%s: sectors %v, pages %v, free %v", what, all, s.pages, s.free)
 		}
 	}
-	if len(all) != s.layout.pages() {
-		t.Fatalf("%s: %d sectors, want %d", what, len(all), s.layout.pages())
+	if len(all) != s.layout.pages() || len(s.free) < reserve {
+		t.Fatalf("%s: %d sectors, want %d, of which %d are free", what, len(all), s.layout.pages(), len(s.free))
 	}
 }
 
@@ -183,9 +184,7 @@ func TestAgainstAString(t *testing.T) {
 				err = s.Cut(cuts)
 			default:
 				err = s.Tighten()
-				if len(s.free) >= 2 {
-					expectTight(t, what, s)
-				}
+				expectTight(t, what, s)
 			}
 			if err == nil {
 				want = after
@@ -225,12 +224,12 @@ func TestRead(t *testing.T) {
 	}
 }
 
-// What there is no room for changes nothing: 16 sectors have 12 pages.
+// What there is no room for changes nothing: 16 sectors have 10 pages at the most, and two more that are free.
 func TestFull(t *testing.T) {
 	s := empty(t, 16)
-	all := noise(1, 9*room)
+	all := noise(1, 7*room)
 	appended(t, s, all)
-	for _, n := range []int{3*room + 1, 100 * room} {
+	for _, n := range []int{3*room + 1, 5 * room, 100 * room} {
 		if err := s.Append(noise(2, n), 0); err != api.ErrFull {
 			t.Errorf("%d bytes too many: %v", n, err)
 		}
@@ -242,8 +241,9 @@ func TestFull(t *testing.T) {
 	if err := s.Append([]byte{1}, 0); err != api.ErrFull {
 		t.Errorf("one byte: %v", err)
 	}
-	if err := s.Cut([]Span{{5, 1}}); err != api.ErrFull {
-		t.Errorf("a cut for which there is no sector: %v", err)
+	cuts := []Span{{5, 1}, {room + 5, 1}, {2*room + 5, 1}}
+	if err := s.Cut(cuts); err != api.ErrFull {
+		t.Errorf("a cut for which there are not enough sectors: %v", err)
 	}
 	if err := s.Tighten(); err != nil {
 		t.Errorf("Tighten: %v", err)
@@ -252,23 +252,34 @@ func TestFull(t *testing.T) {
 		t.Errorf("Sync: %v", err)
 	}
 	expectString(t, "full", s, all)
-	// Pages that go as a whole need no sector.
-	cut(t, s, Span{room, 2 * room})
-	expectString(t, "two pages less", s, without(all, Span{room, 2 * room}))
+	for _, c := range slices.Backward(cuts) {
+		cut(t, s, c)
+	}
+	expectString(t, "cut one by one", s, without(all, cuts...))
 }
 
-// Sectors that must be left free; those that a change frees count.
+// Pages that go as a whole need no sector.
+func TestCutOfWholePages(t *testing.T) {
+	s := empty(t, 16)
+	all := noise(1, 10*room)
+	appended(t, s, all)
+	c := Span{room, 8 * room}
+	cut(t, s, c)
+	expectString(t, "eight pages less", s, without(all, c))
+}
+
+// Sectors that must be left free beside the two that are so always; those that a change frees count.
 func TestAppendLeavesSectorsFree(t *testing.T) {
 	s := empty(t, 16)
-	appended(t, s, noise(1, 8*room+1))
-	if s.Most(0) != 12*room || s.Most(3) != 9*room || s.Most(12) != 0 || s.Most(13) != 0 {
-		t.Errorf("the most: %d, %d, %d", s.Most(0), s.Most(3), s.Most(12))
+	appended(t, s, noise(1, 6*room+1))
+	if s.Most(0) != 10*room || s.Most(3) != 7*room || s.Most(10) != 0 || s.Most(11) != 0 {
+		t.Errorf("the most: %d, %d, %d", s.Most(0), s.Most(3), s.Most(10))
 	}
 	if err := s.Append(noise(2, room), 3); err != api.ErrFull {
-		t.Errorf("10 pages, and 3 left free: %v", err)
+		t.Errorf("8 pages, and 3 left free: %v", err)
 	}
 	if err := s.Append(noise(2, room-1), 3); err != nil {
-		t.Errorf("9 pages, and 3 left free: %v", err)
+		t.Errorf("7 pages, and 3 left free: %v", err)
 	}
 	for leave, n := range []int{3, 2, 1, 0} {
 		if err := s.Append(noise(3, n*room+1), leave); err != api.ErrFull {
@@ -334,30 +345,16 @@ func TestTightenOfTheFirstPage(t *testing.T) {
 	all := noise(1, 10*room)
 	appended(t, s, all)
 	cut(t, s, Span{3, 20})
-	if err := s.Append(noise(2, 20), 2); err != api.ErrFull {
+	if err := s.Append(noise(2, 20), 0); err != api.ErrFull {
 		t.Errorf("no page has room behind it: %v", err)
 	}
 	if err := s.Tighten(); err != nil {
 		t.Fatal(err)
 	}
-	if err := s.Append(noise(2, 20), 2); err != nil {
+	if err := s.Append(noise(2, 20), 0); err != nil {
 		t.Errorf("the last page has room behind it: %v", err)
 	}
 	expectString(t, "as long as before", s, append(without(all, Span{3, 20}), noise(2, 20)...))
-}
-
-// Without two free sectors nothing can be moved.
-func TestTightenWithoutRoom(t *testing.T) {
-	s, all := loose(t, 10)
-	appended(t, s, noise(2, room))
-	all = append(all, noise(2, room)...)
-	if len(s.free) != 1 {
-		t.Fatalf("%d free sectors", len(s.free))
-	}
-	if err := s.Tighten(); err != nil {
-		t.Error(err)
-	}
-	expectString(t, "as before", s, all)
 }
 
 // What is handed to Append is not kept, nor written into.
@@ -411,12 +408,14 @@ func TestGreatDevices(t *testing.T) {
 // P1: marks that no store wrote.
 func TestMarksThatCannotBe(t *testing.T) {
 	for what, marks := range map[string][]mark{
-		"too far on":             {{turn: 3}},
-		"one that is missing":    {{turn: 2}},
-		"two that do not follow": {{turn: 5}, {turn: 8}},
-		"too many pages":         {{turn: 1, pages: 13}},
-		"far too many pages":     {{turn: 1, pages: 1<<32 - 1}},
-		"a table that isn't":     {{turn: 1, pages: 1}},
+		"too far on":                {{turn: 3}},
+		"behind the last turn none": {{turn: math.MaxUint64}},
+		"the last turn, and the one behind the first": {{turn: math.MaxUint64}, {turn: 4}},
+		"one that is missing":                         {{turn: 2}},
+		"two that do not follow":                      {{turn: 5}, {turn: 8}},
+		"more pages than sectors":                     {{turn: 1, pages: 13}},
+		"far too many pages":                          {{turn: 1, pages: 1<<32 - 1}},
+		"a table that isn't":                          {{turn: 1, pages: 1}},
 	} {
 		d := api.NewDevice(16)
 		for _, m := range marks {
@@ -433,6 +432,45 @@ func TestMarksThatCannotBe(t *testing.T) {
 	d = api.NewDevice(16)
 	d.Write(1, sealed(0, mark{turn: 1}.sector()))
 	expectCorrupt(t, "a mark with the sum of another sector", d)
+}
+
+// P1: a device with more pages than a store leaves: out of it nothing could be cut.
+func TestPagesInTheReserve(t *testing.T) {
+	for pages := 1; pages <= 12; pages++ {
+		s := empty(t, 16)
+		var d draft
+		d.lay(noise(1, pages*room))
+		s.writePages(d)
+		s.writeTable(1, d.pages)
+		s.write(1, mark{1, pages}.sector())
+		if pages > 10 {
+			expectCorrupt(t, fmt.Sprint(pages, " pages"), s.device)
+			continue
+		}
+		if _, got := opened(t, s.device); !bytes.Equal(got, noise(1, pages*room)) {
+			t.Errorf("%d pages: %d bytes", pages, len(got))
+		}
+	}
+}
+
+// P1: behind the last turn that there is room for others come.
+func TestTurnsWrapRound(t *testing.T) {
+	d := api.NewDevice(16)
+	for _, m := range []mark{{turn: math.MaxUint64 - 3}, {turn: math.MaxUint64 - 2}} {
+		d.Write(m.slot(), m.sector())
+	}
+	s, all := opened(t, d)
+	for i := range byte(9) {
+		appended(t, s, []byte{i})
+		all = append(all, i)
+		expectString(t, fmt.Sprint("turn ", s.mark.turn), s, all)
+		if i%2 == 0 {
+			s, _ = opened(t, d)
+		}
+	}
+	if s.mark.turn != 8 {
+		t.Errorf("turn %d", s.mark.turn)
+	}
 }
 
 func expectCorrupt(t *testing.T, what string, d *api.Device) {

@@ -8,10 +8,10 @@ import (
 	"versions/store"
 )
 
-// How many sectors must be free behind a change. To cut one record out takes two: so that many are there always, and what is there can be taken away again, however full the device is. To prune takes one more.
+// How many sectors must be free behind a change, beside the store's reserve. Out of that one record can be cut always: so what is there can be taken away again, however full the device is. To prune takes one more.
 const (
-	leavePruned = 2
-	leaveGrown  = 3
+	leavePruned = 0
+	leaveGrown  = 1
 )
 
 // draft appends records to a buffer, which is answered beside an error too.
@@ -58,7 +58,7 @@ func (a *Archive) write(d draft, leave int) error {
 	}
 	err = a.store.Append(change, leave)
 	if errors.Is(err, api.ErrFull) {
-		if err := a.makeRoom(); err != nil {
+		if err := a.makeRoom(len(change), leave); err != nil {
 			return err
 		}
 		err = a.store.Append(change, leave)
@@ -69,10 +69,14 @@ func (a *Archive) write(d draft, leave int) error {
 	return a.catalog.Apply(a.store.Size()-len(change), change)
 }
 
-// makeRoom lets what is not needed go. Chunks that are known stay: but for Collect no call changes what is stored (P10).
-func (a *Archive) makeRoom() error {
+// makeRoom lets what is not needed go, so that there is room for so many bytes. Chunks that are known stay: but for Collect no call changes what is stored (P10).
+func (a *Archive) makeRoom(bytes, leave int) error {
 	if err := a.cut(a.catalog.Forgotten()); err != nil {
 		return err
+	}
+	// To fill pages up is much to write, so it is not done in vain.
+	if a.store.Size()+bytes > a.store.Most(leave) {
+		return api.ErrFull
 	}
 	return a.store.Tighten()
 }

@@ -1,6 +1,7 @@
 package versions_test
 
 import (
+	"bytes"
 	"fmt"
 	"slices"
 	"testing"
@@ -45,6 +46,20 @@ func churn() []op {
 		)
 	}
 	return append(ops, op{call: "Put", path: "x", content: noise(6, 30)})
+}
+
+// shortScript is a session that has room on the smallest device.
+func shortScript() []op {
+	return []op{
+		{call: "Put", path: "a", content: noise(1, 200)},
+		{call: "Put", path: "a", content: noise(2, 300)},
+		{call: "Tag", name: "t", path: "a", number: 1},
+		{call: "Put", path: "a", content: noise(3, 10)},
+		{call: "Prune", path: "a", number: 1},
+		{call: "Untag", name: "t"},
+		{call: "Delete", path: "a", number: 1},
+		{call: "Collect"},
+	}
 }
 
 // play makes calls, until an error comes. It tells what was there behind each change, at first what the model has; how many changes were safe; and the error.
@@ -108,7 +123,7 @@ func cutAll(t *testing.T, what string, before *api.Device, ops []op, first, step
 }
 
 // copied makes models of what is on a device.
-func copied(t *testing.T, d *api.Device) func() *model {
+func copied(t testing.TB, d *api.Device) func() *model {
 	t.Helper()
 	a := opened(t, d.Copy(), plenty)
 	return func() *model {
@@ -156,16 +171,7 @@ func TestCrashesThatLeaveAnySectors(t *testing.T) {
 	for keep := range uint64(1 << 8) {
 		all = append(all, keep)
 	}
-	cutAll(t, "some calls", smallDevice(), []op{
-		{call: "Put", path: "a", content: noise(1, 200)},
-		{call: "Put", path: "a", content: noise(2, 300)},
-		{call: "Tag", name: "t", path: "a", number: 1},
-		{call: "Put", path: "a", content: noise(3, 10)},
-		{call: "Prune", path: "a", number: 1},
-		{call: "Untag", name: "t"},
-		{call: "Delete", path: "a", number: 1},
-		{call: "Collect"},
-	}, 0, 1, all, ignore)
+	cutAll(t, "short script", smallDevice(), shortScript(), 0, 1, all, ignore)
 }
 
 // P13: likewise while room is made.
@@ -261,6 +267,27 @@ func TestCallsWithoutPower(t *testing.T) {
 	expectError(t, "Open", err, api.ErrPower)
 }
 
+// P13: the power is cut while a content of many chunks is read: none of it is told.
+func TestReadWithoutPower(t *testing.T) {
+	before := api.NewDevice(100)
+	content := noise(1, 3000)
+	expectPut(t, opened(t, before, plenty), "a", content, 1)
+	for cut := 0; ; cut++ {
+		d := before.Copy()
+		a := opened(t, d, plenty)
+		d.Cut(cut)
+		if b, err := a.Get("a", 1); err == nil {
+			if !bytes.Equal(b, content) || cut < 3000/api.SectorSize {
+				t.Errorf("%d operations: %d bytes", cut, len(b))
+			}
+			return
+		}
+		expectNoGet(t, a, "a", 1, api.ErrPower)
+		expectNoRead(t, a, "a", 1, 500, 2000, api.ErrPower)
+		expectError(t, "Sync", a.Sync(), api.ErrPower)
+	}
+}
+
 // P13: each call is the first one to be without power.
 func TestEachCallWithoutPower(t *testing.T) {
 	before := played(t, smallDevice(), script())
@@ -308,51 +335,4 @@ func TestOpenWithoutPower(t *testing.T) {
 			t.Fatalf("cut %d: there is\n%.3000q", cut, got)
 		}
 	}
-}
-
-// P14: each bit is turned about once, behind the whole script; behind less of it, every 11th.
-func TestFlips(t *testing.T) {
-	for n, step := range map[int]int{4: 11, 9: 11, 13: 11, len(script()): 1} {
-		d := smallDevice()
-		a := opened(t, d, plenty)
-		states, _, err := play(a, newModel(), script()[:n])
-		if err != nil {
-			t.Fatal(err)
-		}
-		unsafe := d.Copy()
-		a.Close()
-		expectFlips(t, fmt.Sprintf("%d calls, closed", n), d, step, states)
-		expectFlips(t, fmt.Sprintf("%d calls, not closed", n), unsafe, 11, states)
-	}
-}
-
-func expectFlips(t *testing.T, what string, d *api.Device, step int, states []string) {
-	t.Helper()
-	for bit := 0; bit < d.Sectors()*api.SectorSize*8; bit += step {
-		e := d.Copy()
-		e.Flip(uint(bit))
-		a, err := versions.Open(e, plenty)
-		if err != nil {
-			expectError(t, fmt.Sprintf("%s, bit %d", what, bit), err, api.ErrCorrupt)
-			continue
-		}
-		if got := tell(t, a); !slices.Contains(states, got) {
-			t.Fatalf("%s, bit %d: there is\n%.3000q", what, bit, got)
-		}
-	}
-}
-
-// P14: what is turned about while an archive is open is told too, with the sector's number.
-func TestFlipWhileOpen(t *testing.T) {
-	d := api.NewDevice(60)
-	a := opened(t, d, plenty)
-	expectPut(t, a, "a", noise(1, 50), 1)
-	d.Flip(4*api.SectorSize*8 + 100)
-	expectNoGet(t, a, "a", 1, api.ErrCorrupt)
-	expectNoRead(t, a, "a", 1, 0, 5, api.ErrCorrupt)
-	expectNoPut(t, a, "b", noise(1, 50), api.ErrCorrupt)
-	expectDelete(t, a, "a", 1, api.ErrCorrupt)
-	expectTag(t, a, "t", "a", 1, api.ErrCorrupt)
-	expectVersions(t, a, "a", 1)
-	expectStored(t, "as it was", a, 1, 50)
 }

@@ -210,12 +210,15 @@ func line(path string, number, all int, content string) string {
 	return fmt.Sprintf("%s %d of %d: %s", path, number, all, content)
 }
 
+// hex tells a content.
+func hex[T string | []byte](content T) string { return fmt.Sprintf("%x", content) }
+
 // tell tells all that is there.
 func (m *model) tell() string {
 	var lines []string
 	for path, list := range m.files {
 		for _, v := range list {
-			lines = append(lines, line(path, v.number, len(list), v.content))
+			lines = append(lines, line(path, v.number, len(list), hex(v.content)))
 		}
 	}
 	for _, pin := range m.tags {
@@ -225,8 +228,20 @@ func (m *model) tell() string {
 	return strings.Join(lines, "\n")
 }
 
-// tell tells all that an archive has, as model.tell does; and whether List, Versions, Get and Tags agree with one another.
+// tell tells all that an archive has, as model.tell does.
 func tell(t testing.TB, a *versions.Archive) string {
+	t.Helper()
+	return tellBy(t, a, func(e api.Entry, number int) string {
+		b, err := a.Get(e.Path, number)
+		if err != nil || number == e.Latest && len(b) != e.Size {
+			t.Fatalf("%v, but Get of %d: %d bytes, %v", e, number, len(b), err)
+		}
+		return hex(b)
+	})
+}
+
+// tellBy tells likewise, with the contents as they are told; and whether List, Versions and Tags agree with one another.
+func tellBy(t testing.TB, a *versions.Archive, content func(e api.Entry, number int) string) string {
 	t.Helper()
 	var lines []string
 	entries, err := a.List("")
@@ -239,11 +254,7 @@ func tell(t testing.TB, a *versions.Archive) string {
 			t.Fatalf("%v, but Versions: %v, %v", e, numbers, err)
 		}
 		for _, n := range numbers {
-			b, err := a.Get(e.Path, n)
-			if err != nil || n == e.Latest && len(b) != e.Size {
-				t.Fatalf("%v, but Get of %d: %d bytes, %v", e, n, len(b), err)
-			}
-			lines = append(lines, line(e.Path, n, len(numbers), string(b)))
+			lines = append(lines, line(e.Path, n, len(numbers), content(e, n)))
 		}
 	}
 	pins, err := a.Tags()

@@ -85,7 +85,7 @@ func TestWithoutRoom(t *testing.T) {
 	}
 }
 
-// packed is a device that has no room at all, as no archive leaves one: two versions, of which a tag holds one, a chunk that no version has, and tags in all pages that there are.
+// packed is a device all of whose room is taken, as no archive leaves one: two versions of a path, of which tags hold one, and one of another path.
 func packed(t testing.TB) *api.Device {
 	t.Helper()
 	d := api.NewDevice(16)
@@ -97,29 +97,28 @@ func packed(t testing.TB) *api.Device {
 	records = record.AppendVersion(records, 0, "a", 1, []uint32{0})
 	records = record.AppendVersion(records, 1, "a", 2, []uint32{0, 0})
 	records = record.AppendTag(records, "t", 1)
-	for i := 0; ; i++ {
-		more := record.AppendTag(slices.Clone(records), tagName(i), 1)
-		if len(more) > s.Most(0) {
-			break
-		}
-		records = more
+	for i := 0; len(records) < s.Most(0)-api.MaxChunk; i++ {
+		records = record.AppendTag(records, tagName(i), 1)
 	}
-	// The last bytes are those of a chunk.
-	records = record.AppendChunk(records, 1, noise(2, s.Most(0)-len(records)-2))
-	if err := s.Append(records, 0); err != nil || s.Size() != s.Most(0) {
-		t.Fatalf("%d bytes, %v", s.Size(), err)
+	for n := 1; s.Size() == 0; n++ {
+		more := record.AppendChunk(slices.Clone(records), 1, noise(2, n))
+		more = record.AppendVersion(more, 2, "b", 1, []uint32{1})
+		if len(more) < s.Most(0) {
+			continue
+		}
+		if err := s.Append(more, 0); err != nil {
+			t.Fatal(err)
+		}
 	}
 	return d
 }
 
-// P12: each call that P12 names answers ErrFull, behind which all is as it was.
+// P12: each call that adds to the records answers ErrFull, behind which all is as it was; each one that takes away does not.
 func TestWithoutAnyRoom(t *testing.T) {
 	d := packed(t)
 	a := opened(t, d, plenty)
 	was := beforeOf(t, a)
-	for _, o := range []op{
-		{call: "Put", path: "b"}, {call: "Tag", name: "u", path: "a"}, {call: "Untag", name: "t"}, {call: "Delete", path: "a", number: 1}, {call: "Prune", path: "a"}, {call: "Collect"},
-	} {
+	for _, o := range []op{{call: "Put", path: "c"}, {call: "Tag", name: "u", path: "a"}, {call: "Prune", path: "a"}} {
 		for range 2 {
 			n, err := o.on(a)
 			if n != 0 {
@@ -131,7 +130,15 @@ func TestWithoutAnyRoom(t *testing.T) {
 		}
 	}
 	expectError(t, "Sync", a.Sync(), api.OK)
-	was.expect(t, "opened again", reopened(t, a, d, plenty))
+	a = reopened(t, a, d, plenty)
+	was.expect(t, "opened again", a)
+	m := copied(t, d)()
+	for _, o := range []op{{call: "Untag", name: "t"}, {call: "Delete", path: "a", number: 1}, {call: "Delete", path: "b"}, {call: "Collect"}, {call: "Put", path: "c"}} {
+		expectAnswer(t, "taken away", a, m, o)
+	}
+	if got := tell(t, a); got != m.tell() {
+		t.Errorf("taken away: %.2000q\nwant\n%.2000q", got, m.tell())
+	}
 }
 
 // However full the device is, all can be taken away again; and then there is room.
@@ -160,6 +167,34 @@ func TestTakingAwayFromAFullDevice(t *testing.T) {
 			expectPut(t, a, "a", noise(1, 200), 1)
 			filledUp(t, a)
 		}
+	}
+}
+
+// stringSize is how many bytes the records on a device have.
+func stringSize(t testing.TB, d *api.Device) int {
+	t.Helper()
+	s, _, err := store.Open(d.Copy())
+	if err != nil {
+		t.Fatal(err)
+	}
+	return s.Size()
+}
+
+// What a full device has free in the midst of its pages can be used to the last byte: 9 pages of 123 bytes are those that versions and tags may take.
+func TestRoomIsUsedToTheLastByte(t *testing.T) {
+	const most = 9 * 123
+	d := api.NewDevice(api.MinSectors)
+	a := opened(t, d, plenty)
+	expectPut(t, a, "a", noise(1, 100), 1)
+	expectTag(t, a, longPath, "a", 0, api.OK)
+	filledUp(t, a)
+	expectUntag(t, a, longPath, api.OK)
+	// A version of one small chunk takes 8 bytes more than that.
+	n := most - stringSize(t, d) - 8
+	expectNoPut(t, a, "b", noise(2, n+1), api.ErrFull)
+	expectPut(t, a, "b", noise(2, n), 1)
+	if got := stringSize(t, d); got != most {
+		t.Errorf("%d bytes are taken, want %d", got, most)
 	}
 }
 
