@@ -241,6 +241,23 @@ func TestDamageThatFits(t *testing.T) {
 	c.expectArchives(1000)
 }
 
+// P1: a great device, each sector of which that was written is cleared, has a wrong byte, and has one with the sum that fits it.
+func TestDamageOfAGreatDevice(t *testing.T) {
+	d := lived(t, "great", api.NewDevice(1<<16+1), script()).device
+	c := newChecker(t, 10)
+	for at := range d.Sectors() {
+		s := sectorOf(d, at)
+		if s == (api.Sector{}) {
+			continue
+		}
+		c.check(fmt.Sprintf("sector %d cleared", at), with(d, at, api.Sector{}))
+		s[pack.SumSize+c.r.Intn(9)]++
+		c.check(fmt.Sprintf("sector %d with a wrong byte", at), with(d, at, s))
+		c.check(fmt.Sprintf("sector %d with a wrong byte, but its sum", at), with(d, at, resealed(at, s)))
+	}
+	c.expectArchives(10)
+}
+
 // written is a device with records of these bytes on it.
 func written(t testing.TB, records []byte) *api.Device {
 	t.Helper()
