@@ -96,6 +96,23 @@ func TestFind(t *testing.T) {
 	}
 }
 
+// P5: a number is followed by the one above it, as long as that is an int.
+func TestNext(t *testing.T) {
+	for _, latest := range []int{1, 2, math.MaxInt32 - 1, math.MaxInt32, math.MaxInt32 + 1, math.MaxUint32, 1<<35 - 1, 1 << 62, math.MaxInt - 1} {
+		c := made(t, record.AppendVersion(nil, 0, "p", latest, nil))
+		if n, err := c.Next("p"); n != latest+1 || err != nil {
+			t.Errorf("behind %d: %d, %v", latest, n, err)
+		}
+		if n, err := c.Next("q"); n != 1 || err != nil {
+			t.Errorf("behind no version: %d, %v", n, err)
+		}
+	}
+	c := made(t, record.AppendVersion(nil, 0, "p", math.MaxInt, nil))
+	if n, err := c.Next("p"); n != 0 || !errors.Is(err, api.ErrCorrupt) {
+		t.Errorf("behind the greatest int: %d, %v", n, err)
+	}
+}
+
 // P1: records that are well formed, but that no archive wrote.
 func TestApplyOfWhatCannotBe(t *testing.T) {
 	version := func(id uint32, path string, number int, chunks ...uint32) []byte {
@@ -115,7 +132,7 @@ func TestApplyOfWhatCannotBe(t *testing.T) {
 		"a number twice":             append(bytes.Clone(first), version(1, "p", 3)...),
 		"a number that falls":        append(bytes.Clone(first), version(1, "p", 2)...),
 		"two records of one number":  append(bytes.Clone(first), version(0, "q", 1)...),
-		"a number that is too great": version(0, "p", math.MaxInt32+1),
+		"a great number that falls":  append(version(0, "p", 1<<33), version(1, "p", 1<<33-1)...),
 		"a chunk that is not there":  version(0, "p", 1, 0),
 		"a chunk far beyond":         version(0, "p", 1, math.MaxInt32),
 		"a chunk that comes later":   append(version(0, "p", 1, 0), long...),

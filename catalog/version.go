@@ -11,9 +11,6 @@ import (
 	"versions/store"
 )
 
-// MaxNumber is the greatest number that a version can have: the records have no room for more.
-const MaxNumber = math.MaxInt32
-
 // Version is a version of a path.
 type Version struct {
 	At           store.Span // where its record stands now
@@ -115,6 +112,15 @@ func (c *Catalog) Latest(path string) int {
 		return 0
 	}
 	return list[len(list)-1].Number
+}
+
+// Next is the number of a path's next version. Behind the greatest int there is none; but so many versions no archive can have put: what is there is not what was written.
+func (c *Catalog) Next(path string) (int, error) {
+	latest := c.Latest(path)
+	if latest == math.MaxInt {
+		return 0, api.ErrCorrupt
+	}
+	return latest + 1, nil
 }
 
 // Find finds a version of a path; 0 stands for the latest one.

@@ -24,10 +24,10 @@ func Number(b []byte) uint64 {
 const (
 	shortBits = 7
 	more      = 1 << shortBits
-	maxShort  = 5 // bytes
+	maxShort  = 9 // bytes: so each int from 0 on has room
 )
 
-// AppendShort appends a number below 1<<35, in as few bytes as it needs.
+// AppendShort appends a number below 1<<63, in as few bytes as it needs.
 func AppendShort(b []byte, n uint64) []byte {
 	for ; n >= more; n >>= shortBits {
 		b = append(b, byte(n)|more)

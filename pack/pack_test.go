@@ -49,6 +49,10 @@ func TestShortNumbers(t *testing.T) {
 		{1<<21 - 1, []byte{255, 255, 127}},
 		{1<<31 - 1, []byte{255, 255, 255, 255, 7}},
 		{1<<35 - 1, []byte{255, 255, 255, 255, 127}},
+		{1 << 35, []byte{128, 128, 128, 128, 128, 1}},
+		{1<<56 - 1, []byte{255, 255, 255, 255, 255, 255, 255, 127}},
+		{1 << 56, []byte{128, 128, 128, 128, 128, 128, 128, 128, 1}},
+		{1<<63 - 1, []byte{255, 255, 255, 255, 255, 255, 255, 255, 127}},
 	} {
 		if got := AppendShort([]byte("ahead"), c.n); !bytes.Equal(got, append([]byte("ahead"), c.want...)) {
 			t.Errorf("AppendShort of %d: %v, want %v behind ahead", c.n, got, c.want)
@@ -70,7 +74,8 @@ func TestShortNumbers(t *testing.T) {
 // What is not as short as can be is none: so a number tells how many bytes it has.
 func TestShortOfWhatIsNone(t *testing.T) {
 	for _, b := range [][]byte{
-		nil, {}, {128}, {128, 0}, {128, 0, 1}, {255, 0}, {129, 128, 0}, {128, 128, 128, 128, 0}, {128, 128, 128, 128, 128, 1}, {255, 255, 255, 255, 255}, bytes.Repeat([]byte{255}, 99),
+		nil, {}, {128}, {128, 0}, {128, 0, 1}, {255, 0}, {129, 128, 0}, {128, 128, 128, 128, 0}, {255, 255, 255, 255, 255, 255, 255, 255, 0},
+		{128, 128, 128, 128, 128, 128, 128, 128, 128, 1}, {255, 255, 255, 255, 255, 255, 255, 255, 255, 1}, {255, 255, 255, 255, 255, 255, 255, 255, 255, 127}, bytes.Repeat([]byte{255}, 99),
 	} {
 		if n, size := Short(b); n != 0 || size != 0 {
 			t.Errorf("Short of %v: %d, %d bytes", b, n, size)

@@ -3,6 +3,7 @@ package record
 import (
 	"bytes"
 	"errors"
+	"math"
 	"reflect"
 	"testing"
 
@@ -27,19 +28,23 @@ func sample() ([]byte, []Record) {
 	b = AppendChunk(b, 1<<31-1, long)
 	b = AppendVersion(b, 300, "abcdefghij/klmnopqrs", 1<<31-1, []uint32{0, 128, 1<<31 - 1})
 	b = AppendVersion(b, 0, "a", 1, nil)
+	b = AppendVersion(b, 1, "b", 1<<31, []uint32{0})
+	b = AppendVersion(b, 2, "c", math.MaxInt, nil)
 	b = AppendTag(b, "abcdefghij/klmnopqrs", 300)
 	b = AppendTag(b, "t", 0)
 	b = AppendPrune(b, "a/b", 0)
-	b = AppendPrune(b, "_", 1<<31-1)
+	b = AppendPrune(b, "_", 1<<31)
 	return b, []Record{
 		Chunk{Head{kindChunk, 2}, 0, []byte("x")},
 		Chunk{Head{kindChunk, 261}, 1<<31 - 1, long},
 		Version{Head{kindVersion, 29}, 300, 1<<31 - 1, []uint32{0, 128, 1<<31 - 1}, "abcdefghij/klmnopqrs"},
 		Version{Head{kindVersion, 4}, 0, 1, nil, "a"},
+		Version{Head{kindVersion, 9}, 1, 1 << 31, []uint32{0}, "b"},
+		Version{Head{kindVersion, 12}, 2, math.MaxInt, nil, "c"},
 		Tag{Head{kindTag, 15}, 300, "abcdefghij/klmnopqrs"},
 		Tag{Head{kindTag, 2}, 0, "t"},
 		Prune{Head{kindPrune, 3}, 0, "a/b"},
-		Prune{Head{kindPrune, 6}, 1<<31 - 1, "_"},
+		Prune{Head{kindPrune, 6}, 1 << 31, "_"},
 	}
 }
 
@@ -101,7 +106,7 @@ func TestAllOfWhatIsNoRecord(t *testing.T) {
 			t.Errorf("the first %d bytes: %d of them read, %v", n, whole, err)
 		}
 	}
-	if len(records) != 8 {
+	if len(records) != 10 {
 		t.Fatal("the sample is another one")
 	}
 	head := func(k kind, body ...byte) []byte { return appendRecord(nil, k, body) }
@@ -110,11 +115,16 @@ func TestAllOfWhatIsNoRecord(t *testing.T) {
 		"half the number of a chunk":           head(kindChunk, 128),
 		"a number that is longer than needed":  head(kindChunk, 129, 0, 'a'),
 		"a number that is too great":           head(kindChunk, 128, 128, 128, 128, 8, 'a'),
+		"a tag of a record that can't be":      head(kindTag, 128, 128, 128, 128, 8, 1),
 		"a version without a number":           head(kindVersion),
+		"half the number of a version":         head(kindVersion, 1, 128),
+		"a version whose number is no int":     head(kindVersion, 1, 128, 128, 128, 128, 128, 128, 128, 128, 128, 1, 0, 1),
+		"one whose number is no int by far":    head(kindVersion, append([]byte{1}, bytes.Repeat([]byte{255}, 40)...)...),
 		"a version that has just one":          head(kindVersion, 1),
 		"a version without chunks":             head(kindVersion, 1, 1),
 		"fewer chunks than there ought to be":  head(kindVersion, 1, 1, 3, 7, 7),
 		"far fewer chunks":                     head(kindVersion, 1, 1, 255, 255, 255, 255, 7, 7),
+		"by far the fewest":                    head(kindVersion, 1, 1, 255, 255, 255, 255, 255, 255, 255, 255, 127, 7),
 		"a version whose path ends with a 0":   head(kindVersion, 1, 1, 0, 1, 0),
 		"a tag without a version":              head(kindTag),
 		"a tag with a digit 0":                 head(kindTag, 1, byte(base)),
@@ -124,6 +134,7 @@ func TestAllOfWhatIsNoRecord(t *testing.T) {
 		"a record that is cut off":             head(kindChunk, 1, 2, 3)[:3],
 		"a head that is cut off":               {128},
 		"a record that is far too long":        {255, 255, 255, 255, 127, 1, 2, 3},
+		"one that is as long as can be":        {255, 255, 255, 255, 255, 255, 255, 255, 127, 1, 2, 3},
 		"a head that is longer than needed":    {132, 0, 1},
 	} {
 		if got, err := read(b); got != nil || !errors.Is(err, api.ErrCorrupt) {

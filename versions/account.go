@@ -23,8 +23,12 @@ func (c *account) begin(there *catalog.Catalog) {
 	c.taken = there.Bytes() + callCost*there.Versions()
 }
 
-// take counts a call, with the bytes that are handed in.
-func (c *account) take(bytes int) { c.taken += callCost + bytes }
+// take counts a call, with the bytes that are handed in. Beyond the bound nothing is counted: so the count does not wrap round, however many calls come.
+func (c *account) take(bytes int) {
+	if c.promised() {
+		c.taken += callCost + bytes
+	}
+}
 
 // promised tells whether there must be room for the last call that was counted.
 func (c *account) promised() bool { return c.taken <= c.bound }

@@ -26,8 +26,12 @@ type addition struct {
 }
 
 // adding drafts the change that adds a version: its chunks that are not there, and the version itself.
-func (a *Archive) adding(path string, number int, content []byte) draft {
+func (a *Archive) adding(path string, content []byte) draft {
 	return func(buffer []byte) ([]byte, error) {
+		number, err := a.catalog.Next(path)
+		if err != nil {
+			return buffer, err
+		}
 		n := addition{archive: a, change: buffer, fresh: map[pack.Sum][]fresh{}}
 		for c := range chunk.All(content) {
 			if err := n.add(c); err != nil {

@@ -21,8 +21,15 @@ type session struct {
 
 func newSession(t testing.TB, what string, sectors int) *session {
 	t.Helper()
-	d := api.NewDevice(sectors)
-	s := &session{t, fmt.Sprintf("%s, %d sectors", what, sectors), d, opened(t, d, plenty), newModel(), newAccount(sectors)}
+	return sessionOver(t, what, api.NewDevice(sectors))
+}
+
+// sessionOver is one with what is on the device.
+func sessionOver(t testing.TB, what string, d *api.Device) *session {
+	t.Helper()
+	sectors := d.Sectors()
+	s := &session{t, fmt.Sprintf("%s, %d sectors", what, sectors), d, opened(t, d, plenty), copied(t, d)(), newAccount(sectors)}
+	s.model.free()
 	s.account.begin(s.model)
 	return s
 }

@@ -147,6 +147,10 @@ func (m *model) doPut(path string, content []byte) (int, api.Errno) {
 	if list := m.files[path]; len(list) > 0 {
 		number = list[len(list)-1].number + 1
 	}
+	// Behind the greatest int it wraps round.
+	if number < 0 {
+		return 0, api.ErrCorrupt
+	}
 	m.files[path] = append(m.files[path], kept{number, string(content)})
 	m.store(content)
 	return number, api.OK

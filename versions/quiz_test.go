@@ -13,7 +13,7 @@ import (
 // Texts, numbers and contents of each kind, right and wrong ones.
 var (
 	anyTexts   = []string{"a", "b/c", "x", "none", "", "A", "a//b", "a/", "/a", longPath, longPath + "x", "\xff", "ä", "a\x00"}
-	anyNumbers = []int{0, 1, 2, 3, -1, math.MinInt, math.MaxInt, math.MaxInt32}
+	anyNumbers = []int{0, 1, 2, 3, -1, math.MinInt, math.MaxInt, math.MaxInt32, math.MaxInt32 + 1}
 	anySizes   = []int{0, 1, 90, 700, api.MaxContent, api.MaxContent + 1}
 )
 
@@ -63,13 +63,26 @@ func (q quiz) reads(a *versions.Archive) {
 	q.expect("Sync", nil, true, a.Sync())
 }
 
+// put puts a version: its number is the latest one's and 1.
+func (q quiz) put(a *versions.Archive, path string, content []byte) {
+	q.t.Helper()
+	latest := 0
+	if numbers, _ := a.Versions(path); len(numbers) > 0 {
+		latest = numbers[len(numbers)-1]
+	}
+	n, err := a.Put(path, content)
+	q.expect("Put", args(path, len(content)), n == 0, err, api.ErrPath, api.ErrSize, api.ErrQuota, api.ErrFull)
+	if err == nil && (n <= latest || n != latest+1) {
+		q.t.Fatalf("%s: Put(%q) behind version %d: %d", q.what, path, latest, n)
+	}
+}
+
 // changes makes the others, but Close: those first that add something.
 func (q quiz) changes(a *versions.Archive) {
 	q.t.Helper()
 	for i, path := range anyTexts {
 		for _, size := range anySizes {
-			n, err := a.Put(path, noise(uint32(i), size))
-			q.expect("Put", args(path, size), n == 0, err, api.ErrPath, api.ErrSize, api.ErrQuota, api.ErrFull)
+			q.put(a, path, noise(uint32(i), size))
 		}
 		for j, n := range anyNumbers {
 			name := anyTexts[(i+j)%len(anyTexts)]
@@ -79,8 +92,7 @@ func (q quiz) changes(a *versions.Archive) {
 	}
 	q.expect("Collect", nil, true, a.Collect(), api.ErrFull)
 	for i, path := range anyTexts {
-		n, err := a.Put(path, noise(uint32(i), 90))
-		q.expect("Put", args(path), n == 0, err, api.ErrPath, api.ErrSize, api.ErrQuota, api.ErrFull)
+		q.put(a, path, noise(uint32(i), 90))
 		for _, keep := range anyNumbers {
 			n, err := a.Prune(path, keep)
 			q.expect("Prune", args(path, keep), n == 0, err, api.ErrPath, api.ErrMissing, api.ErrFull)

@@ -293,6 +293,14 @@ func randomOp(r *rand.Rand, longest int) op {
 	return o
 }
 
+// near is the call with a number that is near those of the path's versions, however great they are.
+func (o op) near(m *model) op {
+	if list := m.files[o.path]; len(list) > 0 && o.number > 0 && o.call != "Prune" {
+		o.number += list[0].number - 1
+	}
+	return o
+}
+
 // expectAnswer makes a call on both, and holds the answers against each other.
 func expectAnswer(t testing.TB, what string, a *versions.Archive, m *model, o op) {
 	t.Helper()

@@ -82,14 +82,10 @@ func (a *Archive) Put(path string, content []byte) (int, error) {
 	if len(content) > a.quota-a.catalog.Bytes() {
 		return 0, api.ErrQuota
 	}
-	number := a.catalog.Latest(path) + 1
-	if number > catalog.MaxNumber {
-		return 0, api.ErrFull
-	}
-	if err := a.write(a.adding(path, number, content), leaveGrown); err != nil {
+	if err := a.write(a.adding(path, content), leaveGrown); err != nil {
 		return 0, err
 	}
-	return number, nil
+	return a.catalog.Latest(path), nil
 }
 
 // Get tells a version's content (P6).
